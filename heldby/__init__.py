@@ -1,0 +1,1 @@
+"""Heldby: closures laid out as records, and what they keep."""

@@ -1,0 +1,16 @@
+"""What a name is, and what an integer is."""
+
+LETTERS = "abcdefghijklmnopqrstuvwxyz"
+LONGEST = 8
+
+
+def is_name(value):
+    """Whether any value is a string of 1 to 8 letters from a to z."""
+    if not isinstance(value, str) or not 1 <= len(value) <= LONGEST:
+        return False
+    return all([letter in LETTERS for letter in value])
+
+
+def is_integer(value, least, most):
+    """Whether any value is an integer, and no bool, from least to most."""
+    return isinstance(value, int) and not isinstance(value, bool) and least <= value <= most
