@@ -12,9 +12,9 @@ FILES = sorted(path for path in PACKAGE.rglob("*") if path.is_file() and "__pyca
 LIBRARY = {"heapq", "math", "itertools", "collections", "__future__"}
 BUILTINS = set(
     "len range enumerate zip min max sum abs sorted reversed int str bool bytes list tuple dict set frozenset"
-    " isinstance ord repr any all divmod pow getattr hasattr setattr iter next map super property staticmethod classmethod"
-    " object Exception ValueError TypeError KeyError IndexError LookupError ZeroDivisionError ArithmeticError OverflowError"
-    " RuntimeError NotImplementedError AttributeError StopIteration NotImplemented".split()
+    " isinstance ord repr any all divmod pow getattr hasattr setattr iter next map super property staticmethod"
+    " classmethod object Exception ValueError TypeError KeyError IndexError LookupError ZeroDivisionError"
+    " ArithmeticError OverflowError RuntimeError NotImplementedError AttributeError StopIteration NotImplemented".split()
 )
 
 
