@@ -73,8 +73,13 @@ class Function:
         self.parameters = _copied(parameters)
         self.things = _copied(things)
         self.numbers = _copied(numbers)
-        self.functions = _copied(functions)
+        self._functions = _copied(functions)
         self.body = _copied(body)
+
+    @property
+    def functions(self):
+        """The inner functions; a property, as a name that is one in any class is assigned in none."""
+        return self._functions
 
     def __eq__(self, other):
         return (
@@ -83,6 +88,6 @@ class Function:
             and self.parameters == other.parameters
             and self.things == other.things
             and self.numbers == other.numbers
-            and self.functions == other.functions
+            and self._functions == other._functions
             and self.body == other.body
         )

@@ -56,6 +56,15 @@ class QueriesTest(unittest.TestCase):
         self.assertEqual(self.program.functions, ("main", "f", "g", "i", "h", "k", "l", "m"))
         self.assertEqual(self.program.used, ("main", "f", "h", "k"))
 
+    def test_properties_are_not_assigned(self):
+        for name in ("main", "functions", "used"):
+            had = getattr(self.program, name)
+            with self.assertRaises(AttributeError):
+                setattr(self.program, name, ())
+            self.assertIs(getattr(self.program, name), had)
+        # A Function answers by the same name, with its inner functions instead of names.
+        self.assertEqual([inner.name for inner in self.program.main.functions], ["f", "k", "l"])
+
     def test_used_in_the_order_of_the_text(self):
         functions = [Function("c"), Function("b", body=[Give("c")]), Function("a", body=[Call("b", [])]), Function("d")]
         self.assertEqual(Program(Function("main", functions=functions, body=[Give("a")])).used, ("main", "c", "b", "a"))

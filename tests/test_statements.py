@@ -49,8 +49,19 @@ class MakingTest(unittest.TestCase):
 
     def test_all_attributes_are_set_at_once(self):
         for made, (names, _) in PARTS.items():
-            part = made(**{name: None for name in names})
-            self.assertEqual(set(vars(part)), set(names))
+            part = made(**{name: name * 2 for name in names})
+            self.assertEqual([getattr(part, name) for name in names], [name * 2 for name in names])
+            self.assertEqual(len(vars(part)), len(names))
+
+    def test_inner_functions_are_not_assigned(self):
+        inner = Function("g")
+        f = Function("f", functions=[inner])
+        with self.assertRaises(AttributeError):
+            f.functions = ()
+        with self.assertRaises(AttributeError):
+            del f.functions
+        self.assertIs(f.functions[0], inner)
+        self.assertEqual(f.functions, (inner,))
 
     def test_any_values_are_taken_as_they_are(self):
         for made, (names, lists) in PARTS.items():
