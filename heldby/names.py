@@ -11,6 +11,11 @@ def is_name(value):
     return all([letter in LETTERS for letter in value])
 
 
+def is_plain_integer(value):
+    """Whether any value is an integer, and no bool."""
+    return isinstance(value, int) and not isinstance(value, bool)
+
+
 def is_integer(value, least, most):
     """Whether any value is an integer, and no bool, from least to most."""
-    return isinstance(value, int) and not isinstance(value, bool) and least <= value <= most
+    return is_plain_integer(value) and least <= value <= most

@@ -1,12 +1,11 @@
 """Which functions a program uses, and which variables they use, need and have captured."""
 
-from heldby.statements import Add, Call, Show
-from heldby.trees import all_statements, called_or_given, chains_of, functions_inside, own_variables
+from heldby.trees import all_statements, called_or_given, chains_of, functions_inside, mentioned, own_variables
 
 
 def used_functions(main):
     """The names of main and of each function that a used function calls or gives, in the order of the text."""
-    called = {function.name: called_or_given(function) for function in functions_inside(main)}
+    called = {function.name: _reached_by(function) for function in functions_inside(main)}
     used = {main.name: True}
     waiting = [main.name]
     while waiting:
@@ -22,20 +21,20 @@ def uses_of(main):
     """A dict from the names of all functions to the variables that their own bodies use, by chains."""
     chains = chains_of(main)
     functions = functions_inside(main)
-    return {function.name: _chosen(chains[function.name], _mentioned(function)) for function in functions}
+    return {function.name: _chosen(chains[function.name], _used_by(function)) for function in functions}
 
 
 def needs_of(main):
     """A dict from the names of all functions to the variables of functions around that they need, by chains."""
     functions = functions_inside(main)
-    needs = {function.name: _outer(function, _mentioned(function)) for function in functions}
+    needs = {function.name: _outer(function, _used_by(function)) for function in functions}
     changed = True
     # The least sets: begin with what the bodies use, and go on until nothing more follows.
     while changed:
         changed = False
         for function in functions:
             wider = dict(needs[function.name])
-            for name in called_or_given(function):
+            for name in _reached_by(function):
                 wider.update(_outer(function, needs[name]))
             if len(wider) > len(needs[function.name]):
                 needs[function.name] = wider
@@ -50,16 +49,14 @@ def captured_of(main, needs, used):
     return {function.name: _chosen([function], needed) for function in functions_inside(main)}
 
 
-def _mentioned(function):
-    """A dict of the variables that a body shows, adds to or passes on."""
-    found = {}
-    for statement in all_statements(function.body):
-        if isinstance(statement, (Show, Add)):
-            found[statement.name] = True
-        if isinstance(statement, Call):
-            for name in statement.things:
-                found[name] = True
-    return found
+def _used_by(function):
+    """The variables that a body shows, adds to or passes on."""
+    return mentioned(all_statements(function.body))
+
+
+def _reached_by(function):
+    """The names of the functions that a body calls or gives."""
+    return called_or_given(all_statements(function.body))
 
 
 def _outer(function, variables):

@@ -2,7 +2,9 @@
 
 from heldby.courses import check_courses, check_ends, shortest_courses
 from heldby.errors import UnknownName
+from heldby.names import is_plain_integer
 from heldby.needs import captured_of, needs_of, used_functions, uses_of
+from heldby.places import rests_of, steps_of
 from heldby.scopes import check_scopes
 from heldby.shapes import check_shape
 from heldby.sizes import check_sizes
@@ -28,6 +30,8 @@ class Program:
         self._uses = uses_of(main)
         self._needs = needs_of(main)
         self._captured = captured_of(main, self._needs, self._used)
+        self._steps = {name: steps_of(self._table[name].body) for name in self._order}
+        self._rests = {name: rests_of(self._steps[name]) for name in self._order}
 
     @property
     def main(self):
@@ -94,6 +98,25 @@ class Program:
         """Its own variables that a used function needs."""
         self._check_known(name)
         return self._captured[name]
+
+    def steps(self, name):
+        """A dict from the points of the function, ascending, to what is done next, as steps_of tells."""
+        self._check_known(name)
+        steps = self._steps[name]
+        return {point: steps[point] for point in steps}
+
+    def rests(self, name):
+        """A tuple of (point, variables, functions) for all points of the function, as rests_of tells."""
+        self._check_known(name)
+        return self._rests[name]
+
+    def is_point(self, name, value):
+        """Whether any value is a point of the function."""
+        self._check_known(name)
+        # True is equal to 1, but no part of a point; a list may have no place in a dict.
+        if not isinstance(value, tuple) or not all([is_plain_integer(part) for part in value]):
+            return False
+        return value in self._steps[name]
 
     def _check_known(self, name):
         if name not in self:

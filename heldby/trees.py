@@ -1,6 +1,6 @@
 """The functions, variables and statements of a program, in the order of its text."""
 
-from heldby.statements import Call, Either, Give
+from heldby.statements import Add, Call, Either, Give, Show
 
 
 def functions_inside(function):
@@ -52,6 +52,18 @@ def all_statements(body):
     return found
 
 
-def called_or_given(function):
-    """The names of the functions that the body of a function calls or gives."""
-    return [statement.name for statement in all_statements(function.body) if isinstance(statement, (Call, Give))]
+def mentioned(statements):
+    """The variables that single statements, without those in Eithers, show, add to or pass on, each once."""
+    found = {}
+    for statement in statements:
+        if isinstance(statement, (Show, Add)):
+            found[statement.name] = True
+        if isinstance(statement, Call):
+            for name in statement.things:
+                found[name] = True
+    return list(found)
+
+
+def called_or_given(statements):
+    """The names of the functions that single statements, without those in Eithers, call or give, each once."""
+    return list({statement.name: True for statement in statements if isinstance(statement, (Call, Give))})

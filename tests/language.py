@@ -157,6 +157,14 @@ def form_faults(texts):
         # A method that is read off a class bars its attributes' names elsewhere.
         if isinstance(node.value, ast.Name) and node.value.id[0].isupper() and not node.value.id.isupper():
             faults.append((path, node.lineno, ast.unparse(node)))
+    for path, tree in trees.items():
+        for row in tree.body:
+            if isinstance(row, ast.Assign) and not (len(row.targets) == 1 and isinstance(row.targets[0], ast.Name)):
+                faults.append((path, row.lineno, ast.unparse(row)))
+        used = [ast.unparse(node) for _, node in nodes_of({path: tree}, (ast.Name, ast.Attribute))]
+        for row in tree.body:
+            if isinstance(row, ast.ImportFrom):
+                faults += [(path, row.lineno, alias.name) for alias in row.names if alias.name not in used]
     for path, node in nodes_of(trees, (ast.BinOp, ast.AugAssign)):
         if isinstance(node.op, ast.Div):
             faults.append((path, node.lineno, "/"))
