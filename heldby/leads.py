@@ -30,7 +30,7 @@ class Leads:
 
     def given(self):
         """A dict of the functions that a used function gives."""
-        return {callee: True for rows in list(self._gives.values()) for _, callee, _ in rows}
+        return {row[1]: True for rows in list(self._gives.values()) for row in rows}
 
 
 def _passes(program, callee, passed):

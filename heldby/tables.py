@@ -4,7 +4,7 @@ from heldby.leads import Leads, meet, outer_things, starting_states
 
 
 def least_table(one, other):
-    """The three least sets that keep the rules 1 to 4 of tables, ascending tuples of states: held, entered, standing."""
+    """The least held, entered and standing that keep the rules 1 to 4 of tables, ascending tuples of states."""
     program = one.program
     leads = Leads(program)
     starts = starting_states(program, leads)
