@@ -32,3 +32,23 @@ def refusal(main):
 
 def shows(name, many):
     return [Show(name)] * many
+
+
+def nested_eithers(many):
+    """So many Eithers, each one in the one around it, in its first and its second list by turns."""
+    statement = Either([], [])
+    for at in range(many - 1):
+        statement = Either([statement], []) if at % 2 else Either([], [statement])
+    return statement
+
+
+def unknown_points(known):
+    """Values of any kind that are none of the known points; some of them look like one."""
+    looks = [(True,), (False,), (1, False), (0, True, 0), (-1,), (99,), [0], [], [()], ((),), ((0,),), ("0",), (None,)]
+    looks += [([],), ({},), (10 ** 99,), (0, [0]), "()", "0", "entry", 0, (0, 0, 0, 0, 0), (0, 2), (0, 0, 0, 7)]
+    values = any_values() + looks + [list(point) for point in known]
+    return [value for value in values if not (is_tuple_of_integers(value) and value in known)]
+
+
+def is_tuple_of_integers(value):
+    return isinstance(value, tuple) and all(type(part) is int for part in value)

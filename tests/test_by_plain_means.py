@@ -1,64 +1,12 @@
 """Many small programs, looked at by plain means: by playing all courses, and by following paths."""
 
-import random
 import unittest
 
 from heldby.courses import shortest_courses
 from heldby.programs import Program
-from heldby.statements import Add, Call, Either, Function, Give, Show
+from heldby.statements import Add, Call, Either, Give, Show
+from tests.makers import Maker
 from tests.samples import refusal
-
-
-class Maker:
-    """Makes a program from a seed: all its names are known, visible, and of the right kind and count."""
-
-    def __init__(self, seed):
-        self.random = random.Random(seed)
-        self.count = 0
-
-    def name(self, letter):
-        self.count += 1
-        return letter + "abcdefghijklmnopqrstuvwxyz"[self.count // 26] + "abcdefghijklmnopqrstuvwxyz"[self.count % 26]
-
-    def skeleton(self, depth):
-        made = {"name": self.name("f")}
-        for kind, most in (("parameters", 2), ("things", 1), ("numbers", 1)):
-            made[kind] = [self.name(kind[0]) for _ in range(self.random.randint(0, most))]
-        inner = self.random.randint(0, 2) if depth < 3 else 0
-        made["functions"] = [self.skeleton(depth + 1) for _ in range(max(inner, 1 if depth == 0 else 0))]
-        return made
-
-    def body(self, chain, depth):
-        return [self.statement(chain, depth) for _ in range(self.random.choice([0, 1, 1, 2, 2, 3]))]
-
-    def statement(self, chain, depth):
-        things = [name for f in chain for name in [*f["parameters"], *f["things"]]]
-        numbers = [name for f in chain for name in f["numbers"]]
-        callees = [g for f in chain for g in f["functions"]]
-        kind = self.random.choice(["show", "add", "call", "call", "give", "either", "either"])
-        if kind == "either" and depth < 3:
-            return Either(self.body(chain, depth + 1), self.body(chain, depth + 1))
-        if kind == "call" and callees:
-            callee = self.random.choice(callees)
-            if things or not callee["parameters"]:
-                return Call(callee["name"], [self.random.choice(things) for _ in callee["parameters"]])
-        if kind == "give" and callees:
-            return Give(self.random.choice(callees)["name"])
-        if kind == "add" and numbers:
-            return Add(self.random.choice(numbers), self.random.randint(1, 1000))
-        if things + numbers:
-            return Show(self.random.choice(things + numbers))
-        return Either([], [])
-
-    def function(self, made, chain):
-        chain = [*chain, made]
-        return Function(
-            made["name"], made["parameters"], things=made["things"], numbers=made["numbers"],
-            functions=[self.function(inner, chain) for inner in made["functions"]], body=self.body(chain, 0),
-        )
-
-    def main(self):
-        return self.function(self.skeleton(0), [])
 
 
 def flat(function):
