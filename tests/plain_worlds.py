@@ -35,8 +35,8 @@ class Played:
     def turn(self, turn):
         """Plays a turn that is as told; whether it came to its end."""
         closure, things, choices, takes, drops = turn
-        rest = list(choices)
-        self.choose = self.choosing or (lambda: rest.pop(0))
+        self.left = list(choices)
+        self.choose = self.choosing or (lambda: self.left.pop(0))
         name, around = self.held[closure]
         for number in drops:
             del self.held[number]
