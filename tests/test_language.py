@@ -59,11 +59,15 @@ class LanguageTest(unittest.TestCase):
 
     def test_each_function_and_class_is_defined_where_it_is_listed(self):
         listed = {
-            "statements": ["Statement", "Show", "Add", "Call", "Give", "Either", "Function"], "programs": ["Program"],
+            "statements": "Statement Show Add Call Give Either Function", "programs": "Program",
+            "keepers": "points Keeper Plain Told", "layouts": "Layout",
+            "worlds": "stack_at held_at kept_at count_moments shows_of",
+            "comparing": "keeps_no_more compared is_compared excesses",
         }
+        self.assertLessEqual({f"heldby/{stem}.py" for stem in listed}, set(TEXTS))
         for path, tree in self.trees():
             defined = {node.name for node in tree.body if isinstance(node, (ast.ClassDef, ast.FunctionDef))}
-            self.assertLessEqual(set(listed.get(pathlib.Path(path).stem, [])), defined)
+            self.assertLessEqual(set(listed.get(pathlib.Path(path).stem, "").split()), defined)
 
 
 class PropertyTest(unittest.TestCase):
