@@ -24,9 +24,9 @@ def chosen_bundles(program, bundles):
             raise InvalidBundle(index)
         for variable in bundle:
             taken[variable] = True
-    ordered = [tuple([variable for variable in owners if variable in bundle]) for bundle in bundles]
-    firsts = {bundle[0]: bundle for bundle in ordered}
-    return tuple([firsts[variable] for variable in owners if variable in firsts])
+    ordered = [tuple([name for name in owners if name in members]) for members in bundles]
+    firsts = {names[0]: names for names in ordered}
+    return tuple([firsts[name] for name in owners if name in firsts])
 
 
 def _is_bundle(value, owners):

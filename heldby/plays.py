@@ -53,7 +53,7 @@ class Play:
         if takes and takes[-1] >= self._offered:
             raise InvalidWorld(index)
 
-    def value(self, holds, variable):
+    def content(self, holds, variable):
         """What a variable holds in these activations."""
         return holds[self._levels[variable]][variable]
 
@@ -96,7 +96,7 @@ class Play:
             return
         frame.at = after
         if isinstance(statement, Call):
-            things = [self.value(frame.holds, thing) for thing in statement.things]
+            things = [self.content(frame.holds, thing) for thing in statement.things]
             self._enter(statement.name, self._around(frame, statement.name), things)
             return
         if isinstance(statement, Either):
@@ -124,7 +124,7 @@ class Play:
     def _do(self, frame, statement):
         """Does a statement without moments inside; the end of a list of an Either is none."""
         if isinstance(statement, Show):
-            self.shown.append((statement.name, self.value(frame.holds, statement.name)))
+            self.shown.append((statement.name, self.content(frame.holds, statement.name)))
         if isinstance(statement, Add):
             frame.holds[self._levels[statement.name]][statement.name] += statement.many
         if isinstance(statement, Give):

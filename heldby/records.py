@@ -53,13 +53,14 @@ class Records:
         kept = [variable for variable in variables if variable in things]
         units = [self._places[variable] for variable in variables if self._is_own_place(variable, own, things)]
         outer = [("variable", variable) for variable in variables if variable not in own]
-        for item in [item for called in functions for item in self.recorded_items[called]]:
-            if owner_of(item, self._owners) == name:
-                units.append(self._unit_of(item))
-            else:
-                outer.append(item)
+        for called in functions:
+            for item in self.recorded_items[called]:
+                if owner_of(item, self._owners) == name:
+                    units.append(self._unit_of(item))
+                else:
+                    outer.append(item)
         if is_opened:
-            units.extend([self._opened_unit(name, item) for item in outer])
+            units.extend([self._opened_unit(name, further) for further in outer])
         elif outer:
             units.append(("record", name))
         for unit in units:

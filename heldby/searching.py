@@ -2,6 +2,7 @@
 
 from heapq import heappop, heappush
 
+from heldby.keepers import points
 from heldby.leads import Leads, meet, own_states, parameter_states
 from heldby.limits import MOMENTS
 from heldby.tables import too_much
@@ -84,7 +85,7 @@ class Search:
     def _point_too_much(self, cost, state):
         """The first point at which a frame keeps the thing too much in a turn that is no too long, or None."""
         name, names = state
-        for point, _, _ in self._program.rests(name):
+        for point in points(self._program, name):
             if cost + self._ways.length_at(name, point) <= MOMENTS:
                 if too_much(names, self._one.frame(name, point), self._other.frame(name, point)):
                     return point

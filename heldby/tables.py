@@ -55,9 +55,7 @@ def _uncovered(leads, state, other):
 
 
 def is_table(one, other, value):
-    """Whether any value is a tuple (held, entered, standing) that keeps the rules of tables."""
-    if not isinstance(value, tuple) or len(value) != 3:
-        return False
+    """Whether a tuple of three values of any kind, held, entered and standing, keeps the rules of tables."""
     program = one.program
     held, entered, standing = value
     if not all([_are_states(program, states) for states in value]):
@@ -98,7 +96,7 @@ def _is_closed(one, other, value):
     """Whether three tuples of states keep the rules 1 to 4."""
     leads = Leads(one.program)
     starts = starting_states(one.program, leads)
-    held, entered, standing = [{state: True for state in states} for states in value]
+    held, entered, standing = [{row: True for row in states} for states in value]
     if not _has_all(starts + list(held), entered) or not _has_all(starts + list(held), standing):
         return False
     for state in entered:
@@ -138,8 +136,8 @@ def frame_pairs(one, other, name):
     Only pairs of which the one has a name that the other has not: at no other point a thing is kept too much.
     """
     pairs = {}
-    for point, _, _ in one.program.rests(name):
-        pair = (one.frame(name, point), other.frame(name, point))
+    for rest in one.program.rests(name):
+        pair = (one.frame(name, rest[0]), other.frame(name, rest[0]))
         if not _has_all(pair[0], pair[1]):
-            pairs.setdefault(pair, []).append(point)
+            pairs.setdefault(pair, []).append(rest[0])
     return pairs

@@ -25,10 +25,10 @@ def kept_at(keeper, world, moment):
     kept = {}
     for name, point, holds in stack:
         for variable in keeper.frame(name, point):
-            kept[play.value(holds, variable)] = True
+            kept[play.content(holds, variable)] = True
     for name, holds in list(held.values()):
         for variable in keeper.closure(name):
-            kept[play.value(holds, variable)] = True
+            kept[play.content(holds, variable)] = True
     return tuple(sorted(list(kept)))
 
 
@@ -74,4 +74,4 @@ def _things(program, play, name, holds):
     """A dict from the thing variables of the chain of a function to their things; none for no function."""
     if name is None:
         return {}
-    return {thing: play.value(holds, thing) for thing in program.chain_things(name)}
+    return {thing: play.content(holds, thing) for thing in program.chain_things(name)}

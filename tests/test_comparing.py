@@ -1,9 +1,10 @@
 import random
 import time
 import unittest
+from unittest import mock
 
 from heldby.comparing import compared, excesses, is_compared, keeps_no_more
-from heldby.errors import OtherProgram
+from heldby.errors import OtherProgram, TooLong
 from heldby.keepers import Plain, Told, points
 from heldby.layouts import Layout
 from heldby.limits import MOMENTS
@@ -12,6 +13,7 @@ from heldby.statements import Add, Call, Either, Function, Give, Show
 from heldby.worlds import count_moments, kept_at
 from tests import plain_tables
 from tests.makers import changed, made_keeper, made_layout, made_told, made_world, programs
+from tests.plain_turns import Turns
 from tests.plain_worlds import Played
 from tests.samples import any_values
 
@@ -336,6 +338,13 @@ class TableTest(unittest.TestCase):
                     wrong.append((*self.table[:part], tuple(states), *self.table[part + 1:]))
                 wrong.append((*self.table[:part], value, *self.table[part + 1:]))
                 wrong.append((*self.table[:part], (value,), *self.table[part + 1:]))
+        # At the place where they stand in order, too, with all sets closed.
+        for state in (("f", ()), ("f", ("x", "a")), ("f", ("a", "a", "x")), ("f", ("y",)), ("h", ("p",)), ("h", ("a", "v")),
+                      ("k", ("p",)), ("k", ("a",)), ("nobody", ("a",)), ("main", ("n",)), ("main", ("x",)), ("f", ("f",))):
+            wrong.append((word, held, tuple(sorted({*entered, state})), standing))
+            wrong.append((word, held, entered, tuple(sorted({*standing, state}))))
+            if state[0] != "main":
+                wrong.append((word, *[tuple(sorted({*states, state})) for states in (held, entered, standing)]))
         # States of closures have no variables of their own function.
         for state in (("g", ("a", "v")), ("g", ("v",))):
             wrong.append((word, tuple(sorted({*held, state})), tuple(sorted({*entered, state})), tuple(sorted({*standing, state}))))
@@ -489,6 +498,45 @@ class LongTurnsTest(unittest.TestCase):
         self.assertTrue(keeps_no_more(Plain(program), whole))
         self.assertTrue(is_compared(Plain(program), whole, compared(Plain(program), whole)))
         self.assertEqual(len(compared(Told(program, {}, {}), Told(program, {}, {}))[3]), 60 + 2 * 3)
+
+
+class ShortestTurnsTest(unittest.TestCase):
+    """With a lower limit of moments: worlds are found as long as there are any whose turns are not longer."""
+
+    def found(self, one, other, limit):
+        with mock.patch("heldby.searching.MOMENTS", limit), mock.patch("heldby.plays.MOMENTS", limit):
+            try:
+                return compared(one, other)
+            except TooLong:
+                return None
+
+    def test_many_programs(self):
+        found = {}
+        small = [program for program in programs(700, 2) if sum(len(points(program, f)) for f in program.used) < 26]
+        for at, program in enumerate(small):
+            chance = random.Random(at)
+            one, other = made_keeper(chance, program), made_keeper(chance, program)
+            if keeps_no_more(one, other):
+                self.assertIsNone(Turns(one, other).least(6))
+                continue
+            least = Turns(one, other).least(20)
+            found[least] = found.get(least, 0) + 1
+            self.assertIsNone(self.found(one, other, 20 if least is None else least - 1))
+            if least is not None:
+                value = self.found(one, other, least)
+                self.assertTrue(is_witness(one, other, value))
+                turns = [count_moments(program, value[1][:index + 1]) for index in range(len(value[1]))]
+                self.assertLessEqual(max(turns), least)
+        self.assertGreater(len(found), 10)
+
+    def test_gives_of_turns_that_are_just_long_enough(self):
+        g = Function("g", body=[Show("x"), Show("x")])
+        f = Function("f", ["x"], functions=[g], body=[Show("x"), Give("g"), Show("x"), Show("x")])
+        program = Program(Function("main", ["a"], functions=[f], body=[Show("a"), Call("f", ["a"]), Show("a")]))
+        one, other = Told(program, {}, {("g", ()): ["x"]}), Told(program, {}, {})
+        self.assertEqual(Turns(one, other).least(20), 9)
+        self.assertIsNone(self.found(one, other, 8))
+        self.assertEqual(len(self.found(one, other, 9)[1]), 2)
 
 
 class ExcessesTest(unittest.TestCase):

@@ -51,6 +51,9 @@ class ChoiceTest(unittest.TestCase):
             self.assertEqual(layout.choice(), (layout.bundles, layout.linked, layout.opened))
         layout = Layout(deep(), bundles=[["m", "z"], ["n", "b"], ["a", "c"]])
         self.assertEqual(layout.bundles, (("c", "a"), ("b", "n"), ("z", "m")))
+        # By their first variables alone.
+        for bundles in shuffled(1, [["n", "c"], ["b", "a"]]), [["c", "n"], ["a", "b"]], [["a", "b"], ["c", "n"]]:
+            self.assertEqual(Layout(deep(), bundles=bundles).bundles, (("c", "n"), ("a", "b")))
 
     def test_tuples(self):
         layout = Layout(deep(), bundles=(("a", "b"), ["x", "z"]), linked=("g",), opened=("f", "f"))
