@@ -6,7 +6,7 @@ from heldby.ways import Ways
 def world_of(program, steps):
     """A tuple (world, moment): the world that does the steps, and the moment of its last turn at which they end."""
     ways = Ways(program)
-    world, sites, moment, passed = [], [], None, 0
+    world, things, sites, moment, passed = [], (), [], None, 0
     for word, name, point in steps:
         if word == "turn":
             things = tuple([passed + at for at in range(len(program.function(name).parameters))])

@@ -8,7 +8,8 @@ BUILTINS = set(
     "len range enumerate zip min max sum abs sorted reversed int str bool bytes list tuple dict set frozenset"
     " isinstance ord repr any all divmod pow getattr hasattr setattr iter next map super property staticmethod"
     " classmethod object Exception ValueError TypeError KeyError IndexError LookupError ZeroDivisionError"
-    " ArithmeticError OverflowError RuntimeError NotImplementedError AttributeError StopIteration NotImplemented".split()
+    " ArithmeticError OverflowError RuntimeError NotImplementedError AttributeError StopIteration"
+    " NotImplemented".split()
 )
 VALUE_METHODS = set(
     "append clear copy count endswith extend find get index insert isalnum isalpha isdigit islower isspace isupper"
@@ -94,9 +95,11 @@ def name_faults(texts):
         bound = not isinstance(node, ast.Name) or isinstance(node.ctx, ast.Store)
         if name in others | UNUSED_NAMES or (bound and name in BUILTINS):
             faults.append((path, node.lineno, name))
-        if name.startswith(("_wall", "_pe_", "_dcw_", "_enum_", "_cm_", "_twin_re_", "_lay_", "_law_", "_stub_", "_sre")):
+        if name.startswith(("_wall", "_pe_", "_dcw_", "_enum_", "_cm_", "_twin_re_", "_lay_", "_law_", "_stub_",
+            "_sre")):
             faults.append((path, node.lineno, name))
-        if name.rstrip("_0123456789") in ("_cold", "_tuplegetter", "_outside", "_record", "_written_out", "_member_names"):
+        if name.rstrip("_0123456789") in ("_cold", "_tuplegetter", "_outside", "_record", "_written_out",
+            "_member_names"):
             faults.append((path, node.lineno, name))
     faults += [(path, row, name) for path, row, name in assigned_attributes(trees) if name in NO_ATTRIBUTES]
     for path, tree in trees.items():
@@ -188,7 +191,8 @@ def loop_faults(texts):
             if isinstance(node, ast.Call) and isinstance(node.func, ast.Attribute) and node.func.attr in changing:
                 if ast.unparse(node.func.value) == word:
                     faults.append((path, node.lineno, word))
-            if isinstance(node, ast.Subscript) and not isinstance(node.ctx, ast.Load) and ast.unparse(node.value) == word:
+            if isinstance(node, ast.Subscript) and not isinstance(node.ctx,
+                ast.Load) and ast.unparse(node.value) == word:
                 faults.append((path, node.lineno, word))
             if isinstance(node, ast.Call) and ast.unparse(node.func) in ("heappush", "heappop"):
                 if ast.unparse(node.args[0]) == word:

@@ -132,7 +132,8 @@ def changed(chance, keeper):
     """A keeper that differs at a few places from this one."""
     program = keeper.program
     closures = {name: list(keeper.closure(name)) for name in program.functions if program.parent(name) is not None}
-    frames = {(name, point): list(keeper.frame(name, point)) for name in program.functions for point in points(program, name)}
+    frames = {(name, point): list(keeper.frame(name, point)) for name in program.functions
+        for point in points(program, name)}
     places = [(closures, name, program.chain_things(program.parent(name))) for name in closures]
     places += [(frames, key, program.chain_things(key[0])) for key in frames]
     for _ in range(chance.choice([0, 1, 1, 2, 5])):
@@ -171,7 +172,8 @@ def made_world(chance, program, turns, most_moments=150):
             break
         closure = chance.choice(held + held[-1:] * 2)
         name = Played(program, world).held[closure][0]
-        things = tuple(chance.choice([0, 1, 7, 10 ** 30, chance.randint(0, 9)]) for _ in program.function(name).parameters)
+        things = tuple(chance.choice([0, 1, 7, 10 ** 30, chance.randint(0, 9)])
+            for _ in program.function(name).parameters)
         drops = tuple(number for number in held if chance.random() < 0.2)
         choosing = Choosing(chance)
         tried = Played(program, world, choosing=choosing, most_moments=most_moments)

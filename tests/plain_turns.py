@@ -12,7 +12,7 @@ class Turns:
         self.one, self.other, self.program = one, other, one.program
 
     def least(self, most):
-        """The least number of moments, up to most, such that turns of no more moments show it; None if there is none."""
+        """The least number of moments, up to most, such that turns of no more moments show it, or None."""
         for limit in range(1, most + 1):
             if self.shown(limit):
                 return limit

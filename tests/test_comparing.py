@@ -35,7 +35,8 @@ def nest():
 def everything(program):
     """The keeper that keeps all that may be kept."""
     closures = {name: program.chain_things(program.parent(name)) for name in program.functions[1:]}
-    frames = {(name, point): program.chain_things(name) for name in program.functions for point in points(program, name)}
+    frames = {(name, point): program.chain_things(name) for name in program.functions
+        for point in points(program, name)}
     return Told(program, closures, frames)
 
 
@@ -43,7 +44,8 @@ def without(keeper, place, thing):
     """The keeper without a thing at a place: a name for closures, a tuple (name, point) for frames."""
     program = keeper.program
     closures = {name: list(keeper.closure(name)) for name in program.functions[1:]}
-    frames = {(name, point): list(keeper.frame(name, point)) for name in program.functions for point in points(program, name)}
+    frames = {(name, point): list(keeper.frame(name, point)) for name in program.functions
+        for point in points(program, name)}
     (frames if isinstance(place, tuple) else closures)[place].remove(thing)
     return Told(program, closures, frames)
 
@@ -62,7 +64,8 @@ class ExampleTest(unittest.TestCase):
     def test_examples(self):
         both, plain = Layout(pair(), bundles=[["a", "b"]]), Plain(pair())
         world = [(0, (), (), (0,), ()), (1, (), (), (), (1,))]
-        self.assertEqual([keeps_no_more(both, plain), keeps_no_more(plain, both), compared(both, plain)[0]], [False, True, "world"])
+        self.assertEqual([keeps_no_more(both, plain), keeps_no_more(plain, both), compared(both, plain)[0]],
+            [False, True, "world"])
         self.assertIs(is_compared(both, plain, ("world", world[:1], None, -2)), True)
         self.assertEqual([keeps_no_more(one=both, other=plain), excesses(one=plain, other=both)], [False, []])
         self.assertIs(is_compared(one=plain, other=both, value=compared(one=plain, other=both)), True)
@@ -182,7 +185,8 @@ class KeepsNoMoreTest(unittest.TestCase):
         for at, program in enumerate(programs(90)):
             chance = random.Random(at)
             one = made_keeper(chance, program)
-            for first, second in ((one, made_keeper(chance, program)), (one, changed(chance, one)), (changed(chance, one), one)):
+            for first, second in ((one, made_keeper(chance, program)), (one, changed(chance, one)),
+                (changed(chance, one), one)):
                 want = not plain_tables.faults(first, second, plain_tables.least(first, second))
                 self.told(first, second, want)
                 seen[want] += 1
@@ -216,7 +220,8 @@ class TableTest(unittest.TestCase):
 
     def setUp(self):
         self.program = nest()
-        self.one, self.other = Plain(self.program), Plain(self.program) | Told(self.program, {}, {("main", ()): ["a", "b"]})
+        self.one, self.other = Plain(self.program), Plain(self.program) | Told(self.program, {},
+            {("main", ()): ["a", "b"]})
         self.table = compared(self.one, self.other)
 
     def is_one(self, held, entered, standing):
@@ -229,7 +234,8 @@ class TableTest(unittest.TestCase):
         # The thing of a is a and x in the first call of f, and a alone in the second one; b is x in that one.
         self.assertEqual(got_held, (("g", ("a",)), ("g", ("a", "x")), ("g", ("b",)), ("g", ("b", "x"))))
         self.assertEqual(list(got_held), held)
-        for state in (a, b, ("g", ("v",)), ("h", ("z",)), ("f", ("a", "x")), ("h", ("a", "x", "y")), ("h", ("a", "y")), *held):
+        for state in (a, b, ("g", ("v",)), ("h", ("z",)), ("f", ("a", "x")), ("h", ("a", "x", "y")), ("h", ("a", "y")),
+            *held):
             self.assertIn(state, entered)
         for state in (x, y, ("f", ("x",)), ("k", ("p",)), ("h", ("b", "y"))):
             self.assertNotIn(state, entered)
@@ -272,7 +278,8 @@ class TableTest(unittest.TestCase):
             spoiled = [table]
             for part in range(3):
                 for state in table[part]:
-                    spoiled.append(tuple(tuple(s for s in states if s != state or k != part) for k, states in enumerate(table)))
+                    spoiled.append(tuple(tuple(s for s in states if s != state or k != part) for k,
+                        states in enumerate(table)))
             for parts in spoiled:
                 broken = plain_tables.faults(one, other, parts)
                 self.assertIs(is_compared(one, other, ("table", *parts)), not broken)
@@ -321,15 +328,19 @@ class TableTest(unittest.TestCase):
         wrong = [
             self.table[1:], (*self.table, ()), ("Table", held, entered, standing), ("tables", held, entered, standing),
             list(self.table), (word, list(held), entered, standing), (word, held, list(entered), standing),
-            (word, held, entered, list(standing)), (word, held[::-1], entered, standing), (word, held, entered[::-1], standing),
+            (word, held, entered, list(standing)), (word, held[::-1], entered, standing),
+                (word, held, entered[::-1], standing),
             (word, held, entered, standing[::-1]), (word, held, entered + entered[-1:], standing),
             (word, held[:1] + held, entered, standing), (word, held, entered, (*standing, standing[-1])),
             ("world", held, entered, standing), (word, held, entered), (word,), (word, (held, entered, standing)),
             (None, held, entered, standing), ([word], held, entered, standing),
         ]
-        for value in any_values() + [("f",), ("f", ()), ("f", ("x", "a")), ("f", ("a", "a")), ("f", ["a", "x"]), ["f", ("a", "x")],
-                                     ("f", ("a", "x"), ()), ("f", "a"), ("f", "ax"), ("f", ("y",)), ("f", ("a", None)), ("f", (1,)),
-                                     ("k", ("p",)), ("k", ("a",)), ("nobody", ("a",)), (["f"], ("a",)), (None, ("a",)), ("f", (("a",),)),
+        for value in any_values() + [("f",), ("f", ()), ("f", ("x", "a")), ("f", ("a", "a")), ("f", ["a", "x"]),
+            ["f", ("a", "x")],
+                                     ("f", ("a", "x"), ()), ("f", "a"), ("f", "ax"), ("f", ("y",)), ("f", ("a", None)),
+                                         ("f", (1,)),
+                                     ("k", ("p",)), ("k", ("a",)), ("nobody", ("a",)), (["f"], ("a",)), (None, ("a",)),
+                                         ("f", (("a",),)),
                                      ("f", ("a", ["x"]))]:
             for part in (1, 2, 3):
                 for at in (0, len(self.table[part])):
@@ -339,15 +350,18 @@ class TableTest(unittest.TestCase):
                 wrong.append((*self.table[:part], value, *self.table[part + 1:]))
                 wrong.append((*self.table[:part], (value,), *self.table[part + 1:]))
         # At the place where they stand in order, too, with all sets closed.
-        for state in (("f", ()), ("f", ("x", "a")), ("f", ("a", "a", "x")), ("f", ("y",)), ("h", ("p",)), ("h", ("a", "v")),
-                      ("k", ("p",)), ("k", ("a",)), ("nobody", ("a",)), ("main", ("n",)), ("main", ("x",)), ("f", ("f",))):
+        for state in (("f", ()), ("f", ("x", "a")), ("f", ("a", "a", "x")), ("f", ("y",)), ("h", ("p",)),
+            ("h", ("a", "v")),
+                      ("k", ("p",)), ("k", ("a",)), ("nobody", ("a",)), ("main", ("n",)), ("main", ("x",)),
+                          ("f", ("f",))):
             wrong.append((word, held, tuple(sorted({*entered, state})), standing))
             wrong.append((word, held, entered, tuple(sorted({*standing, state}))))
             if state[0] != "main":
                 wrong.append((word, *[tuple(sorted({*states, state})) for states in (held, entered, standing)]))
         # States of closures have no variables of their own function.
         for state in (("g", ("a", "v")), ("g", ("v",))):
-            wrong.append((word, tuple(sorted({*held, state})), tuple(sorted({*entered, state})), tuple(sorted({*standing, state}))))
+            wrong.append((word, tuple(sorted({*held, state})), tuple(sorted({*entered, state})),
+                tuple(sorted({*standing, state}))))
         self.assertIn(f, entered)
         self.assertTrue(is_compared(self.one, self.other, self.table))
         for value in wrong:
@@ -390,8 +404,10 @@ class WorldTest(unittest.TestCase):
         for moment in range(many):
             self.assertIs(is_compared(one, other, ("world", fine[1], moment, 1)), True)
         turn = fine[1][0]
-        worlds = [[], (), [turn, None], [list(turn)], [turn[:4]], [(1, *turn[1:])], [(False, *turn[1:])], [(0, (True,), *turn[2:])],
-                  [(*turn[:2], (0, 0, 0), (), ())], [(*turn[:3], (2,), ())], [(*turn[:4], (1,))], turn, fine[1][0][1], {0: turn}]
+        worlds = [[], (), [turn, None], [list(turn)], [turn[:4]], [(1, *turn[1:])], [(False, *turn[1:])],
+            [(0, (True,), *turn[2:])],
+                  [(*turn[:2], (0, 0, 0), (), ())], [(*turn[:3], (2,), ())], [(*turn[:4], (1,))], turn, fine[1][0][1],
+                      {0: turn}]
         for world in worlds + any_values():
             self.assertIs(is_compared(one, other, ("world", world, 0, 1)), False)
         for moment in any_values() + [many, -1, True, False, "0", (0,)]:
@@ -401,7 +417,8 @@ class WorldTest(unittest.TestCase):
         for thing in any_values() + [True, False, "1", (1,), [1], 2, -9]:
             if not (type(thing) is int and thing in (1, -1)):
                 self.assertIs(is_compared(one, other, ("world", fine[1], 0, thing)), False)
-        for value in (fine[1:], (*fine, 0), list(fine), ("table", *fine[1:]), (None, *fine[1:]), (["world"], *fine[1:])):
+        for value in (fine[1:], (*fine, 0), list(fine), ("table", *fine[1:]), (None, *fine[1:]),
+            (["world"], *fine[1:])):
             self.assertIs(is_compared(one, other, value), False)
         # At the moment None nothing stands, and only the closure of main is held.
         self.assertIs(is_compared(one, other, ("world", fine[1], None, 1)), False)
@@ -421,7 +438,8 @@ class WorldTest(unittest.TestCase):
     def test_any_values(self):
         for program in (pair(), nest()):
             for one, other in ((Plain(program), Plain(program)), (everything(program), Plain(program))):
-                for value in any_values() + [compared, "table", "world", ("table",), ("world",), (one, other), ("table", one, other, one)]:
+                for value in any_values() + [compared, "table", "world", ("table",), ("world",), (one, other),
+                    ("table", one, other, one)]:
                     self.assertIs(is_compared(one, other, value), False)
 
 
@@ -434,7 +452,8 @@ class LongTurnsTest(unittest.TestCase):
         again = Function("again", body=[shift])
         body = [Either([Call("slow", [])] * many + [shift], [])]
         f = Function("f", things, functions=[again] if gives else [], body=[Give("again"), *body] if gives else body)
-        return Program(Function("main", ["a"], things=["b"], numbers=["n"], functions=[slow, f], body=[Call("f", ["a", *["b"] * 7])]))
+        return Program(Function("main", ["a"], things=["b"], numbers=["n"], functions=[slow, f],
+            body=[Call("f", ["a", *["b"] * 7])]))
 
     def shown(self, one, other):
         value = compared(one, other)
@@ -471,9 +490,11 @@ class LongTurnsTest(unittest.TestCase):
         turn = Call("f", [names[at] for at in order])
         inner = [Function("again", body=[turn])] if gives else []
         body = [Give("again")] if gives else []
-        f = Function("f", names, functions=inner, body=[*body, Either([Call("slow", [])] * (34 if gives else 36) + [turn], [])])
+        f = Function("f", names, functions=inner, body=[*body,
+            Either([Call("slow", [])] * (34 if gives else 36) + [turn], [])])
         passed = ["a" if at in (0, 2, 5) else "b" for at in range(10)]
-        program = Program(Function("main", ["a", "b"], numbers=["n"], functions=[slower, slow, f], body=[Call("f", passed)]))
+        program = Program(Function("main", ["a", "b"], numbers=["n"], functions=[slower, slow, f],
+            body=[Call("f", passed)]))
         return program, names, order, {names[0], names[2], names[5]}
 
     def test_a_way_that_is_too_long_in_one_turn(self):
@@ -593,7 +614,8 @@ class ExcessesTest(unittest.TestCase):
                         self.assertLessEqual(seen, set(found))
                         shown += len(seen)
             for name, point, thing in chance.sample(found, min(6, len(found))):
-                alone = Told(program, {name: [thing]}, {}) if point is None else Told(program, {}, {(name, point): [thing]})
+                alone = Told(program, {name: [thing]}, {}) if point is None else Told(program, {},
+                    {(name, point): [thing]})
                 self.assertTrue(is_witness(alone, other, compared(alone, other)))
                 proved += 1
         self.assertGreater(shown, 300)
@@ -613,7 +635,7 @@ class ExcessesTest(unittest.TestCase):
                 self.assertEqual(sorted(seen, key=str), sorted(excesses(one, other), key=str))
 
     def scenes(self, played):
-        """What stands and is held at the moments of the last turn: sets of tuples (name, point, pairs of names and things)."""
+        """What stands and is held at the moments of the last turn: sets of tuples (name, point, (variable, thing) ..)."""
         found = set()
         for moment in range(len(played.seen)):
             rows = [(name, point, tuple(things.items())) for name, point, things in played.stack_at(moment)]
@@ -641,7 +663,7 @@ class ExcessesTest(unittest.TestCase):
 
 
 def all_worlds(program):
-    """Worlds of at most two turns, in which a turn takes one closure or none, and drops all, the one that is called, or none."""
+    """Worlds of at most two turns: each takes one closure or none, and drops all, the one that is called, or none."""
     found = []
     for world in [[]] + [[turn] for turn in turns(program, [])]:
         found += [world + [turn] for turn in turns(program, world)]

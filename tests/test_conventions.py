@@ -52,7 +52,8 @@ class Case:
             "keeps": lambda: keeps_no_more(self.one, self.other), "plain": lambda: tells(Plain(self.program)),
             "both": lambda: tells(self.one & self.other), "any": lambda: tells(self.one | self.other),
             "choice": self.layout.choice, "layout": lambda: tells(self.layout),
-            "flat": lambda: Layout.flat(self.program).choice(), "chained": lambda: Layout.chained(self.program).choice(),
+            "flat": lambda: Layout.flat(self.program).choice(),
+                "chained": lambda: Layout.chained(self.program).choice(),
         }
         for name in self.program.functions:
             calls[f"points {name}"] = lambda name=name: points(self.program, name)
@@ -127,7 +128,8 @@ class ConventionsTest(unittest.TestCase):
             bundles, linked, opened = [list(bundle) for bundle in choice[0]], list(choice[1]), list(choice[2])
             layout = Layout(program, bundles=bundles, linked=linked, opened=opened)
             before = tells(layout)
-            self.assertEqual((bundles, linked, opened), ([list(bundle) for bundle in choice[0]], list(choice[1]), list(choice[2])))
+            self.assertEqual((bundles, linked, opened), ([list(bundle) for bundle in choice[0]], list(choice[1]),
+                list(choice[2])))
             spoil([bundles, linked, opened])
             self.assertEqual((layout.choice(), tells(layout)), (choice, before))
 
@@ -135,8 +137,10 @@ class ConventionsTest(unittest.TestCase):
         for case in self.cases():
             before = tells(case.layout), case.layout.choice()
             for call in (
-                lambda: case.layout.unbundled(99), lambda: case.layout.joined("nobody", None), lambda: case.layout.with_link(None, 1),
-                lambda: case.layout.closure(["f"]), lambda: case.layout.frame("nobody", ()), lambda: case.layout.reach([]),
+                lambda: case.layout.unbundled(99), lambda: case.layout.joined("nobody", None),
+                    lambda: case.layout.with_link(None, 1),
+                lambda: case.layout.closure(["f"]), lambda: case.layout.frame("nobody", ()),
+                    lambda: case.layout.reach([]),
                 lambda: kept_at(case.layout, [None], 0),
             ):
                 with self.assertRaises((LookupError, ValueError)):

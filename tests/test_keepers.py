@@ -31,7 +31,8 @@ def table(keeper):
     """All that a keeper tells."""
     program = keeper.program
     closures = {name: keeper.closure(name) for name in program.functions}
-    return closures, {(name, point): keeper.frame(name, point) for name in program.functions for point in points(program, name)}
+    return closures, {(name, point): keeper.frame(name, point) for name in program.functions
+        for point in points(program, name)}
 
 
 class QueriesTest(unittest.TestCase):
@@ -151,7 +152,8 @@ class EqualityTest(unittest.TestCase):
         for at, program in enumerate(programs(200)):
             chance = random.Random(at)
             one, other = made_keeper(chance, program), made_keeper(chance, program)
-            for first, second in ((one, other), (one, changed(chance, one)), (made_layout(chance, program), Plain(program))):
+            for first, second in ((one, other), (one, changed(chance, one)),
+                (made_layout(chance, program), Plain(program))):
                 self.assertIs(first == second, table(first) == table(second))
                 equal += first == second
         self.assertGreater(equal, 40)
@@ -161,7 +163,8 @@ class PlainTest(unittest.TestCase):
     def test_small(self):
         plain = Plain(small())
         self.assertEqual([plain.closure(name) for name in small().functions], [(), ("a", "b"), ("a", "x"), (), ()])
-        self.assertEqual([plain.frame("main", point) for point in ((), (0,), (1,))], [("a", "b", "z"), ("a", "b", "z"), ()])
+        self.assertEqual([plain.frame("main", point) for point in ((), (0,), (1,))],
+            [("a", "b", "z"), ("a", "b", "z"), ()])
         want = {
             (): ("a", "b", "c", "x"), (0,): ("c",), (0, 0): ("a", "b", "c", "x"), (0, 0, 0): ("c",), (0, 1): ("c",),
             (0, 1, 0): ("c",), (1,): (),
@@ -221,7 +224,8 @@ class ToldTest(unittest.TestCase):
 
     def test_what_is_told(self):
         told = Told(self.program, {"g": ["z", "a", "c", "a", "z"], "f": ("b", "a"), "k": ["h"]},
-                    {("f", (0, 0)): ["x", "c", "a", "x"], ("main", ()): ("b",), ("g", (1,)): [], ("k", (0,)): ("h", "a")})
+                    {("f", (0, 0)): ["x", "c", "a", "x"], ("main", ()): ("b",), ("g", (1,)): [],
+                        ("k", (0,)): ("h", "a")})
         self.assertEqual([told.closure(name) for name in ("main", "f", "g", "u", "k")],
                          [(), ("a", "b"), ("a", "c", "z"), (), ("h",)])
         kept = {key: things for key, things in table(told)[1].items() if things}
@@ -230,7 +234,8 @@ class ToldTest(unittest.TestCase):
     def test_all_things_of_the_chain(self):
         program = self.program
         closures = {name: program.chain_things(program.parent(name)) for name in program.functions[1:]}
-        frames = {(name, point): program.chain_things(name) for name in program.functions for point in points(program, name)}
+        frames = {(name, point): program.chain_things(name) for name in program.functions
+            for point in points(program, name)}
         told = Told(program, closures, frames)
         for name in program.functions[1:]:
             self.assertEqual(told.closure(name), tuple(sorted(closures[name])))
@@ -241,7 +246,8 @@ class ToldTest(unittest.TestCase):
         for at, program in enumerate(programs(100)):
             told = made_told(random.Random(at), program, 0.5)
             closures, frames = table(told)
-            again = Told(program, {name: closures[name][::-1] * 2 for name in closures if name != program.functions[0]}, frames)
+            again = Told(program, {name: closures[name][::-1] * 2 for name in closures
+                if name != program.functions[0]}, frames)
             self.assertEqual(again, told)
 
     def refused(self, error, value, closures, frames):
@@ -257,15 +263,18 @@ class ToldTest(unittest.TestCase):
 
     def test_keys_of_frames(self):
         keys = [value for value in any_values() if not isinstance(value, (list, dict)) and hashable(value)]
-        keys += ["f", "main", ("f",), ("f", (), ()), ("f", 0), ("f", None), ("x", ()), ("n", ()), ("nobody", ()), (None, ()), (1, ())]
-        keys += [("f", (True,)), ("f", (0, False)), ("f", (2,)), ("f", (1, 0)), ("f", ("0",)), ("f", ((0,),)), (("f",), ()), ((), "f")]
+        keys += ["f", "main", ("f",), ("f", (), ()), ("f", 0), ("f", None), ("x", ()), ("n", ()), ("nobody", ()),
+            (None, ()), (1, ())]
+        keys += [("f", (True,)), ("f", (0, False)), ("f", (2,)), ("f", (1, 0)), ("f", ("0",)), ("f", ((0,),)),
+            (("f",), ()), ((), "f")]
         for key in keys:
             self.refused(UnknownPoint, key, {"f": []}, {("main", ()): [], key: [], ("x", 1): []})
             self.refused(UnknownPoint, key, {"f": ["wrong"]}, {key: ["wrong"]})
 
     def test_variables_of_closures(self):
         for value in any_values() + ["x", "c", "n", "y", "h", "f", "main", "nobody", ["a"], ("a",)]:
-            self.refused(UnknownName, value, {"g": ["a"], "f": ["a", value, "wrong"], "u": ["wrong"]}, {("f", ()): ["wrong"]})
+            self.refused(UnknownName, value, {"g": ["a"], "f": ["a", value, "wrong"], "u": ["wrong"]},
+                {("f", ()): ["wrong"]})
         for value in ("y", "n", "h", "g"):
             self.refused(UnknownName, value, {"g": ("x", "c", value)}, {})
 
@@ -325,28 +334,27 @@ class SignsTest(unittest.TestCase):
         self.assertEqual((one | other).closure("f"), ("a", "b", "z"))
         self.assertEqual((one & other).program, program)
 
+    def look(self, one, other):
+        """Both signs, at all places."""
+        first, second, both, any_of = table(one), table(other), table(one & other), table(one | other)
+        for part in (0, 1):
+            for key in first[part]:
+                kept, more = set(first[part][key]), set(second[part][key])
+                self.assertEqual(both[part][key], tuple(sorted(kept & more)))
+                self.assertEqual(any_of[part][key], tuple(sorted(kept | more)))
+
     def test_all_classes(self):
         program = small()
         for one in keepers_of(program):
             for other in keepers_of(small()):
-                first, second, both, any_of = table(one), table(other), table(one & other), table(one | other)
-                for part in (0, 1):
-                    for key in first[part]:
-                        kept, more = set(first[part][key]), set(second[part][key])
-                        self.assertEqual(both[part][key], tuple(sorted(kept & more)))
-                        self.assertEqual(any_of[part][key], tuple(sorted(kept | more)))
+                self.look(one, other)
 
     def test_many_keepers(self):
         for at, program in enumerate(programs(150)):
             chance = random.Random(at)
             one, other = made_keeper(chance, program), made_keeper(chance, program)
             before = table(one), table(other)
-            first, second, both, any_of = table(one), table(other), table(one & other), table(one | other)
-            for part in (0, 1):
-                for key in first[part]:
-                    kept, more = set(first[part][key]), set(second[part][key])
-                    self.assertEqual(both[part][key], tuple(sorted(kept & more)))
-                    self.assertEqual(any_of[part][key], tuple(sorted(kept | more)))
+            self.look(one, other)
             self.assertEqual((table(one), table(other)), before)
             self.assertTrue(one & one == one == one | one)
             self.assertEqual((one & other) | one, one)

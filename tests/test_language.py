@@ -118,16 +118,19 @@ class LooksTest(unittest.TestCase):
         return [name for _, _, name in look({"heldby/a.py": text})]
 
     def test_names(self):
-        for text in ("def open(a):\n    return a\n", "open = 1\n", "def f(id):\n    return id\n", "def f():\n    len = 1\n"):
+        for text in ("def open(a):\n    return a\n", "open = 1\n", "def f(id):\n    return id\n",
+            "def f():\n    len = 1\n"):
             self.assertNotEqual(self.found(language.name_faults, text), [])
         self.assertEqual(self.found(language.name_faults, OTHER.replace("ROW", "self.items = 1")), ["items"])
-        self.assertEqual(self.found(language.name_faults, "class Box:\n    pass\ndef f(Box):\n    return Box\n"), ["Box"])
+        self.assertEqual(self.found(language.name_faults, "class Box:\n    pass\ndef f(Box):\n    return Box\n"),
+            ["Box"])
         self.assertEqual(self.found(language.name_faults, "from heldby.b import c\ndef c():\n    return 1\n"), ["c"])
 
     def test_attributes(self):
         self.assertEqual(self.found(language.attribute_faults, "def f(a):\n    return a.b\n"), ["b"])
         self.assertEqual(self.found(language.attribute_faults, "def f(a):\n    a.b = 1\n    return a.b()\n"), ["b"])
-        self.assertEqual(self.found(language.attribute_faults, "class A:\n    def b(self):\n        self.b = 1\n"), ["b"])
+        self.assertEqual(self.found(language.attribute_faults, "class A:\n    def b(self):\n        self.b = 1\n"),
+            ["b"])
 
     def test_forms(self):
         for row in ("any(b for b in a)", "1 / 2", "1.5", "a is b", "'50%'", "Box.at(a)"):
@@ -138,7 +141,8 @@ class LooksTest(unittest.TestCase):
     def test_loops(self):
         for row in ("a.append(b)", "a[b] = 1", "del a[b]", "heappush(a, b)"):
             for head in ("b in a", "b in reversed(a)", "b, c in a.items()", "b, c in enumerate(a)"):
-                self.assertEqual(len(self.found(language.loop_faults, f"def f(a):\n    for {head}:\n        {row}\n")), 1)
+                self.assertEqual(len(self.found(language.loop_faults, f"def f(a):\n    for {head}:\n        {row}\n")),
+                    1)
         self.assertEqual(self.found(language.loop_faults, "def f(a, c):\n    for b in a:\n        c.append(b)\n"), [])
 
     def test_imports(self):

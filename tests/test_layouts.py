@@ -70,8 +70,8 @@ class ChoiceTest(unittest.TestCase):
         self.assertEqual(layout.choice(), before)
 
     def test_listed_methods_stand_in_the_class(self):
-        names = "choice bundles linked opened wanted recorded units reach flat chained unbundled joined with_link with_open refines"
-        for name in names.split():
+        names = "choice bundles linked opened wanted recorded units reach flat chained unbundled joined"
+        for name in [*names.split(), "with_link", "with_open", "refines"]:
             self.assertIn(name, vars(Layout))
 
     def test_later_changes(self):
@@ -113,7 +113,8 @@ class ErrorsTest(unittest.TestCase):
                 self.refused(InvalidBundle, "index", -1, bundles=value, linked=None, opened=None)
 
     def test_wrong_bundles(self):
-        wrong = any_values() + ["ab", "a", ["a"], ("a",), [], ["a", "a"], ["a", "b", "a"], ["a", "x"], ["x", "y"], ["a", "d"]]
+        wrong = any_values() + ["ab", "a", ["a"], ("a",), [], ["a", "a"], ["a", "b", "a"], ["a", "x"], ["x", "y"],
+            ["a", "d"]]
         wrong += [["d", "a"], ["a", "q"], ["q", "a"], ["a", "f"], ["a", "main"], [["a", "b"]], ["a", ["b"]], ["w", "x"]]
         wrong += [["y", "v"], ["n", "m"], ["a", "b", "x"], {"a": 1, "b": 2}]
         wrong += [["a", value] for value in any_values()] + [[value, "a", "b"] for value in any_values()]
@@ -273,7 +274,8 @@ class RefinesTest(unittest.TestCase):
         for at, program in enumerate(programs(200, 2)):
             chance = random.Random(at)
             one, other = made_layout(chance, program), made_layout(chance, program)
-            for first, second in ((one, other), (other, one), (Layout.flat(program), one), (one, Layout.chained(program))):
+            for first, second in ((one, other), (other, one), (Layout.flat(program), one),
+                (one, Layout.chained(program))):
                 want = all(any(set(row) <= set(wider) for wider in second.bundles) for row in first.bundles)
                 want = want and set(first.linked) <= set(second.linked) and set(second.opened) <= set(first.opened)
                 self.assertIs(first.refines(second), want)
@@ -333,7 +335,8 @@ class FactsTest(unittest.TestCase):
                 bundles = [bundle for bundle in coarse.bundles if chance.random() < 0.7]
                 linked = [name for name in coarse.linked if chance.random() < 0.7]
                 opened = [name for name in program.used[1:] if name in coarse.opened or chance.random() < 0.3]
-                fine = Layout(program, bundles=[row[:max(2, len(row) - 1)] for row in bundles], linked=linked, opened=opened)
+                fine = Layout(program, bundles=[row[:max(2, len(row) - 1)] for row in bundles], linked=linked,
+                    opened=opened)
                 self.assertTrue(fine.refines(coarse))
                 unlike += self.less(fine, coarse)
         self.assertGreater(unlike, 20)

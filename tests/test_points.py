@@ -88,7 +88,8 @@ class RestsTest(unittest.TestCase):
         program = Program(Function("main", ["a"], body=[Show("a"), Either([Show("a")], [])]))
         for point in ((), (0,), (1,), (1, 0), (1, 1), (1, 0, 0)):
             self.assertIs(program.is_point("main", point), True)
-        for value in any_values() + [(True,), (1, False), (1, 0, False), (0, 0), (2,), (-1,), (1, 2), [0], ((0,),), ([],)]:
+        for value in any_values() + [(True,), (1, False), (1, 0, False), (0, 0), (2,), (-1,), (1, 2), [0], ((0,),),
+            ([],)]:
             if value != ():
                 self.assertIs(program.is_point("main", value), False)
 

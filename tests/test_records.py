@@ -72,6 +72,21 @@ class ItemsTest(unittest.TestCase):
         self.looked(layout, {"s": "a x", "g": "f! x k", "r": "b f! x k", "f": "a b"},
                     {"s": "f! x", "g": "f! x k", "r": "f! x k", "f": "a b"})
 
+    def test_functions_that_call_and_give_themselves_and_each_other(self):
+        p = Function("p", ["v"], body=[Either([Call("p", ["v"]), Give("p"), Give("q")], [Show("a")])])
+        q = Function("q", body=[Give("q"), Either([Call("p", ["x"])], [Show("b"), Call("q", [])])])
+        f = Function("f", ["x"], functions=[p, q], body=[Give("q"), Either([Give("f")], [])])
+        program = Program(Function("main", things=["a", "b"], functions=[f], body=[Give("f")]))
+        want = {"p": "a b x", "q": "a b x", "f": "a b"}
+        self.looked(Layout(program), want, want)
+        # p makes records of p, too, which have that of f; so it is an item of p, and of q.
+        self.looked(Layout(program, linked=["p"]), {"p": "a b f! x", "q": "b f! x", "f": "a b"},
+                    {"p": "f! x", "q": "b f! x", "f": "a b"})
+        self.looked(Layout(program, linked=["p", "q", "f"]), {"p": "a f! x", "q": "b f! x", "f": "a b"},
+                    {"p": "f! x", "q": "f! x", "f": "a b"})
+        self.looked(Layout(program, linked=["q"]), {"p": "a f! x", "q": "a b f! x", "f": "a b"},
+                    {"p": "a f! x", "q": "f! x", "f": "a b"})
+
     def test_units(self):
         layout = Layout(deep(), bundles=[["n", "a"], ["x", "m", "z"]], linked=["g"])
         first, second = ("bundle", ("a", "n")), ("bundle", ("x", "z", "m"))
@@ -84,12 +99,14 @@ class ItemsTest(unittest.TestCase):
         layout = Layout(deep(), bundles=[["c", "b"], ["x", "m"]])
         self.assertEqual(layout.units("f"), (("bundle", ("c", "b")), ("alone", "a"), ("alone", "n")))
         self.assertEqual(layout.units("g"),
-                         (("alone", "a"), ("bundle", ("c", "b")), ("alone", "n"), ("bundle", ("x", "m")), ("alone", "z")))
+                         (("alone", "a"), ("bundle", ("c", "b")), ("alone", "n"), ("bundle", ("x", "m")),
+                             ("alone", "z")))
 
     def test_reach(self):
         layout = Layout(deep(), bundles=[["n", "a", "b"], ["x", "m"]], linked=["g", "h"])
         want = {
-            ("alone", "c"): ("c",), ("alone", "z"): ("z",), ("alone", "y"): ("y",), ("bundle", ("a", "b", "n")): ("a", "b"),
+            ("alone", "c"): ("c",), ("alone", "z"): ("z",), ("alone", "y"): ("y",),
+                ("bundle", ("a", "b", "n")): ("a", "b"),
             ("bundle", ("x", "m")): ("x",), ("record", "main"): (), ("record", "f"): ("a", "b", "c"),
             ("record", "g"): ("a", "b", "c", "x", "z"), ("record", "h"): ("a", "b", "c", "x", "y", "z"),
             ("record", "e"): ("a", "b", "c"),
@@ -117,7 +134,8 @@ class ItemsTest(unittest.TestCase):
             ("alone", "q"), ("alone", "f"), ("alone", ("c",)), ["alone", "c"], ("alone", "c", "c"), ("bundle", "a"),
             ("bundle", ("b", "a")), ("bundle", ["a", "b"]), ("bundle", ("a",)), ("bundle", ("x", "z")), ("bundle", ()),
             ("bundle", ("x", "m", "z")), ("record", "k"), ("record", "i"), ("record", "a"), ("record", ("f",)),
-            ("record", "nobody"), ("variable", "c"), ("Record", "f"), (["record"], "f"), ("record", ["f"]), ("record", {}),
+            ("record", "nobody"), ("variable", "c"), ("Record", "f"), (["record"], "f"), ("record", ["f"]),
+                ("record", {}),
             (("alone", "c"),), ("a", "b"), ("bundle", ("a", ["b"])), ("bundle", (("a", "b"),)),
         ]
         wrong += [(value, "f") for value in any_values()] + [("alone", value) for value in any_values()]
@@ -144,7 +162,8 @@ class ItemsTest(unittest.TestCase):
                     self.assertEqual(layout.units(name), units(layout, layout.recorded(name)))
                     self.assertEqual(layout.reach(("record", name)), tuple(sorted(want.reach_of_record(name))))
                     for kind, value in layout.units(name):
-                        kinds["record in record"] += kind == "record" and any(u[0] == "record" for u in layout.units(value))
+                        kinds["record in record"] += kind == "record" and any(u[0] == "record"
+                            for u in layout.units(value))
                         kinds["number in bundle"] += kind == "bundle" and any(is_number(program, v) for v in value)
                         kinds["number alone"] += kind == "alone" and is_number(program, value)
                         kinds["record for others"] += kind == "record" and name not in layout.linked

@@ -24,7 +24,8 @@ def counting():
 
 def turning():
     """f calls itself as often as the world likes, with its own thing y, and then shows x."""
-    f = Function("f", ["x"], things=["y"], numbers=["k"], functions=[Function("g", body=[Show("x"), Show("y"), Show("k")])],
+    f = Function("f", ["x"], things=["y"], numbers=["k"], functions=[Function("g",
+        body=[Show("x"), Show("y"), Show("k")])],
                  body=[Add("k", 1), Either([Call("f", ["y"]), Add("k", 1)], [Give("g")]), Show("x")])
     return Program(Function("main", ["a"], things=["b"], functions=[f], body=[Call("f", ["a"])]))
 
@@ -39,7 +40,8 @@ class MomentsTest(unittest.TestCase):
     """What stands at each moment."""
 
     def test_a_single_frame(self):
-        program = Program(Function("main", ["a"], things=["b"], numbers=["n"], body=[Show("a"), Add("n", 2), Show("n")]))
+        program = Program(Function("main", ["a"], things=["b"], numbers=["n"],
+            body=[Show("a"), Add("n", 2), Show("n")]))
         world = [(0, (7,), (), (), ())]
         self.assertEqual(count_moments(program, world), 4)
         things = {"a": 7, "b": -1}
@@ -62,8 +64,10 @@ class MomentsTest(unittest.TestCase):
         want = [
             [("main", (), main)], [("main", (0,), main)],
             # The frame that calls is at the point behind the call as soon as the called function is entered.
-            [("main", (1,), main), ("f", (), first)], [("main", (1,), main), ("f", (0,), first)], [("main", (1,), main)],
-            [("main", (2,), main), ("f", (), second)], [("main", (2,), main), ("f", (0,), second)], [("main", (2,), main)],
+            [("main", (1,), main), ("f", (), first)], [("main", (1,), main), ("f", (0,), first)],
+                [("main", (1,), main)],
+            [("main", (2,), main), ("f", (), second)], [("main", (2,), main), ("f", (0,), second)],
+                [("main", (2,), main)],
         ]
         self.assertEqual(count_moments(program, world), len(want))
         self.assertEqual([stack_at(program, world, moment) for moment in range(len(want))], want)
@@ -119,7 +123,8 @@ class MomentsTest(unittest.TestCase):
 class NumbersTest(unittest.TestCase):
     def test_begin_with_zero_at_each_entry_and_are_shared(self):
         program = counting()
-        world = [(0, (4,), (), (0, 1), ()), (2, (), (), (), ()), (1, (8,), (), (0,), ()), (2, (), (), (), ()), (3, (), (), (), ()),
+        world = [(0, (4,), (), (0, 1), ()), (2, (), (), (), ()), (1, (8,), (), (0,), ()), (2, (), (), (), ()),
+            (3, (), (), (), ()),
                  (0, (6,), (), (), ()), (2, (), (), (), ())]
         self.assertEqual(shows_of(program, world), [
             [("n", 0), ("m", 5), ("x", 4), ("y", -1)],
@@ -143,10 +148,12 @@ class NumbersTest(unittest.TestCase):
 class OwnThingsTest(unittest.TestCase):
     def test_in_the_order_in_which_they_are_made(self):
         f = Function("f", things=["d", "c"], body=[Show("c"), Show("d")])
-        program = Program(Function("main", things=["b", "a"], functions=[f], body=[Call("f", []), Show("a"), Call("f", [])]))
+        program = Program(Function("main", things=["b", "a"], functions=[f],
+            body=[Call("f", []), Show("a"), Call("f", [])]))
         turn = (0, (), (), (), ())
         self.assertEqual(shows_of(program, [turn, turn]), [
-            [("c", -4), ("d", -3), ("a", -2), ("c", -6), ("d", -5)], [("c", -10), ("d", -9), ("a", -8), ("c", -12), ("d", -11)],
+            [("c", -4), ("d", -3), ("a", -2), ("c", -6), ("d", -5)],
+                [("c", -10), ("d", -9), ("a", -8), ("c", -12), ("d", -11)],
         ])
         self.assertEqual(stack_at(program, [turn], 1)[1], ("f", (), {"b": -1, "a": -2, "d": -3, "c": -4}))
 
@@ -170,7 +177,8 @@ class HeldTest(unittest.TestCase):
         held = [self.numbers(world, moment) for moment in range(count_moments(self.program, world))]
         self.assertEqual(held, [[0], [0, 1], [0, 1], [0, 1, 2], [0, 1, 2], [0, 1, 2, 3]])
         self.assertEqual(self.numbers(world, None), [0, 1, 2, 3])
-        self.assertEqual(held_at(self.program, world, 3), [(0, "main", {}), (1, "f", {"a": 1}), (2, "g", {"a": 1, "x": 1})])
+        self.assertEqual(held_at(self.program, world, 3), [(0, "main", {}), (1, "f", {"a": 1}),
+            (2, "g", {"a": 1, "x": 1})])
 
     def test_refused(self):
         for takes in ((), (0,), (1,), (2,), (0, 2), (1, 2)):
@@ -290,10 +298,14 @@ class ErrorsTest(unittest.TestCase):
         self.fine([self.first, fine])
         spoiled = {
             0: any_values() + [3, -1, True, False, (0,), 10 ** 30],
-            1: any_values() + [(1,), (1, 2, 3), (1, True), (False, 1), (1, -1), (1, 10 ** 30 + 1), [1, 2], (1, None), (1, "2"), (1, (2,))],
-            2: any_values() + [(1, 1, 2), (-1,), (True,), (1, False), [1, 1], (1, 1, None), (None,), ("0",), (2,), ((1,),)],
-            3: any_values() + [(1, 0), (0, 0), (True,), (0, True), (-1, 0), [0], (None,), ("0",), (0, 1, 1), ((0,),), (False, 1)],
-            4: any_values() + [(2, 1), (1, 1), (True,), (3,), (-1,), [1], (None,), ("1",), (0, 1, 2, 3), ((1,),), (False, 1)],
+            1: any_values() + [(1,), (1, 2, 3), (1, True), (False, 1), (1, -1), (1, 10 ** 30 + 1), [1, 2], (1, None),
+                (1, "2"), (1, (2,))],
+            2: any_values() + [(1, 1, 2), (-1,), (True,), (1, False), [1, 1], (1, 1, None), (None,), ("0",), (2,),
+                ((1,),)],
+            3: any_values() + [(1, 0), (0, 0), (True,), (0, True), (-1, 0), [0], (None,), ("0",), (0, 1, 1), ((0,),),
+                (False, 1)],
+            4: any_values() + [(2, 1), (1, 1), (True,), (3,), (-1,), [1], (None,), ("1",), (0, 1, 2, 3), ((1,),),
+                (False, 1)],
         }
         for at, values in spoiled.items():
             for value in values:
@@ -415,7 +427,8 @@ class LongWorldsTest(unittest.TestCase):
         for world in ([too_long], [too_long, None], [endless], [(0, (5,), endless[2], (0,), ())]):
             with self.assertRaises(TooLong):
                 count_moments(program, world)
-        for world, index in (([None, too_long], 0), ([(0, (5,), (1,) * 1000, (), ()), too_long], 0), ([(0, (5,), (2,) * 30000, (), ())], 0)):
+        for world, index in (([None, too_long], 0), ([(0, (5,), (1,) * 1000, (), ()), too_long], 0),
+            ([(0, (5,), (2,) * 30000, (), ())], 0)):
             with self.assertRaises(InvalidWorld) as caught:
                 count_moments(program, world)
             self.assertEqual(caught.exception.index, index)
