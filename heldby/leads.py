@@ -15,10 +15,10 @@ class Leads:
         for name in program.used:
             for statement, after in list(program.steps(name).values()):
                 if isinstance(statement, Call):
-                    passes = _passes(program, statement.name, statement.things)
+                    passes = passes_to(program, statement.name, statement.things)
                     self._calls[name].append((after, statement.name, passes))
                 if isinstance(statement, Give):
-                    self._gives[name].append((after, statement.name, _passes(program, statement.name, ())))
+                    self._gives[name].append((after, statement.name, passes_to(program, statement.name, ())))
 
     def calls_from(self, state):
         """A list of (point, state) for all calls that lead from a state anywhere, with the points behind them."""
@@ -33,7 +33,7 @@ class Leads:
         return {row[1]: True for rows in list(self._gives.values()) for row in rows}
 
 
-def _passes(program, callee, passed):
+def passes_to(program, callee, passed):
     """A dict from thing variables to the lists of the callee's ones that get their things."""
     passes = {thing: [thing] for thing in program.chain_things(program.parent(callee))}
     for parameter, thing in zip(program.function(callee).parameters, passed):

@@ -1,4 +1,7 @@
-"""The parts of a program: functions and statements. They are made with any values and look at nothing."""
+"""The parts of a program: functions and statements. They are made with any values and look at nothing.
+
+Their names are properties, as a name that is a property of any class is assigned in none.
+"""
 
 
 def _copied(value):
@@ -16,42 +19,62 @@ class Show(Statement):
     """Shows a variable to the world."""
 
     def __init__(self, name):
-        self.name = name
+        self._name = name
+
+    @property
+    def name(self):
+        """The name that stands in it."""
+        return self._name
 
     def __eq__(self, other):
-        return isinstance(other, Show) and self.name == other.name
+        return isinstance(other, Show) and self._name == other._name
 
 
 class Add(Statement):
     """Adds an integer to a number."""
 
     def __init__(self, name, many):
-        self.name = name
+        self._name = name
         self.many = many
 
+    @property
+    def name(self):
+        """The name that stands in it."""
+        return self._name
+
     def __eq__(self, other):
-        return isinstance(other, Add) and self.name == other.name and self.many == other.many
+        return isinstance(other, Add) and self._name == other._name and self.many == other.many
 
 
 class Call(Statement):
     """Calls a function with things for its parameters."""
 
     def __init__(self, name, things):
-        self.name = name
+        self._name = name
         self.things = _copied(things)
 
+    @property
+    def name(self):
+        """The name that stands in it."""
+        return self._name
+
     def __eq__(self, other):
-        return isinstance(other, Call) and self.name == other.name and self.things == other.things
+        return isinstance(other, Call) and self._name == other._name and self.things == other.things
 
 
 class Give(Statement):
     """Offers a closure of a function to the world."""
 
     def __init__(self, name):
-        self.name = name
+        self._name = name
+
+    @property
+    def name(self):
+        """The name that stands in it."""
+        return self._name
 
     def __eq__(self, other):
-        return isinstance(other, Give) and self.name == other.name
+        return isinstance(other, Give) and self._name == other._name
 
 
 class Either(Statement):
@@ -69,7 +92,7 @@ class Function:
     """A function with its variables, its inner functions and its body."""
 
     def __init__(self, name, parameters=(), *, things=(), numbers=(), functions=(), body=()):
-        self.name = name
+        self._name = name
         self.parameters = _copied(parameters)
         self.things = _copied(things)
         self.numbers = _copied(numbers)
@@ -77,14 +100,19 @@ class Function:
         self.body = _copied(body)
 
     @property
+    def name(self):
+        """The name of the function."""
+        return self._name
+
+    @property
     def functions(self):
-        """The inner functions; a property, as a name that is one in any class is assigned in none."""
+        """The inner functions."""
         return self._functions
 
     def __eq__(self, other):
         return (
             isinstance(other, Function)
-            and self.name == other.name
+            and self._name == other._name
             and self.parameters == other.parameters
             and self.things == other.things
             and self.numbers == other.numbers

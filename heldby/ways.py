@@ -55,8 +55,9 @@ class Ways:
             point = (*beginning, index)
             if isinstance(statement, Either):
                 for choice, part in enumerate((statement.one, statement.other)):
-                    befores[(*point, choice)] = _joined(way, (1, (choice,), 0))
-                    self._add_befores(befores, part, (*point, choice))
+                    inside = (*point, choice)
+                    befores[inside] = _joined(way, (1, (choice,), 0))
+                    self._add_befores(befores, part, inside)
             way = _joined(way, _statement_way(statement, self._courses))
             befores[point] = way
 

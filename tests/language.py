@@ -156,10 +156,13 @@ def form_faults(texts):
             faults.append((path, node.lineno, value))
         if isinstance(value, str) and ("%" in value or set(value) - {"\n", "\t", *map(chr, range(32, 127))}):
             faults.append((path, node.lineno, value))
+    made = {node.name for _, _, node in methods_of(trees) if "classmethod" in decorators(node)}
+    called = {id(node.func) for _, node in nodes_of(trees, ast.Call)}
     for path, node in nodes_of(trees, ast.Attribute):
-        # A method that is read off a class bars its attributes' names elsewhere.
+        # A method that is read off a class bars its attributes' names elsewhere; class methods are called off it.
         if isinstance(node.value, ast.Name) and node.value.id[0].isupper() and not node.value.id.isupper():
-            faults.append((path, node.lineno, ast.unparse(node)))
+            if node.attr not in made or id(node) not in called:
+                faults.append((path, node.lineno, ast.unparse(node)))
     for path, tree in trees.items():
         for row in tree.body:
             if isinstance(row, ast.Assign) and not (len(row.targets) == 1 and isinstance(row.targets[0], ast.Name)):
@@ -171,6 +174,123 @@ def form_faults(texts):
     for path, node in nodes_of(trees, (ast.BinOp, ast.AugAssign)):
         if isinstance(node.op, ast.Div):
             faults.append((path, node.lineno, "/"))
+    return faults
+
+
+def index_faults(texts):
+    """Stars within the brackets of an index."""
+    return [
+        (path, inner.lineno, ast.unparse(inner)) for path, node in nodes_of(trees_of(texts), ast.Subscript)
+        for inner in ast.walk(node.slice) if isinstance(inner, ast.Starred)
+    ]
+
+
+OPERATORS = {"__eq__", "__len__", "__str__", "__repr__", "__add__", "__and__", "__or__", "__contains__"}
+CHANGING = {"append", "extend", "pop", "remove", "insert", "clear", "update", "setdefault", "reverse", "heappush"}
+
+
+def purity_faults(texts):
+    """What operators and properties, and all that they call by any of its names, change or call without a name.
+
+    Only the assignment of own attributes by an `__init__` is no fault, as it makes a new object.
+    """
+    trees = trees_of(texts)
+    known, waiting = {}, []
+    for path, node in nodes_of(trees, ast.FunctionDef):
+        known.setdefault(node.name, []).append((path, node))
+    for path, made in nodes_of(trees, ast.ClassDef):
+        for node in made.body:
+            if isinstance(node, ast.FunctionDef) and node.name == "__init__":
+                known.setdefault(made.name, []).append((path, node))
+            if isinstance(node, ast.FunctionDef) and ("property" in decorators(node) or node.name in OPERATORS):
+                waiting.append((path, node))
+    objects = {made.name for _, made in nodes_of(trees, ast.ClassDef)}
+    faults, seen = [], set()
+    while waiting:
+        path, function = waiting.pop()
+        if id(function) in seen:
+            continue
+        seen.add(id(function))
+        parameters = {row.arg for row in function.args.args}
+        for node in ast.walk(function):
+            if isinstance(node, (ast.Attribute, ast.Subscript)) and not isinstance(node.ctx, ast.Load):
+                if not (function.name == "__init__" and ast.unparse(node.value) == "self"):
+                    faults.append((path, node.lineno, ast.unparse(node)))
+            if isinstance(node, (ast.AugAssign, ast.Delete, ast.Yield, ast.Lambda, ast.With)):
+                faults.append((path, node.lineno, type(node).__name__))
+            if isinstance(node, ast.Call):
+                name = getattr(node.func, "id", None) or getattr(node.func, "attr", "")
+                if name in CHANGING or name in parameters:
+                    faults.append((path, node.lineno, name))
+                if isinstance(node.func, ast.Name) or name not in VALUE_METHODS:
+                    waiting += known.get(name, [])
+                assert isinstance(node.func, (ast.Name, ast.Attribute)), objects
+    return faults
+
+
+def clash_faults(texts):
+    """Names that a method of one class and an attribute of any class have."""
+    trees = trees_of(texts)
+    methods = {node.name for _, _, node in methods_of(trees)}
+    return [(path, row, name) for path, row, name in assigned_attributes(trees) if name in methods]
+
+
+def generator_faults(texts):
+    """Names of generators that other functions have, too, and generators that are not iterated at once."""
+    trees = trees_of(texts)
+    makers = {
+        node.name for _, node in nodes_of(trees, ast.FunctionDef)
+        if any(isinstance(inner, (ast.Yield, ast.YieldFrom)) for inner in ast.walk(node))
+    }
+    names = [node.name for _, node in nodes_of(trees, ast.FunctionDef)]
+    faults = [("", 0, name) for name in sorted(makers) if names.count(name) > 1]
+    iterated = set()
+    for _, node in nodes_of(trees, (ast.For, ast.comprehension, ast.Call)):
+        if isinstance(node, ast.Call):
+            if ast.unparse(node.func) in {"list", "tuple", "sorted", "dict", "sum"} and node.args:
+                iterated.add(id(node.args[0]))
+        else:
+            iterated.add(id(node.iter))
+    for path, node in nodes_of(trees, ast.Call):
+        name = getattr(node.func, "id", None) or getattr(node.func, "attr", "")
+        if name in makers and id(node) not in iterated:
+            faults.append((path, node.lineno, name))
+    return faults
+
+
+def handler_faults(texts):
+    """Handlers of other errors than own ones, and StopIteration."""
+    trees = trees_of(texts)
+    own = {node.name for _, node in nodes_of(trees, ast.ClassDef)}
+    faults = []
+    for path, node in nodes_of(trees, ast.ExceptHandler):
+        kinds = node.type.elts if isinstance(node.type, ast.Tuple) else [node.type]
+        faults += [(path, node.lineno, ast.unparse(kind)) for kind in kinds if getattr(kind, "id", None) not in own]
+    return faults
+
+
+EXIT_NODES = (
+    ast.FunctionDef, ast.arguments, ast.arg, ast.Assign, ast.Attribute, ast.Name, ast.Load, ast.Store, ast.Constant,
+    ast.If, ast.BoolOp, ast.And, ast.Or, ast.UnaryOp, ast.Not, ast.Return, ast.Pass, ast.Expr,
+)
+
+
+def exit_faults(texts):
+    """What may not stand in an `__exit__` or in a `finally`."""
+    trees = trees_of(texts)
+    rows = [(path, node) for path, _, node in methods_of(trees) if node.name == "__exit__"]
+    rows += [(path, inner) for path, node in nodes_of(trees, ast.Try) for inner in node.finalbody]
+    faults = []
+    for path, row in rows:
+        for node in ast.walk(row):
+            if isinstance(node, ast.Compare):
+                plain = isinstance(node.ops[0], (ast.Is, ast.IsNot)) and ast.unparse(node.comparators[0]) == "None"
+                if not plain or not isinstance(node.left, ast.Name):
+                    faults.append((path, node.lineno, ast.unparse(node)))
+            elif not isinstance(node, (*EXIT_NODES, ast.Is, ast.IsNot, ast.Tuple)):
+                faults.append((path, getattr(node, "lineno", 0), type(node).__name__))
+            if isinstance(node, ast.Name) and node.id in ("value", "trace"):
+                faults.append((path, node.lineno, node.id))
     return faults
 
 

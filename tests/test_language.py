@@ -52,7 +52,8 @@ class LanguageTest(unittest.TestCase):
     def test_no_faults(self):
         for look in (
             language.property_faults, language.name_faults, language.attribute_faults, language.form_faults,
-            language.loop_faults, language.import_faults,
+            language.loop_faults, language.import_faults, language.index_faults, language.purity_faults,
+            language.clash_faults, language.generator_faults, language.handler_faults, language.exit_faults,
         ):
             with self.subTest(look.__name__):
                 self.assertEqual(look(TEXTS), [])
@@ -63,6 +64,13 @@ class LanguageTest(unittest.TestCase):
             "keepers": "points Keeper Plain Told", "layouts": "Layout",
             "worlds": "stack_at held_at kept_at count_moments shows_of",
             "comparing": "keeps_no_more compared is_compared excesses",
+            "runs": "Run Handle", "growth": "growth grown is_grown",
+            "prices": "way_of entry_price statement_prices price family_size family paid cheapest least_price mends"
+            " coarsest",
+            "changes": "Change Renaming Pruning Grafting Lifting Sinking",
+            "texts": "write_program write_layout write_keeper write_world line_of point_at keeper_table",
+            "reading": "read_program read_layout read_keeper read_world is_program_text",
+            "sessions": "Session Trial BoundSession CappedSession StrictSession", "desks": "Desk answers",
         }
         self.assertLessEqual({f"heldby/{stem}.py" for stem in listed}, set(TEXTS))
         for path, tree in self.trees():
@@ -137,6 +145,60 @@ class LooksTest(unittest.TestCase):
             self.assertEqual(len(self.found(language.form_faults, f"def f(a, b):\n    c = [{row}]\n")), 1, row)
         for row in ("zip(a, b)", "set(a)", "a.items()", "range(3)"):
             self.assertEqual(len(self.found(language.form_faults, f"def f(a, b):\n    c = {row}\n")), 1, row)
+
+    def test_stars_in_indexes(self):
+        for row in ("a[(*b, 1)]", "a[(*b, 1)] = 2", "a[0][(1, *b)] += 1", "del a[(*b,)]", "a[[*b]]", "a[*b]", "a[*b, 1]"):
+            self.assertEqual(len(self.found(language.index_faults, f"def f(a, b):\n    {row}\n")), 1, row)
+        for row in ("c = (*b, 1)\n    a[c] = 2", "a[b[0]] = [*b]", "c = [*b][0]", "a(*b)"):
+            self.assertEqual(self.found(language.index_faults, f"def f(a, b):\n    {row}\n"), [], row)
+
+    def test_purity(self):
+        head = "class A:\n    @property\n    def b(self):\n"
+        for row in ("self.c = 1", "self.c[0] = 1", "self.c.append(1)", "d()", "self.d()", "del self.c[0]", "A(1)"):
+            text = f"{head}        {row}\ndef d():\n    e().f = 1\ndef e():\n    return 1\n"
+            text += "class B:\n    def __init__(self):\n        g().h = 1\n"
+            self.assertEqual(bool(self.found(language.purity_faults, text)), row != "A(1)", row)
+        for row in ("return self.c", "return list(self.c)", "return [d for d in self.c]", "return e(self)"):
+            text = f"{head}        {row}\ndef e(a):\n    return a.c\ndef h(a):\n    a.c = 1\n"
+            self.assertEqual(self.found(language.purity_faults, text), [], row)
+        for name in ("__eq__", "__add__", "__len__"):
+            text = f"class A:\n    def {name}(self, a):\n        return a()\n"
+            self.assertEqual(self.found(language.purity_faults, text), ["a"])
+
+    def test_clashes(self):
+        text = "class A:\n    def b(self):\n        return 1\nclass C:\n    def d(self):\n        self.b = 1\n"
+        self.assertEqual(self.found(language.clash_faults, text), ["b"])
+        self.assertEqual(self.found(language.clash_faults, text.replace("self.b", "self.e")), [])
+
+    def test_generators(self):
+        text = "def a():\n    yield 1\n"
+        self.assertEqual(self.found(language.generator_faults, text + "class B:\n    def a(self):\n        pass\n"), ["a"])
+        for row in ("b = a()", "return a()", "len(a())", "a()"):
+            self.assertEqual(self.found(language.generator_faults, f"{text}def c():\n    {row}\n"), ["a"], row)
+        for row in ("for b in a():\n        pass", "return list(a())", "return [b for b in a()]"):
+            self.assertEqual(self.found(language.generator_faults, f"{text}def c():\n    {row}\n"), [], row)
+
+    def test_handlers(self):
+        body = "class Own(ValueError):\n    pass\ndef f():\n    try:\n        g()\n    except ERROR:\n        raise\n"
+        for word in ("ValueError", "(Own, ValueError)", "Exception", "StopIteration"):
+            self.assertEqual(len(self.found(language.handler_faults, body.replace("ERROR", word))), 1, word)
+        self.assertEqual(self.found(language.handler_faults, body.replace("ERROR", "Own")), [])
+
+    def test_exits(self):
+        head = "class A:\n    def __exit__(self, kind, value, trace):\n        net = self.net\n"
+        for row in ("net.a = net.b + 1", "net.a()", "net.a = value", "net.a[0] = 1", "if self.a == 1:\n            pass",
+            "for a in net.b:\n            pass", "net.a = [x for x in net.b]", "print(trace)"):
+            self.assertNotEqual(self.found(language.exit_faults, f"{head}        {row}\n"), [], row)
+        for row in ("net.a = self.b", "if kind is None and self.a:\n            return", "net.a = True"):
+            self.assertEqual(self.found(language.exit_faults, f"{head}        {row}\n"), [], row)
+        text = "def f(a):\n    try:\n        a.b()\n    finally:\n        a.c = d()\n"
+        self.assertEqual(self.found(language.exit_faults, text), ["Call"])
+
+    def test_class_methods(self):
+        text = "class Box:\n    @classmethod\n    def of(cls):\n        return cls()\ndef f():\n    return Box.ROW\n"
+        self.assertEqual(self.found(language.form_faults, text.replace("ROW", "of()")), [])
+        self.assertEqual(len(self.found(language.form_faults, text.replace("ROW", "of"))), 1)
+        self.assertEqual(len(self.found(language.form_faults, text.replace("ROW", "at()"))), 1)
 
     def test_loops(self):
         for row in ("a.append(b)", "a[b] = 1", "del a[b]", "heappush(a, b)"):
