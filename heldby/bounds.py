@@ -4,25 +4,28 @@ from heldby.stands import knots
 
 
 class Bounds:
-    """The bounds of all stands; `many` is the growth, None if there is no greatest number."""
+    """The bounds of all stands; `many` is the growth, None if there is no greatest number.
+
+    `knots` has the knot of each stand, `growing` those knots within which a call counts, so that it can be done again.
+    """
 
     def __init__(self, stands):
         self._stands = stands
         self.knots = knots(stands.calls)
+        self.growing = self._growing_knots()
         self.many = None
         self.bounds = []
-        if not self.rounds():
+        if not self.growing:
             self.bounds = self._least_bounds()
             starts = [self.bounds[number] for number in list(stands.starts.values())]
             self.many = max(starts + [stands.groups.excess_of(closure) for closure in stands.starts])
 
-    def rounds(self):
-        """A list of (stand, points, further): the calls that count, and from which calls lead back to their stand."""
-        found = []
+    def _growing_knots(self):
+        found = {}
         for stand, rows in enumerate(self._stands.calls):
-            for points, further, count in rows:
+            for _, further, count in rows:
                 if count > 0 and self.knots[stand] == self.knots[further]:
-                    found.append((stand, points, further))
+                    found[self.knots[stand]] = True
         return found
 
     def _least_bounds(self):

@@ -26,7 +26,7 @@ def grown(one, other):
     bounds = Bounds(stands)
     routes = Routes(one.program, stands)
     if bounds.many is None:
-        ends = routes.around(bounds.rounds())
+        ends = routes.around(bounds.knots, bounds.growing)
         if ends is None:
             raise TooLong(MOMENTS)
         _, first = world_of(one.program, steps_of_path(ends[0]))

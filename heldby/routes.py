@@ -11,7 +11,7 @@ from heldby.ways import Ways
 
 
 class Reached:
-    """The stands that were reached so far, each at its least cost within the limit of a turn."""
+    """The stands, or other places, that were reached so far, each at its least cost within the limit of a turn."""
 
     def __init__(self):
         self.costs = {}
@@ -116,34 +116,38 @@ class Routes:
     def _excesses(self, stand):
         return self._stands.groups.excesses_at(self._stands.rows[stand])
 
-    def around(self, rounds):
-        """Two paths to the entry of one stand, the one by the other and a call that counts, or None.
+    def around(self, knots, growing):
+        """Two paths to the entry of one stand, the one by the other and by a call that counts, or None.
 
-        Rounds are tuples (stand, points, further): the calls that count, and from which calls lead back.
+        knots has the knot of each stand, growing those knots within which a call counts.
         """
-        rows = []
-        for stand, points, further in rounds:
-            if stand in self._reached.costs:
-                longer, point = self._nearest_call(stand, points)
-                rows.append((self._reached.costs[stand] + longer, stand, point, further))
-        for cost, stand, point, further in sorted(rows):
-            name = self._function_of(stand)
-            reached = Reached()
-            reached.arrive(cost, further, (self._reached.paths[stand], ("call", name, point)))
-            back = self._back(reached, stand)
+        costs = self._reached.costs
+        for _, stand in sorted([(costs[stand], stand) for stand in costs if knots[stand] in growing]):
+            back = self._path_around(stand, knots)
             if back is not None:
-                return (self._reached.paths[stand], ("at", name, ())), (back, ("at", name, ()))
+                end = ("at", self._function_of(stand), ())
+                return (self._reached.paths[stand], end), (back, end)
         return None
 
-    def _back(self, reached, wanted):
-        """The path from what is reached to the wanted stand, None if its turn would be too long."""
-        stand = reached.nearest()
-        while stand is not None and stand != wanted:
-            self._follow(reached, stand, self._stands.calls[stand])
-            stand = reached.nearest()
-        if stand is None or reached.costs[stand] + self._least_length(stand, [()])[0] > MOMENTS:
+    def _path_around(self, stand, knots):
+        """The path to a stand and by a call that counts to it again, None if its turn would be too long.
+
+        Places are tuples of a stand and whether a call on the way to it counts.
+        """
+        reached = Reached()
+        reached.arrive(self._reached.costs[stand], (stand, False), self._reached.paths[stand])
+        place = reached.nearest()
+        while place is not None and place != (stand, True):
+            near, is_counted = place
+            for points, further, count in self._stands.calls[near]:
+                if knots[further] == knots[stand]:
+                    longer, point = self._nearest_call(near, points)
+                    path = (reached.paths[place], ("call", self._function_of(near), point))
+                    reached.arrive(reached.costs[place] + longer, (further, is_counted or count > 0), path)
+            place = reached.nearest()
+        if place is None or reached.costs[place] + self._least_length(stand, [()])[0] > MOMENTS:
             return None
-        return reached.paths[stand]
+        return reached.paths[place]
 
 
 def steps_of_path(path):

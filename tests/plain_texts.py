@@ -1,7 +1,7 @@
 """Texts by plain means: a writer of any tree of functions, and all beginnings of texts of a small grammar.
 
-A part of a grammar is a function of a number k; it tells a set of tuples (lines, whole): the first k lines at most of all
-that it may be, and whether these are the whole of it.
+A part of a grammar is a function of a number k; it tells a set of tuples (lines, whole): the first k lines at most of
+all that it may be, and whether these are the whole of it.
 """
 
 import re

@@ -54,11 +54,13 @@ PROPERTIES = {
     programs: "Program.main Program.functions Program.used", keepers: "Keeper.program",
     layouts: "Layout.bundles Layout.linked Layout.opened", runs: "Run.handles Run.world Run.program Handle.number "
     "Handle.name Handle.is_held", changes: "Change.program Change.result Sinking.variable",
-    sessions: "Session.program Session.layout Session.weights Session.price Session.undoable Session.redoable Session.depth "
-    "Trial.is_kept BoundSession.most CappedSession.cap StrictSession.most StrictSession.cap", desks: "Desk.session",
+    sessions: "Session.program Session.layout Session.weights Session.price Session.undoable Session.redoable "
+    "Session.depth Trial.is_kept BoundSession.most CappedSession.cap StrictSession.most StrictSession.cap",
+    desks: "Desk.session",
 }
 OTHERS = {
-    programs: "Program.__eq__ Program.__len__ Program.__contains__", keepers: "Keeper.__eq__ Keeper.__and__ Keeper.__or__",
+    programs: "Program.__eq__ Program.__len__ Program.__contains__",
+        keepers: "Keeper.__eq__ Keeper.__and__ Keeper.__or__",
     changes: "Change.__eq__ Change.__add__", sessions: "Session.__eq__ Trial.__enter__ Trial.__exit__",
     statements: "Show.__eq__ Add.__eq__ Call.__eq__ Give.__eq__ Either.__eq__ Function.__eq__",
 }
@@ -119,8 +121,7 @@ class CallsTest(unittest.TestCase):
     def setUp(self):
         self.program = read_program("function main a b\n  function f x\n    show a\n    show x\n  call f b\n  give f")
         self.lifted = read_program("function main a b\n  function g\n    show a\n  call g\n  show b")
-        self.layout = Layout(self.program, bundles=[["a", "b"]]) if "b" in self.program.captured("main") else \
-            Layout(self.program, linked=["f"])
+        self.layout = Layout(self.program, linked=["f"])
 
     def same(self, one, other):
         self.assertEqual(one, other)
@@ -131,7 +132,8 @@ class CallsTest(unittest.TestCase):
         found = comparing.compared(one=layout, other=plain)
         grown = growth.grown(one=layout, other=plain)
         for what, arguments in (
-            (comparing.keeps_no_more, {"one": layout, "other": plain}), (comparing.compared, {"one": layout, "other": plain}),
+            (comparing.keeps_no_more, {"one": layout, "other": plain}),
+                (comparing.compared, {"one": layout, "other": plain}),
             (comparing.is_compared, {"one": layout, "other": plain, "value": found}),
             (comparing.excesses, {"one": layout, "other": plain}), (keepers.points, {"program": program, "name": "f"}),
             (growth.growth, {"one": layout, "other": plain}), (growth.grown, {"one": layout, "other": plain}),
@@ -153,17 +155,20 @@ class CallsTest(unittest.TestCase):
             (reading.read_program, {"text": texts.write_program(program)}),
             (reading.read_layout, {"program": program, "text": texts.write_layout(layout)}),
             (reading.read_keeper, {"program": program, "text": texts.write_keeper(layout)}),
-            (reading.read_world, {"text": texts.write_world(world)}), (reading.is_program_text, {"value": "function a"}),
+            (reading.read_world, {"text": texts.write_world(world)}),
+                (reading.is_program_text, {"value": "function a"}),
         ):
             with self.subTest(what.__name__):
                 self.same(what(**arguments), what(*arguments.values()))
                 self.same(what(**dict(reversed(arguments.items()))), what(*arguments.values()))
-        self.same([made.choice() for made in prices.family(program=program)], [made.choice() for made in prices.family(program)])
+        self.same([made.choice() for made in prices.family(program=program)],
+            [made.choice() for made in prices.family(program)])
         self.same([made.choice() for made in prices.coarsest(program=program)],
             [made.choice() for made in prices.coarsest(program)])
         self.same(prices.cheapest(program=program, weights={"f": 2}, most=1).choice(),
             prices.cheapest(program, {"f": 2}, most=1).choice())
-        self.same(prices.least_price(program=program, weights={"f": 2}, most=1), prices.least_price(program, {"f": 2}, most=1))
+        self.same(prices.least_price(program=program, weights={"f": 2}, most=1),
+            prices.least_price(program, {"f": 2}, most=1))
 
     def test_classes(self):
         program, lifted = self.program, self.lifted
@@ -183,7 +188,8 @@ class CallsTest(unittest.TestCase):
     def test_methods(self):
         program, layout = self.program, self.layout
         for what, arguments in (
-            (layout.closure, {"name": "f"}), (layout.frame, {"name": "f", "point": (0,)}), (layout.wanted, {"name": "f"}),
+            (layout.closure, {"name": "f"}), (layout.frame, {"name": "f", "point": (0,)}),
+                (layout.wanted, {"name": "f"}),
             (layout.recorded, {"name": "f"}), (layout.units, {"name": "f"}), (layout.reach, {"unit": ("record", "f")}),
             (layout.refines, {"other": Layout.flat(program=program)}), (program.function, {"name": "f"}),
             (program.parent, {"name": "f"}), (program.chain, {"name": "f"}), (program.variables, {"name": "f"}),
@@ -197,7 +203,8 @@ class CallsTest(unittest.TestCase):
 
     def test_runs_sessions_and_desks(self):
         one, other = Run(self.program), Run(self.program)
-        self.same(one.handles[0](things=[1, 2], choices=[], takes=[0], last=True), other.handles[0]([1, 2], [], [0], True))
+        self.same(one.handles[0](things=[1, 2], choices=[], takes=[0], last=True),
+            other.handles[0]([1, 2], [], [0], True))
         self.same(one.world, other.world)
         one, other = Session(self.program), Session(self.program)
         for name, arguments in (("adopt", {"layout": self.layout}), ("improve", {"most": 1}), ("undo", {"count": 1}),
@@ -207,7 +214,8 @@ class CallsTest(unittest.TestCase):
         desk = desks.Desk(session=one)
         self.same(desk.run(line="price"), desks.Desk(other).run("price"))
         self.same(desk(line="layout"), desk("layout"))
-        self.same(desks.answers(session=one, lines=["weigh f 2", "price"]), desks.answers(other, ["weigh f 2", "price"]))
+        self.same(desks.answers(session=one, lines=["weigh f 2", "price"]),
+            desks.answers(other, ["weigh f 2", "price"]))
         self.same(one, other)
 
 

@@ -55,7 +55,8 @@ def graftings(chance, program):
     for _ in range(3):
         parent = chance.choice(program.functions)
         inner = Function("graftb", ["graftc"], body=[Show(thing) for thing in program.chain_things(parent)[:2]])
-        graft = Function("grafta", things=["graftd"], functions=[inner], body=[Give("graftb"), Call("graftb", ["graftd"])])
+        graft = Function("grafta", things=["graftd"], functions=[inner],
+            body=[Give("graftb"), Call("graftb", ["graftd"])])
         many = len(program.function(parent).functions)
         try:
             found.append(Grafting(program, parent, graft, index=chance.randint(0, many)))
@@ -160,7 +161,8 @@ class CarriedTest(unittest.TestCase):
         program = Program(Function("main", ["a"], things=["b"], functions=[f], body=[Give("f")]))
         change = Sinking(program, "g", "y")
         carried = change(everything(program))
-        self.assertEqual([carried.closure(name) for name in ("f", "g", "h")], [("a", "b"), ("a", "b", "x"), ("a", "b", "x")])
+        self.assertEqual([carried.closure(name) for name in ("f", "g", "h")],
+            [("a", "b"), ("a", "b", "x"), ("a", "b", "x")])
         self.assertEqual({carried.frame("h", point) for point in points(program, "h")}, {("a", "b", "x")})
         less = Told(program, {"g": ["x"], "h": ["y"]}, {("g", ()): ["y"], ("h", (0,)): ["a", "y"], ("f", ()): ["b"]})
         self.assertEqual(change(less), Told(change.result, {"g": ["x"], "h": ["x"]},
@@ -235,7 +237,8 @@ class FactsTest(unittest.TestCase):
         first, second = Played(change.program, world), Played(change.result, world)
         self.assertEqual(len(first.seen), len(second.seen))
         shows, others = shows_of(change.program, world), shows_of(change.result, world)
-        self.assertEqual([[value for _, value in rows] for rows in shows], [[value for _, value in rows] for rows in others])
+        self.assertEqual([[value for _, value in rows] for rows in shows],
+            [[value for _, value in rows] for rows in others])
         self.assertEqual([row[0] for row in held_at(change.program, world, None)],
             [row[0] for row in held_at(change.result, world, None)])
         for moment in [*range(many), None]:

@@ -16,7 +16,8 @@ from tests.samples import any_values
 
 def nest():
     """g stands in f, f and u in main; u and v are not used, and v calls g's sibling e."""
-    g = Function("g", ["y"], numbers=["m"], body=[Show("a"), Either([Call("e", ["y"])], [Add("n", 2)]), Call("e", ["a"])])
+    g = Function("g", ["y"], numbers=["m"], body=[Show("a"), Either([Call("e", ["y"])], [Add("n", 2)]),
+        Call("e", ["a"])])
     e = Function("e", ["z"], body=[Show("z"), Show("a"), Either([Call("e", ["a"])], [Add("n", 1)])])
     f = Function("f", ["x"], things=["w"], functions=[g, e], body=[Call("g", ["w"]), Show("x")])
     v = Function("v", body=[Call("u", []), Give("u")])
@@ -47,7 +48,8 @@ class RenamingTest(ErrorsTest):
         f = Function("ff", ["a"], things=["w"], functions=[g, e], body=[Call("g", ["w"]), Show("a")])
         u = Function("u", body=[Call("v", []), Give("v")])
         v = Function("v", functions=[u], body=[Show("x")])
-        want = Function("top", ["x"], things=["b"], numbers=["n"], functions=[f, v], body=[Call("ff", ["b"]), Give("ff")])
+        want = Function("top", ["x"], things=["b"], numbers=["n"], functions=[f, v],
+            body=[Call("ff", ["b"]), Give("ff")])
         self.assertEqual(change.result, Program(want))
         self.assertEqual(change.program, nest())
         self.assertIsInstance(change, Change)
@@ -64,7 +66,8 @@ class RenamingTest(ErrorsTest):
             self.assertEqual(Renaming(program, {name: name}).result, program)
 
     def test_inverse(self):
-        for names in ({}, {"a": "b", "b": "a"}, {"f": "x", "x": "f"}, {"a": "q", "b": "a", "n": "b"}, {"main": "f", "f": "main"}):
+        for names in ({}, {"a": "b", "b": "a"}, {"f": "x", "x": "f"}, {"a": "q", "b": "a", "n": "b"},
+            {"main": "f", "f": "main"}):
             change = Renaming(nest(), names)
             back = change.inverse()
             self.assertIsInstance(back, Renaming)
@@ -111,7 +114,8 @@ class RenamingTest(ErrorsTest):
 class PruningTest(ErrorsTest):
     def without_u(self):
         main = nest().main
-        return Program(Function("main", ["a"], things=["b"], numbers=["n"], functions=main.functions[:1], body=main.body))
+        return Program(Function("main", ["a"], things=["b"], numbers=["n"], functions=main.functions[:1],
+            body=main.body))
 
     def test_results(self):
         self.assertEqual(Pruning(nest()).result, self.without_u())
@@ -155,7 +159,8 @@ class PruningTest(ErrorsTest):
 class GraftingTest(ErrorsTest):
     def test_results(self):
         program = nest()
-        graft = Function("k", ["kk"], functions=[Function("kkk", body=[Give("k")])], body=[Show("kk"), Call("f", ["a"])])
+        graft = Function("k", ["kk"], functions=[Function("kkk", body=[Give("k")])],
+            body=[Show("kk"), Call("f", ["a"])])
         for parent in program.functions:
             many = len(program.function(parent).functions)
             for index in range(many + 1):
@@ -195,7 +200,8 @@ class GraftingTest(ErrorsTest):
         self.value(DuplicateName, "f", lambda: Grafting(nest(), "g", Function("f")))
         self.value(DuplicateName, "x", lambda: Grafting(nest(), "main", Function("k", ["x"])))
         for function, kind, value in (
-            (Function("k", body=[Show("w")]), UnknownName, "w"), (Function("k", body=[Call("g", ["a"])]), UnknownName, "g"),
+            (Function("k", body=[Show("w")]), UnknownName, "w"),
+                (Function("k", body=[Call("g", ["a"])]), UnknownName, "g"),
             (Function("k", body=[Call("main", ["a"])]), UnknownName, "main"),
             (Function("k", body=[Add("a", 1)]), WrongKind, "a"), (Function("k", body=[Call("f", [])]), WrongCount, "f"),
             (Function("k", body=[Call("k", [])]), Endless, "k"),
@@ -216,10 +222,12 @@ class GraftingTest(ErrorsTest):
                 inner = [Function(f"{letter}{'abcdefghijkl'[at]}", functions=inner)]
             return inner[0]
 
-        self.assertEqual(len(Grafting(nest(), "main", Function("k", functions=[Function(f"k{x}") for x in "abc"])).result), 10)
+        self.assertEqual(len(Grafting(nest(), "main",
+            Function("k", functions=[Function(f"k{x}") for x in "abc"])).result), 10)
         for parent, function, limit in (
             ("main", Function("k", functions=[Function(f"k{x}") for x in "abcd"]), 10), ("g", chained(3), 5),
-            ("f", Function("k", [f"k{x}" for x in "abcdefghi"]), 12), ("main", Function("k", body=[Show("a")] * 46), 60),
+            ("f", Function("k", [f"k{x}" for x in "abcdefghi"]), 12),
+                ("main", Function("k", body=[Show("a")] * 46), 60),
         ):
             with self.assertRaises(TooMany) as caught:
                 Grafting(nest(), parent, function)
@@ -311,7 +319,8 @@ class SinkingTest(ErrorsTest):
         inner = Function("h", body=[Either([Call("g", things) for things in within], []), Show("y"), Show("b")])
         g = Function("g", parameters, functions=[inner], body=[Show("y"), Call("h", [])])
         others = [Function("k", things=["c"], body=[Call("g", things) for things in outer])]
-        return Program(Function("main", ["a", "b"], functions=[g, *others], body=[Call("g", things) for things in calls]))
+        return Program(Function("main", ["a", "b"], functions=[g, *others],
+            body=[Call("g", things) for things in calls]))
 
     def test_results(self):
         program = self.sunk([["a"], ["a"]], [["y"], ["a"]])
@@ -372,7 +381,8 @@ class SinkingTest(ErrorsTest):
             self.sunk([], outer=[["c"]]), self.sunk([], [["y"]], outer=[["c"], ["c"]]),
         ):
             self.value(NotSame, program.function("g").parameters[0], lambda: Sinking(program, "g", "y"))
-        for program in (self.sunk([["a"]], outer=[["a"]]), self.sunk([], outer=[["b"]]), self.sunk([["b"]], [["b"], ["y"]])):
+        for program in (self.sunk([["a"]], outer=[["a"]]), self.sunk([], outer=[["b"]]),
+            self.sunk([["b"]], [["b"], ["y"]])):
             self.assertIn(Sinking(program, "g", "y").variable, ("a", "b"))
         # The variable of another parameter of the same function is none around it.
         program = self.sunk([["a", "b"]], [["p", "y"]], ["y", "p"])
@@ -417,6 +427,12 @@ class SumsTest(ErrorsTest):
                     with self.assertRaises(OtherProgram) as caught:
                         one + other
                     self.assertEqual(vars(caught.exception), {})
+
+    def test_sums_with_other_values(self):
+        for value in any_values():
+            for call in (lambda: self.changes()[0] + value, lambda: value + self.changes()[0]):
+                with self.assertRaises(TypeError):
+                    call()
 
     def test_equal_changes(self):
         one, two, three, four, five = self.changes()
@@ -464,7 +480,8 @@ class ConventionsTest(unittest.TestCase):
 
     def test_equal_calls(self):
         for make in (
-            lambda: Renaming(nest(), {"a": "q"}), lambda: Pruning(nest(), "u"), lambda: Grafting(nest(), "u", Function("k")),
+            lambda: Renaming(nest(), {"a": "q"}), lambda: Pruning(nest(), "u"),
+                lambda: Grafting(nest(), "u", Function("k")),
             lambda: Lifting(nest(), "e", "a", "q"), lambda: Sinking(Lifting(nest(), "e", "a", "q").result, "e", "q"),
         ):
             self.assertEqual(make(), make())

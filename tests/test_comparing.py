@@ -635,7 +635,7 @@ class ExcessesTest(unittest.TestCase):
                 self.assertEqual(sorted(seen, key=str), sorted(excesses(one, other), key=str))
 
     def scenes(self, played):
-        """What stands and is held at the moments of the last turn: sets of tuples (name, point, (variable, thing) ..)."""
+        """What stands and is held at the moments of the last turn: sets of (name, point, (variable, thing) ..)."""
         found = set()
         for moment in range(len(played.seen)):
             rows = [(name, point, tuple(things.items())) for name, point, things in played.stack_at(moment)]

@@ -21,7 +21,9 @@ from tests.test_families import flat_program
 from tests.test_grown import pair
 from tests.test_sessions import redone, state, work
 
-EXAMPLE = "function main\n  things a b\n  function f x\n    show a\n  function g\n    show b\n  call f b\n  give f\n  give g"
+EXAMPLE = (
+    "function main\n  things a b\n  function f x\n    show a\n  function g\n    show b\n  call f b\n  give f\n  give g"
+)
 
 
 def wide():
@@ -147,7 +149,8 @@ class StepsTest(DeskTest):
         self.step("bundle n a c", self.layout(bundles=[["a", "c", "n"]]))
 
     def test_wrong_bundles(self):
-        for line, value in (("bundle a x", "x"), ("bundle x a", "x"), ("bundle y a nobody", "nobody"), ("bundle f a", "f"),
+        for line, value in (("bundle a x", "x"), ("bundle x a", "x"), ("bundle y a nobody", "nobody"),
+            ("bundle f a", "f"),
             ("bundle nobody x", "nobody"), ("bundle a b u", "u"), ("bundle x x", "x")):
             self.refused(line, UnknownName, {"value": value})
         for line in ("bundle a y", "bundle y a", "bundle a b z", "bundle a a y"):
@@ -281,6 +284,16 @@ class StepsTest(DeskTest):
             want = price(cheapest(program, most=most))
             self.step(line, lambda session: session.improve(most), str(want))
         self.refused("improve 101", InvalidNumber, {"value": 101})
+        # With no number, nothing may be too much.
+        program = read_program("function main a b c\n  function g\n    show a\n    show b\n    show c\n  function k\n"
+            + "    give g\n" * 5 + "  call k\n  show b")
+        self.session = Session(program)
+        self.desk = Desk(self.session)
+        self.desk("weigh main 0")
+        prices = [price(cheapest(program, {"main": 0}, most=most), {"main": 0}) for most in (0, 1, 2)]
+        self.assertEqual(len(set(prices)), 3)
+        self.assertEqual([self.desk(line) for line in ("improve", "improve 0", "improve 1", "improve 2")],
+            [str(cost) for cost in (prices[0], *prices)])
         self.session = Session(flat_program(8, 0, 1))
         self.desk = Desk(self.session)
         self.refused("improve", TooMany, {"limit": 1500})
@@ -358,7 +371,8 @@ class QuestionsTest(DeskTest):
         self.assertGreater(asked, 300)
 
     def test_a_growth_without_end(self):
-        program = read_program("function main\n  function f\n    things y z\n    function g\n      show y\n    function h\n"
+        program = read_program(
+            "function main\n  function f\n    things y z\n    function g\n      show y\n    function h\n"
             "      show z\n    give g\n    either\n      call f\n    or\n    end\n    give h\n  call f")
         self.session = Session(program)
         self.desk = Desk(self.session)
@@ -382,7 +396,8 @@ class LinesTest(DeskTest):
             "weigh": ["", "f", "f g", "f -1", "f 01", "f 1 2", "1 f", f"f {'9' * 32}", "f 1.0", "f +1", "f \u0661"],
             "unweigh": ["", "f 1", "f g", "1"], "rename": ["", "a", "a b c", "a 1", "a ninechars", "A b"],
             "prune": ["1", "u 1", "U"], "lift": ["", "f", "f a", "f a b c", "f a 1"], "sink": ["", "f", "f a b", "1 a"],
-            "undo": ["1", "f"], "redo": ["1", "f"], "improve": ["f", "1 2", "-1", "01", "none", "-"], "mend": ["f", "1"],
+            "undo": ["1", "f"], "redo": ["1", "f"], "improve": ["f", "1 2", "-1", "01", "none", "-"],
+                "mend": ["f", "1"],
             "program": ["f"], "layout": ["f"], "keeper": ["f", "1"], "table": ["f"], "price": ["f", "1"],
             "growth": ["1"], "mends": ["1", "f"], "closure": ["", "f g", "1"],
             "frame": ["", "f", "f 0 1", "0 f", "f -", "f 00", "f 0.", "f .0", "f 0..1", "f entry.0", "f ent", "f 0,1",
@@ -391,7 +406,8 @@ class LinesTest(DeskTest):
         self.assertEqual(len(forms), 25)
         lines = [f"{word} {rest}" if rest else word for word, rows in forms.items() for rest in rows]
         lines += [word.upper() for word in forms] + [word + "s" for word in forms if word != "mend"]
-        lines += ["", " ", "try", "try ", "nobody", "try nobody", "try try price", "try try", "a b", "weigh", "adopt f", "save"]
+        lines += ["", " ", "try", "try ", "nobody", "try nobody", "try try price", "try try", "a b", "weigh",
+            "adopt f", "save"]
         for word in forms:
             lines += [word + " ", " " + word, "  " + word, word + "\n", word + "\t"]
         lines += ["weigh  f 3", "weigh f  3", "weigh f 3 ", "bundle a  b", "prune u ", "weigh\tf\t3", "price\nprice"]
@@ -477,7 +493,8 @@ class AnswersTest(unittest.TestCase):
     def test_each_line_is_a_step(self):
         session = self.begun()
         price_then = session.price
-        found = answers(session, ["price", "weigh g 2", "bundle a b", "closure f", "undo", "redo", "try weigh f 9", "layout"])
+        found = answers(session, ["price", "weigh g 2", "bundle a b", "closure f", "undo", "redo", "try weigh f 9",
+            "layout"])
         self.assertEqual(found, [str(price_then), "ok", "ok", "a b", "ok", "ok", "ok",
             "layout\nbundle a b\nopened f g h self"])
         self.assertIsInstance(found, list)
@@ -499,7 +516,8 @@ class AnswersTest(unittest.TestCase):
     def test_refused_lines(self):
         good = ["weigh g 2", "undo", "undo", "redo", "bundle a b", "rename a q", "prune", "improve", "price"]
         for at in range(len(good) + 1):
-            for line, kind, fields in (("weigh nobody 1", UnknownName, {"value": "nobody"}), ("", CommandError, {"value": ""}),
+            for line, kind, fields in (("weigh nobody 1", UnknownName, {"value": "nobody"}),
+                ("", CommandError, {"value": ""}),
                 ("try undo", InTrial, {}), ("weigh f 1000001", InvalidNumber, {"value": 1000001}),
                 (None, CommandError, {"value": None}), ("try weigh f x", CommandError, {"value": "try weigh f x"})):
                 session = self.begun()
@@ -560,7 +578,8 @@ class AnswersTest(unittest.TestCase):
             for _ in range(6):
                 lines.append(chance.choice([
                     f"weigh {chance.choice(names)} {chance.randint(0, 9)}", f"open {names[-1]}", f"shut {names[-1]}",
-                    f"link {names[-1]}", "price", "layout", "prune", "mend", "mends", "growth", f"closure {names[-1]}", "table",
+                    f"link {names[-1]}", "price", "layout", "prune", "mend", "mends", "growth", f"closure {names[-1]}",
+                        "table",
                 ]))
             if len(names) == 1:
                 lines = [line for line in lines if line.split()[0] not in ("open", "shut", "link")]

@@ -19,11 +19,13 @@ import heldby.texts
 import heldby.worlds
 
 MODULES = [heldby.changes, heldby.comparing, heldby.desks, heldby.errors, heldby.growth, heldby.keepers, heldby.layouts,
-    heldby.prices, heldby.programs, heldby.reading, heldby.runs, heldby.sessions, heldby.statements, heldby.texts, heldby.worlds]
+    heldby.prices, heldby.programs, heldby.reading, heldby.runs, heldby.sessions, heldby.statements, heldby.texts,
+        heldby.worlds]
 
 # Each example is what is done and what it is to be: a value as Python writes it, or an error.
 EXAMPLES = [
-    ('program = read_program("function main\\n  things a b\\n  function f x\\n    show a\\n  call f b\\n  give f")', None),
+    ('program = read_program("function main\\n  things a b\\n  function f x\\n    show a\\n  call f b\\n  give f")',
+        None),
     ('[program.functions, program.needs("f"), program.captured("main"), program.chain("f"), len(program)]',
      "[('main', 'f'), ('a',), ('a',), ('main', 'f'), 2]"),
     ('Program(Function("main", functions=[Function("f")], body=[Call("f", ["a"])]))', "raises UnknownName('a')"),
@@ -50,11 +52,13 @@ EXAMPLES = [
     ('turning = Program(Function("main", ["a"], functions=[Function("f", ["x"], things=["y"], '
      'body=[Either([Call("f", ["y"])], [])])], body=[Call("f", ["a"])]))', None),
     ('late = Told(turning, {}, {("f", (0, 0, 0)): ["x"]})', None),
-    ("[growth(late, Plain(turning)), grown(late, Plain(turning))[0], growth(Plain(turning), late)]", "[None, 'round', 1]"),
+    ("[growth(late, Plain(turning)), grown(late, Plain(turning))[0], growth(Plain(turning), late)]",
+        "[None, 'round', 1]"),
     ('[price(both), price(Layout.flat(pair)), way_of(both, "f", "a"), family_size(pair), least_price(pair)]',
      "[8, 4, 2, 32, 4]"),
     ('[mends(both), price(both, {"main": 0, "g": 3})]', "[[('split', ('a', 'b'))], 8]"),
-    ('program = read_program("function main\\n  things a b\\n  function f x\\n    show a\\n  call f b\\n  give f")', None),
+    ('program = read_program("function main\\n  things a b\\n  function f x\\n    show a\\n  call f b\\n  give f")',
+        None),
     ("keeper_table(Plain(program), Layout.chained(program))", repr("""function main  | a b   | a b
   things a b   |       |
   function f x | [a] a | [a] a

@@ -13,7 +13,7 @@ from heldby.limits import FAMILY
 from heldby.prices import cheapest, coarsest, family, family_size, least_price, mends, price
 from heldby.programs import Program
 from heldby.statements import Add, Call, Either, Function, Give, Show
-from tests import plain_prices
+from tests import plain_prices, turners
 from tests.makers import made_layout, programs
 from tests.samples import any_values
 from tests.test_grown import pair
@@ -53,7 +53,8 @@ def sharers(many):
             body.append(chance.choice([Give(name), Call(name, [])]))
         body += [Show(x) for x in things + numbers if chance.random() < 0.3]
         chance.shuffle(body)
-        found.append(Program(Function("main", things[:1], things=things[1:], numbers=numbers, functions=functions, body=body)))
+        found.append(Program(Function("main", things[:1], things=things[1:], numbers=numbers, functions=functions,
+            body=body)))
     return [program for program in found if 1 < family_size(program) <= 250]
 
 
@@ -216,7 +217,8 @@ class CheapestTest(unittest.TestCase):
         program = self.leaking()
         for weights in (None, {}, {"k": 3}):
             self.assertEqual(price(cheapest(program, weights), weights), least_price(program, weights, most=0))
-            self.assertEqual(least_price(program=program, weights=weights, most=1), least_price(program, weights, most=1))
+            self.assertEqual(least_price(program=program, weights=weights, most=1),
+                least_price(program, weights, most=1))
             self.assertEqual(cheapest(program=program, weights=weights, most=None).choice(),
                 cheapest(program, weights, most=None).choice())
         with self.assertRaises(TypeError):
@@ -249,6 +251,22 @@ class CheapestTest(unittest.TestCase):
                 with self.assertRaises(TooMany) as caught:
                     call(huge, most=most)
                 self.assertEqual(vars(caught.exception), {"limit": FAMILY})
+
+    def test_nothing_is_counted_where_nothing_may_be_too_much(self):
+        # There are more stands than the growth may have, but whether a layout keeps no more is known all the same.
+        f = turners.mixing("f", 8)
+        f = Function("f", f.parameters, body=[*f.body, Show("a"), Show("b")])
+        program = Program(Function("main", ["a", "b"], functions=[f], body=[Give("f")] * 6))
+        for layout in family(program):
+            with self.assertRaises(TooMany):
+                growth(layout, Plain(program))
+        weights = {"f": 0}
+        rows = [(price(layout, weights), keeps_no_more(layout, Plain(program))) for layout in family(program)]
+        least = min(cost for cost, is_safe in rows if is_safe)
+        self.assertEqual((least, least_price(program, weights), min(rows)[0]), (12, 12, 8))
+        self.assertTrue(keeps_no_more(cheapest(program, weights), Plain(program)))
+        self.assertEqual(least_price(program, weights, most=None), 8)
+        self.assertTrue(coarsest(program) and isinstance(mends(Layout.chained(program)), list))
 
     def test_given_weights_stay(self):
         weights = {"k": 3, "g": 0}
@@ -394,6 +412,16 @@ class CoarsestTest(unittest.TestCase):
         self.assertEqual([layout.linked for layout in found], [("f", "g", "h")] * 2)
         self.assertEqual({plain_prices.as_sets(layout) for layout in found}, self.plain_coarsest(program))
 
+    def test_links(self):
+        # Either link by itself keeps nothing too long, but both do.
+        h = Function("h", body=[Show("a")])
+        g = Function("g", functions=[h], body=[Give("h")])
+        f = Function("f", functions=[g], body=[Call("g", []), Show("b")])
+        program = Program(Function("main", ["a", "b"], functions=[f], body=[Call("f", [])]))
+        found = coarsest(program)
+        self.assertEqual({plain_prices.as_sets(layout) for layout in found}, self.plain_coarsest(program))
+        self.assertEqual(sorted(layout.linked for layout in found), [("f", "g"), ("f", "h")])
+
     def test_too_many(self):
         with self.assertRaises(TooMany) as caught:
             coarsest(flat_program(8, 0, 1))
@@ -422,7 +450,8 @@ class TimeTest(unittest.TestCase):
         things = ["a", "b", "c", "d"]
         numbers = ["n"]
         shows = [Show("a"), Either([Show("b"), Show("n")], [Add("n", 3)]), Show("c")]
-        inner = [Function(f"f{letter}", [f"{letter}p"], body=[*shows, Show("d"), Show(f"{letter}p")]) for letter in "xy"]
+        inner = [Function(f"f{letter}", [f"{letter}p"],
+            body=[*shows, Show("d"), Show(f"{letter}p")]) for letter in "xy"]
         body = [Give("fx"), Call("fy", ["a"]), Either([Call("fx", ["b"])], [Give("fy")]), Show("d"), Show("n")]
         program = Program(Function("main", things[:2], things=things[2:], numbers=numbers, functions=inner, body=body))
         self.assertEqual(family_size(program), 52 * 16)

@@ -1,7 +1,9 @@
 import random
 import time
 import unittest
+from unittest import mock
 
+from heldby.errors import TooLong
 from heldby.growth import grown, growth, is_grown
 from heldby.keepers import Plain, Told, points
 from heldby.layouts import Layout
@@ -12,6 +14,7 @@ from heldby.worlds import count_moments, held_at, kept_at, stack_at
 from tests import turners
 from tests.makers import changed, made_keeper, programs
 from tests.plain_growth import faults
+from tests.plain_growth_turns import GrowthTurns
 from tests.samples import any_values
 from tests.test_growth import everywhere, frames
 
@@ -274,7 +277,8 @@ class BentAnswersTest(unittest.TestCase):
         self.assertIs(is_grown(both, plain, ("most", 1, [(0, (), (), (0,), (0,))], None, count)), True)
         self.refused(both, plain, ("most", 1, [(0, (), (), (0,), ())], None, count))
         self.refused(both, plain, ("most", 1, [(0, (), (), (0,), (0,))], 1, count))
-        self.assertIs(is_grown(both, plain, ("most", 1, [(0, (), (), (0,), (0,)), (1, (), (), (), (1,))], 0, count)), True)
+        self.assertIs(is_grown(both, plain, ("most", 1, [(0, (), (), (0,), (0,)), (1, (), (), (), (1,))], 0, count)),
+            True)
         self.refused(both, plain, ("most", 1, [(0, (), (), (0,), (0,)), (1, (), (), (), ())], 0, count))
         none = ("most", 0, [(0, (), (), (0, 1), (0,))], None, grown(plain, both)[4])
         self.refused(plain, both, none)
@@ -425,7 +429,8 @@ class BentAnswersTest(unittest.TestCase):
         many = count_moments(program, world)
         entries = [at for at in range(many) if stack_at(program, world, at)[-1][1] == ()]
         self.assertEqual(len(entries), 7)
-        right = [(low, high) for low in entries for high in entries if is_grown(one, other, ("round", world, low, high))]
+        right = [(low, high) for low in entries for high in entries if is_grown(one, other,
+            ("round", world, low, high))]
         # The stands of the entries behind the first one of each call are equal: x is of the caller, and is gone.
         self.assertEqual(right, [(entries[2], entries[3]), (entries[5], entries[6])])
         for low in range(many):
@@ -488,6 +493,148 @@ class BentAnswersTest(unittest.TestCase):
             self.assertEqual(is_grown(one, other, value), faults(one, other, value) == [])
 
 
+    def test_rows_that_are_none_beside_the_right_ones(self):
+        """Further rows of h, which calls and gives nothing, so that nothing else must follow."""
+        h = Function("h", ["z", "w"], body=[Show("z")])
+        program = Program(Function("main", ["a", "b"], functions=[h], body=[Call("h", ["a", "b"]), Give("h")]))
+        none = Told(program, {}, {})
+        _, number, world, moment, parts = grown(none, none)
+        stand = ((("a",), False, False), (("b",), False, False), (("w",), False, False), (("z",), False, False))
+        right = {
+            0: ((("a", "b"), False, False),), 1: ((("a", "b", "w"), False, False), (("z",), False, False)),
+            2: ((("a", "b", "w"), True, False), (("z",), False, True)),
+        }
+        wrong = [
+            (), stand[1:], stand[:2], (*stand, (("zz",), False, False)), (*stand[:3], (("w", "z"), False, False)),
+            (*stand[:3], (("z", "z"), False, False)), ((("b", "a"), False, False), *stand[2:]), stand[::-1],
+            ((("a",), False, False), *stand), (((), False, False), *stand), (*stand[:2], stand[3], stand[2]),
+            ((("a", "c"), False, False), *stand[1:]), ((("a", "a"), False, False), *stand[1:]),
+            ((("a", "b"), False, False), (("y", "z"), False, False)), ((("a", "b", "w", "y", "z"), False, False),),
+        ]
+        for part in range(3):
+            for groups in [right[part], *wrong]:
+                row = ("h", groups)
+                rows = tuple(sorted({*parts[part], (row, 5) if part == 2 else row}))
+                count = [*parts]
+                count[part] = rows
+                if part == 0:
+                    # What a closure leads to is there, too, whatever it is.
+                    called = ("h", tuple(sorted([*groups, *stand[2:]])))
+                    count[1] = tuple(sorted({*parts[1], called}))
+                    count[2] = tuple(sorted({*parts[2], *([(called, 0)] if called != ("h", stand) else [])}))
+                value = ("most", number, world, moment, tuple(count))
+                is_right = groups in (right[part], stand[:2] if part == 0 else stand)
+                self.assertIs(is_grown(none, none, value), is_right, (part, groups))
+                self.assertEqual(faults(none, none, value) == [], is_right)
+            for bools in ((True, False), (False, True)):
+                row = ("h", ((("a", "b"), *bools), *(stand[2:] if part else ())))
+                rows = tuple(sorted({*parts[part], (row, 5) if part == 2 else row}))
+                value = ("most", number, world, moment, (*parts[:part], rows, *parts[part + 1:]))
+                self.assertIs(is_grown(none, none, value), part == 2)
+
+    def test_rounds_while_a_closure_is_taken(self):
+        # Each frame of f gives g ahead of its call: if the world takes one, it is held at all later moments.
+        g = Function("g", body=[Show("a")])
+        f = Function("f", ["x"], things=["y"], body=[Give("g"), Either([Call("f", ["y"])], [])])
+        program = Program(Function("main", ["a"], functions=[f, g], body=[Call("f", ["a"])]))
+        one, none = frames(program, f={(1, 0, 0): ["x"]}), Told(program, {}, {})
+        for takes, right in (((), [(5, 8), (5, 11), (8, 11)]), ((0,), []), ((1,), []), ((2,), [(5, 8)]),
+            ((3,), [(5, 8), (5, 11), (8, 11)])):
+            world = [(0, (7,), (0, 0, 0, 1), takes, (0,))]
+            entries = [at for at in range(16) if stack_at(program, world, at)[-1][1] == ()]
+            self.assertEqual(entries, [0, 1, 4, 7, 10])
+            found = [(low, high) for low in entries for high in entries if is_grown(one, none,
+                ("round", world, low, high))]
+            shifted = [(low - 1, high - 1) for low, high in right]
+            self.assertEqual(found, shifted)
+
+    def test_things_that_are_not_left_behind(self):
+        # x is kept too much all the while, but each frame of f has it: so nothing is left behind.
+        program = turners.staying()
+        one, none = everywhere(program, "f", ["x"]), Told(program, {}, {})
+        world = [(0, (5,), (0, 0, 0, 1), (), (0,))]
+        many = count_moments(program, world)
+        for low in range(many):
+            for high in range(many):
+                self.refused(one, none, ("round", world, low, high))
+
+    def test_all_pairs_of_moments(self):
+        right = 0
+        for at, (program, one, other) in enumerate(turners.turners(90)):
+            chance = random.Random(at)
+            other = Told(program, {}, {}) if at % 2 else other
+            world = [(0, (5,), tuple(chance.choice([0, 0, 0, 1]) for _ in range(7)) + (1,) * 60, (), (0,))]
+            many = count_moments(program, world)
+            entries = [moment for moment in range(many) if stack_at(program, world, moment)[-1][1] == ()][:9]
+            for low in entries:
+                for high in entries:
+                    value = ("round", world, low, high)
+                    found = is_grown(one, other, value)
+                    self.assertEqual(found, faults(one, other, value) == [])
+                    right += found
+        self.assertGreater(right, 10)
+
+
+class ShortestTurnsTest(unittest.TestCase):
+    """With a lower limit of moments: worlds are found as long as there are any whose turns are not longer."""
+
+    def found(self, one, other, limit):
+        with mock.patch("heldby.routes.MOMENTS", limit), mock.patch("heldby.growth.MOMENTS", limit):
+            with mock.patch("heldby.plays.MOMENTS", limit):
+                try:
+                    return grown(one, other)
+                except TooLong as error:
+                    self.assertEqual(error.limit, limit)
+                    return None
+
+    def check(self, one, other, most):
+        """The least limit with which there is an answer, up to most."""
+        many = growth(one, other)
+        least = GrowthTurns(one, other, many).least(most)
+        for limit in range(1, most + 1) if least is None else range(max(1, least - 2), least + 3):
+            value = self.found(one, other, limit)
+            self.assertEqual(value is None, least is None or limit < least, (limit, least))
+            if value is not None:
+                self.assertEqual(faults(one, other, value), [])
+                world = value[2] if value[0] == "most" else value[1]
+                counts = [count_moments(one.program, world[:at + 1]) for at in range(len(world))]
+                self.assertLessEqual(max(counts), limit)
+        return many, least
+
+    def test_many_programs(self):
+        found = {}
+        small = [program for program in programs(300, 2) if sum(len(points(program, f)) for f in program.used) < 22]
+        for at, program in enumerate(small):
+            chance = random.Random(at)
+            one, other = made_keeper(chance, program), made_keeper(chance, program)
+            many, least = self.check(one, other, 13)
+            if many != 0:
+                found[least] = found.get(least, 0) + 1
+        self.assertGreater(len(found), 6)
+
+    def test_functions_that_call_themselves(self):
+        found = {}
+        for at, (program, one, other) in enumerate(turners.turners(400)):
+            is_round = growth(one, other) is None
+            if sum(len(points(program, f)) for f in program.used) < 20 and (is_round or at < 100):
+                many, least = self.check(one, other, 17 if is_round else 12)
+                found[(many is None, least is None)] = found.get((many is None, least is None), 0) + 1
+        self.assertGreater(min(found[(True, False)], found[(False, False)]), 5)
+
+    def test_rounds_with_other_rounds_that_are_too_long(self):
+        # The one round takes a slow call each time, the other one does not.
+        slow = Function("slow", body=[Add("n", 1)] * 9)
+        f = Function("f", ["x"], things=["y"],
+            body=[Either([Call("slow", []), Call("f", ["y"])], [Either([Show("x"), Call("f", ["y"])], [])])])
+        program = Program(Function("main", ["a"], numbers=["n"], functions=[slow, f], body=[Call("f", ["a"])]))
+        none = Told(program, {}, {})
+        for kept in ({(0, 0, 1): ["x"]}, {(0, 1, 0, 0, 1): ["x"]}, {(0, 0, 1): ["x"], (0, 1, 0, 0, 1): ["x"]}):
+            one = frames(program, f=kept)
+            least = GrowthTurns(one, none, None).least(40)
+            self.assertIsNone(self.found(one, none, least - 1))
+            self.assertEqual(faults(one, none, self.found(one, none, least)), [])
+
+
 class TimeTest(unittest.TestCase):
     def test_near_the_limit_of_stands(self):
         program = turners.crowd(*turners.FULL)
@@ -501,7 +648,8 @@ class TimeTest(unittest.TestCase):
 
     def test_rounds_near_the_limit_of_stands(self):
         f = turners.mixing("f", 6)
-        own = Function("f", f.parameters, things=["y"], body=[*f.body, Either([Call("f", ["y", *f.parameters[1:]])], [])])
+        own = Function("f", f.parameters, things=["y"],
+            body=[*f.body, Either([Call("f", ["y", *f.parameters[1:]])], [])])
         program = Program(Function("main", functions=[own], body=[Give("f")]))
         one = frames(program, f={(1, 0, 0): ["fa"]})
         began = time.perf_counter()

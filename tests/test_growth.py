@@ -116,7 +116,8 @@ class SmallTest(unittest.TestCase):
 
     def test_things_in_two_variables_are_one(self):
         f = Function("f", ["x", "y"], body=[Show("x"), Show("y")])
-        program = Program(Function("main", ["a", "b"], functions=[f], body=[Call("f", ["a", "a"]), Call("f", ["a", "b"])]))
+        program = Program(Function("main", ["a", "b"], functions=[f],
+            body=[Call("f", ["a", "a"]), Call("f", ["a", "b"])]))
         one, none = everywhere(program, "f", ["x", "y"]), Told(program, {}, {})
         self.assertEqual(growth(one, none), 2)
         self.assertEqual(growth(one, frames(program, main={(1,): ["a"]})), 1)
@@ -242,7 +243,8 @@ class ByPlainMeansTest(unittest.TestCase):
             chance = random.Random(at)
             one, told = made_keeper(chance, program), made_told(chance, program, 0.5)
             copy = Told(program, {name: one.closure(name) for name in program.functions[1:]},
-                {(name, point): one.frame(name, point) for name in program.functions for point in points(program, name)})
+                {(name, point): one.frame(name, point) for name in program.functions for point in points(program,
+                    name)})
             self.assertEqual(growth(one, one), 0)
             self.assertEqual(growth(copy, one), 0)
             self.assertEqual(growth(one, told), growth(copy, told))

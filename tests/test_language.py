@@ -147,7 +147,8 @@ class LooksTest(unittest.TestCase):
             self.assertEqual(len(self.found(language.form_faults, f"def f(a, b):\n    c = {row}\n")), 1, row)
 
     def test_stars_in_indexes(self):
-        for row in ("a[(*b, 1)]", "a[(*b, 1)] = 2", "a[0][(1, *b)] += 1", "del a[(*b,)]", "a[[*b]]", "a[*b]", "a[*b, 1]"):
+        for row in ("a[(*b, 1)]", "a[(*b, 1)] = 2", "a[0][(1, *b)] += 1", "del a[(*b,)]", "a[[*b]]", "a[*b]",
+            "a[*b, 1]"):
             self.assertEqual(len(self.found(language.index_faults, f"def f(a, b):\n    {row}\n")), 1, row)
         for row in ("c = (*b, 1)\n    a[c] = 2", "a[b[0]] = [*b]", "c = [*b][0]", "a(*b)"):
             self.assertEqual(self.found(language.index_faults, f"def f(a, b):\n    {row}\n"), [], row)
@@ -172,7 +173,8 @@ class LooksTest(unittest.TestCase):
 
     def test_generators(self):
         text = "def a():\n    yield 1\n"
-        self.assertEqual(self.found(language.generator_faults, text + "class B:\n    def a(self):\n        pass\n"), ["a"])
+        self.assertEqual(self.found(language.generator_faults, text + "class B:\n    def a(self):\n        pass\n"),
+            ["a"])
         for row in ("b = a()", "return a()", "len(a())", "a()"):
             self.assertEqual(self.found(language.generator_faults, f"{text}def c():\n    {row}\n"), ["a"], row)
         for row in ("for b in a():\n        pass", "return list(a())", "return [b for b in a()]"):
@@ -186,7 +188,8 @@ class LooksTest(unittest.TestCase):
 
     def test_exits(self):
         head = "class A:\n    def __exit__(self, kind, value, trace):\n        net = self.net\n"
-        for row in ("net.a = net.b + 1", "net.a()", "net.a = value", "net.a[0] = 1", "if self.a == 1:\n            pass",
+        for row in ("net.a = net.b + 1", "net.a()", "net.a = value", "net.a[0] = 1",
+            "if self.a == 1:\n            pass",
             "for a in net.b:\n            pass", "net.a = [x for x in net.b]", "print(trace)"):
             self.assertNotEqual(self.found(language.exit_faults, f"{head}        {row}\n"), [], row)
         for row in ("net.a = self.b", "if kind is None and self.a:\n            return", "net.a = True"):

@@ -16,10 +16,12 @@ from tests.test_grown import pair
 
 def nest():
     """h stands in g, g in f, f in main; n, m and k are numbers, and u is not used."""
-    h = Function("h", ["z"], numbers=["k"], body=[Show("a"), Show("x"), Show("y"), Add("n", 1), Add("m", 2), Add("k", 3),
+    h = Function("h", ["z"], numbers=["k"], body=[Show("a"), Show("x"), Show("y"), Add("n", 1), Add("m", 2),
+        Add("k", 3),
         Show("z"), Call("g", ["a"])])
     g = Function("g", ["y"], functions=[h], body=[Either([Call("h", ["b"])], [Give("h"), Show("m")]), Show("y")])
-    f = Function("f", ["x"], things=["w"], numbers=["m"], functions=[g], body=[Call("g", ["x"]), Add("m", 1), Show("w")])
+    f = Function("f", ["x"], things=["w"], numbers=["m"], functions=[g],
+        body=[Call("g", ["x"]), Add("m", 1), Show("w")])
     u = Function("u", ["p"], body=[Show("a")])
     return Program(Function("main", ["a"], things=["b"], numbers=["n", "o"], functions=[f, u],
         body=[Call("f", ["a"]), Show("n"), Show("o"), Give("f")]))
@@ -89,7 +91,8 @@ class WaysTest(unittest.TestCase):
         self.assertEqual(entry_price(layout=layout, name="f"), 1)
         self.assertEqual(statement_prices(layout=layout, name="f"), statement_prices(layout, "f"))
         self.assertEqual(price(layout=layout, weights={"f": 0}), price(layout, {"f": 0}))
-        self.assertEqual(paid(layout=layout, world=[(0, (1,), (1, 1), (), ())]), paid(layout, [(0, (1,), (1, 1), (), ())]))
+        self.assertEqual(paid(layout=layout, world=[(0, (1,), (1, 1), (), ())]),
+            paid(layout, [(0, (1,), (1, 1), (), ())]))
 
 
 class EntriesAndStatementsTest(unittest.TestCase):
@@ -111,7 +114,8 @@ class EntriesAndStatementsTest(unittest.TestCase):
         layout = Layout(program, bundles=[["a", "b"]], opened=["h"])
         self.assertEqual(statement_prices(layout, "main"), {(0,): 2, (1,): 1, (2,): 0, (3,): 2})
         # A call costs the units of what it calls, and the ways of what it passes.
-        self.assertEqual(statement_prices(layout, "g"), {(0,): 0, (0, 0, 0): 5 + 2, (0, 1, 0): 5, (0, 1, 1): 2, (1,): 0})
+        self.assertEqual(statement_prices(layout, "g"),
+            {(0,): 0, (0, 0, 0): 5 + 2, (0, 1, 0): 5, (0, 1, 1): 2, (1,): 0})
         self.assertEqual(statement_prices(layout, "f"), {(0,): 4, (1,): 1, (2,): 0})
         self.assertEqual(list(statement_prices(layout, "g")), [(0,), (0, 0, 0), (0, 1, 0), (0, 1, 1), (1,)])
 
@@ -137,7 +141,8 @@ class PriceTest(unittest.TestCase):
     def test_weights(self):
         program = nest()
         layout = Layout(program, bundles=[["a", "b"]], linked=["h"], opened=["g"])
-        parts = {name: entry_price(layout, name) + sum(statement_prices(layout, name).values()) for name in program.used}
+        parts = {name: entry_price(layout, name) + sum(statement_prices(layout,
+            name).values()) for name in program.used}
         self.assertTrue(all(parts.values()))
         self.assertEqual(price(layout), sum(parts.values()))
         self.assertEqual(price(layout, None), price(layout))

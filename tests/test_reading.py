@@ -19,7 +19,8 @@ from tests.test_texts import SAMPLE, sample
 
 KINDS = ("program", "layout", "keeper", "world")
 # Errors of what is written behind the form.
-OTHERS = (DuplicateName, Endless, InvalidBundle, InvalidProgram, TooLong, TooMany, UnknownName, UnknownPoint, WrongCount,
+OTHERS = (DuplicateName, Endless, InvalidBundle, InvalidProgram, TooLong, TooMany, UnknownName, UnknownPoint,
+    WrongCount,
     WrongKind)
 
 
@@ -73,7 +74,8 @@ class BackAndForthTest(unittest.TestCase):
     def test_names_and_lines_in_any_order(self):
         text = "layout\nbundle b a\nlinked g f g\nopened g f f"
         program = read_program("function main a b c d\n" + "".join(
-            f"  function {name}\n    show a\n    show b\n    show c\n    show d\n" for name in "fg") + "  give f\n  give g")
+            f"  function {name}\n    show a\n    show b\n    show c\n    show d\n" for name in "fg")
+            + "  give f\n  give g")
         self.assertEqual(read_layout(program, text).choice(), ((("a", "b"),), ("f", "g"), ("f", "g")))
         self.assertEqual(read_layout(program, "layout\nbundle d c\nbundle b a").bundles, (("a", "b"), ("c", "d")))
         self.assertEqual(write_layout(read_layout(program, text)), "layout\nbundle a b\nlinked f g\nopened f g")
@@ -81,7 +83,8 @@ class BackAndForthTest(unittest.TestCase):
         told = Told(program, {"f": ["a"], "g": ["a", "b"]},
             {("main", ()): ["a", "d"], ("f", ()): ["c"], ("f", (0,)): ["a"], ("f", (1,)): ["b"]})
         self.assertEqual(read_keeper(program, text), told)
-        self.assertEqual(read_world("world\nturn 3 2 1\n  choices 1 5 0\n  takes 3 1 3\n  drops 9 0\nturn 0\nturn 0\n  drops 1"),
+        text = "world\nturn 3 2 1\n  choices 1 5 0\n  takes 3 1 3\n  drops 9 0\nturn 0\nturn 0\n  drops 1"
+        self.assertEqual(read_world(text),
             [(3, (2, 1), (1, 5, 0), (3, 1, 3), (9, 0)), (0, (), (), (), ()), (0, (), (), (), (1,))])
 
     def test_words_of_the_form_are_names_too(self):
@@ -92,7 +95,8 @@ class BackAndForthTest(unittest.TestCase):
             "call either end\n  show show\n  either\n    show end\n  or\n  end")
         self.assertEqual(program.functions, ("function", "either"))
         self.assertEqual(program.main.body[2], Either([Show("end")], []))
-        told = read_keeper(program, "keeper\nclosure either end things\nframe function entry show\nframe either entry or")
+        told = read_keeper(program,
+            "keeper\nclosure either end things\nframe function entry show\nframe either entry or")
         self.assertEqual(told.frame("either", ()), ("or",))
         self.assertEqual(read_layout(program, "layout\nlinked either\nopened either").linked, ("either",))
 
@@ -170,7 +174,8 @@ class LinesTest(unittest.TestCase):
             self.assertEqual(got, len(rows), line)
 
     LINES = {
-        "program": ["function b", "function b c", "things b", "things b c d", "numbers b", "show b", "add b 0", "add b 17",
+        "program": ["function b", "function b c", "things b", "things b c d", "numbers b", "show b", "add b 0",
+            "add b 17",
             "call b", "call b c d", "give b", "either", "or", "end"],
         "layout": ["layout", "bundle b", "bundle b c", "linked b", "opened b c"],
         "keeper": ["keeper", "closure b c", "closure b c d", "frame b entry c", "frame b 0 c", "frame b 0.1.23 c d"],
@@ -180,9 +185,12 @@ class LinesTest(unittest.TestCase):
     def bent(self, line):
         """What a line may become by a small change."""
         words = line.split(" ")
-        others = ["", "b", "b c", "B", "ninechars", "eightcha", "0", "00", "01", "-1", "+1", "1_0", "1.0", "0.", ".0", "0..1",
-            "entry", "entry.0", "0.entry", "entry.", "b1", "\u00e9", "\u0661", "\u00b2", "a\u0301", "\uff11", "\uff41", "9" * 31,
-            "9" * 32, "0.0.00", f"0.{'9' * 31}.1", f"0.{'9' * 32}", "1e3", "0x1", "\t", "\r", "a\r", "\u00a0", "a\tb", "\x0b", "a\x0cb"]
+        others = ["", "b", "b c", "B", "ninechars", "eightcha", "0", "00", "01", "-1", "+1", "1_0", "1.0", "0.", ".0",
+            "0..1",
+            "entry", "entry.0", "0.entry", "entry.", "b1", "\u00e9", "\u0661", "\u00b2", "a\u0301", "\uff11", "\uff41",
+                "9" * 31,
+            "9" * 32, "0.0.00", f"0.{'9' * 31}.1", f"0.{'9' * 32}", "1e3", "0x1", "\t", "\r", "a\r", "\u00a0", "a\tb",
+                "\x0b", "a\x0cb"]
         for at in range(len(words) + 1):
             for other in others:
                 yield words[:at] + [other] + words[at:]
@@ -248,7 +256,8 @@ class LinesTest(unittest.TestCase):
             self.assertEqual([unreadable(kind, value) for kind in KINDS], [0] * 4)
 
     def test_levels(self):
-        lines = ["  " * level + f"function {'abcdefghij'[level % 10]}{'abcdefghij'[level // 10]}" for level in range(100)]
+        names = [first + second for second in "abcdefghij" for first in "abcdefghij"]
+        lines = ["  " * level + f"function {name}" for level, name in enumerate(names)]
         self.assertIsNone(unreadable("program", "\n".join(lines)))
         for more in ("  " * 100 + "function z", "  " * 100 + "show a", "  " * 100 + "things z", "  " * 101 + "show a"):
             self.assertEqual(unreadable("program", "\n".join([*lines, more])), 100)
@@ -267,11 +276,12 @@ class LinesTest(unittest.TestCase):
             self.assertEqual(unreadable("program", "\n".join(eithers + closed[:many])), 100 + many)
         with self.assertRaises(TooMany):
             read_program("\n".join(eithers + closed))
-        # Sixty Eithers in one another are as many statements as a program may have; a shortest way has two moments each.
+        # Sixty Eithers in one another are as many statements as a program may have.
         row = []
         for _ in range(60):
             row = [Either([], row)]
-        self.assertEqual(read_program("\n".join([*eithers[:61], *closed[-120:]])), Program(Function("a", body=self.turned(row))))
+        self.assertEqual(read_program("\n".join([*eithers[:61], *closed[-120:]])),
+            Program(Function("a", body=self.turned(row))))
 
     def turned(self, rows):
         """The same Eithers with their lists exchanged."""
@@ -279,8 +289,10 @@ class LinesTest(unittest.TestCase):
 
     def test_doubled_keys_of_keepers(self):
         for text, line in (
-            ("closure a b\nclosure a c", 2), ("closure a b\nclosure b c\nclosure a b", 3), ("closure c b\nclosure d b", None),
-            ("frame a 0 b\nframe a 0 c", 2), ("frame a 0 b\nframe b 0 c\nframe a 0 b", 3), ("frame a 0 b\nframe a 1 b", None),
+            ("closure a b\nclosure a c", 2), ("closure a b\nclosure b c\nclosure a b", 3),
+                ("closure c b\nclosure d b", None),
+            ("frame a 0 b\nframe a 0 c", 2), ("frame a 0 b\nframe b 0 c\nframe a 0 b", 3),
+                ("frame a 0 b\nframe a 1 b", None),
             ("frame a entry b\nframe a entry b", 2), ("frame a 0.1 b\nframe a 0.1.0 b\nframe a 0 b", None),
             ("closure a b\nframe a entry b\nclosure b c", 3), ("closure a b\nframe a entry b\nframe a 0 b", None),
         ):
@@ -292,14 +304,15 @@ class LinesTest(unittest.TestCase):
             want = [None, None, None] if is_one else [1, 1, 1]
             self.assertEqual([unreadable("world", f"world\nturn {word}"), unreadable("world", f"world\nturn 0 {word}"),
                 unreadable("program", f"function a\n  add b {word}")], want, word)
-        self.assertEqual(read_world(f"world\nturn {'9' * 31} {'9' * 31}"), [(10 ** 31 - 1, (10 ** 31 - 1,), (), (), ())])
+        self.assertEqual(read_world(f"world\nturn {'9' * 31} {'9' * 31}"),
+            [(10 ** 31 - 1, (10 ** 31 - 1,), (), (), ())])
 
 
 class CutTextsTest(unittest.TestCase):
     """Lines of texts left out, doubled and exchanged."""
 
     def follows(self, rows, at):
-        """Whether a program may go on with the line with this index, by the line ahead of it and by the open Eithers."""
+        """Whether a program may go on with the line with this index, behind those ahead of it."""
         return unreadable("program", "\n".join(rows[:at + 1])) in (None, at + 1)
 
     def test_the_told_line_is_the_first_one(self):
@@ -375,13 +388,17 @@ class ErrorsBehindTest(unittest.TestCase):
 
     def test_errors_of_each_kind(self):
         for text, kind, fields in (
-            ("function a\n  add b 0", InvalidProgram, {"place": "a"}), ("function a\n  add b 1001", InvalidProgram, {"place": "a"}),
-            ("function a a", DuplicateName, {"value": "a"}), ("function a\n  things b b", DuplicateName, {"value": "b"}),
-            ("function a\n  show b", UnknownName, {"value": "b"}), ("function a\n  give a", UnknownName, {"value": "a"}),
+            ("function a\n  add b 0", InvalidProgram, {"place": "a"}),
+                ("function a\n  add b 1001", InvalidProgram, {"place": "a"}),
+            ("function a a", DuplicateName, {"value": "a"}),
+                ("function a\n  things b b", DuplicateName, {"value": "b"}),
+            ("function a\n  show b", UnknownName, {"value": "b"}),
+                ("function a\n  give a", UnknownName, {"value": "a"}),
             ("function a b\n  add b 1", WrongKind, {"value": "b"}),
             ("function a\n  function b c\n  call b", WrongCount, {"value": "b"}),
             ("function a\n  function b\n    call b", Endless, {"value": "b"}),
-            ("\n".join("  " * level + f"function {letter}" for level, letter in enumerate("abcdef")), TooMany, {"limit": 5}),
+            ("\n".join("  " * level + f"function {letter}" for level, letter in enumerate("abcdef")), TooMany,
+                {"limit": 5}),
             ("function a\n" + "\n".join(["  give b"] * 5), UnknownName, {"value": "b"}),
         ):
             with self.assertRaises(kind) as caught:
@@ -400,7 +417,8 @@ class ErrorsBehindTest(unittest.TestCase):
         for text, kind, fields in (
             ("bundle a", InvalidBundle, {"index": 0}), ("bundle a b\nbundle b a", InvalidBundle, {"index": 1}),
             ("bundle a c", InvalidBundle, {"index": 0}), ("bundle a a", InvalidBundle, {"index": 0}),
-            ("bundle a b\nbundle x y\nlinked z", InvalidBundle, {"index": 1}), ("linked f u", UnknownName, {"value": "u"}),
+            ("bundle a b\nbundle x y\nlinked z", InvalidBundle, {"index": 1}),
+                ("linked f u", UnknownName, {"value": "u"}),
             ("linked m", UnknownName, {"value": "m"}), ("linked f\nopened f x", UnknownName, {"value": "x"}),
             ("linked y\nopened x", UnknownName, {"value": "y"}),
         ):
@@ -414,10 +432,12 @@ class ErrorsBehindTest(unittest.TestCase):
     def test_errors_of_keepers(self):
         program = read_program("function m a b\n  function f x\n    show a\n  function u y\n  give f")
         for text, kind, value in (
-            ("closure m a", UnknownName, "m"), ("closure f a\nclosure z a", UnknownName, "z"), ("closure f x", UnknownName, "x"),
+            ("closure m a", UnknownName, "m"), ("closure f a\nclosure z a", UnknownName, "z"),
+                ("closure f x", UnknownName, "x"),
             ("closure f z\nframe f 1 a", UnknownPoint, ("f", (1,))), ("frame f 0.0 a", UnknownPoint, ("f", (0, 0))),
             ("frame z entry a", UnknownPoint, ("z", ())), ("frame f entry y", UnknownName, "y"),
-            ("closure f a\nframe f 0 x z", UnknownName, "z"), (f"frame f {10 ** 30} a", UnknownPoint, ("f", (10 ** 30,))),
+            ("closure f a\nframe f 0 x z", UnknownName, "z"),
+                (f"frame f {10 ** 30} a", UnknownPoint, ("f", (10 ** 30,))),
         ):
             with self.assertRaises(kind) as caught:
                 read_keeper(program, "keeper\n" + text)
@@ -428,8 +448,10 @@ class ErrorsBehindTest(unittest.TestCase):
 
     def test_texts_by_chance(self):
         """No other error for any text."""
-        words = ["function", "things", "numbers", "show", "add", "call", "give", "either", "or", "end", "layout", "bundle",
-            "linked", "opened", "keeper", "closure", "frame", "world", "turn", "choices", "takes", "drops", "a", "b", "c", "0",
+        words = ["function", "things", "numbers", "show", "add", "call", "give", "either", "or", "end", "layout",
+            "bundle",
+            "linked", "opened", "keeper", "closure", "frame", "world", "turn", "choices", "takes", "drops", "a", "b",
+                "c", "0",
             "1", "entry", "0.0", "", " ", "A", "\u00e9"]
         chance = random.Random(7)
         for _ in range(4000):
@@ -464,7 +486,8 @@ class TimeTest(unittest.TestCase):
     def test_plain_keepers(self):
         program = sample()
         self.assertEqual(read_keeper(program, write_keeper(Plain(program))), Plain(program))
-        self.assertEqual(read_layout(program, write_layout(Layout.chained(program))).choice(), Layout.chained(program).choice())
+        self.assertEqual(read_layout(program, write_layout(Layout.chained(program))).choice(),
+            Layout.chained(program).choice())
         self.assertIsNone(refusal(Function("main")))
 
 

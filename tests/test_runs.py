@@ -180,7 +180,8 @@ class DropsTest(unittest.TestCase):
         handle = run.handles[2]
         handle.drop()
         before = state(run)
-        for call in (handle.drop, handle, lambda: handle(None), lambda: handle([], [], [99]), lambda: handle(5, 5, 5, 5)):
+        for call in (handle.drop, handle, lambda: handle(None), lambda: handle([], [], [99]),
+            lambda: handle(5, 5, 5, 5)):
             with self.assertRaises(NotHeld) as caught:
                 call()
             self.assertEqual(vars(caught.exception), {"value": 2})
@@ -224,7 +225,8 @@ class RefusedCallsTest(unittest.TestCase):
 
     def test_things_that_are_none(self):
         for turns in (0, 1, 2):
-            for value in [*any_values(), [], [1, 2], [-1], [True], ["a"], [10 ** 30 + 1], (None,), "a", range(1), {0: 1}]:
+            for value in [*any_values(), [], [1, 2], [-1], [True], ["a"], [10 ** 30 + 1], (None,), "a", range(1),
+                {0: 1}]:
                 self.check(self.begun(turns), lambda run, value=value: run.handles[0](value, [0]), InvalidWorld,
                     {"index": turns})
 
@@ -235,10 +237,12 @@ class RefusedCallsTest(unittest.TestCase):
             self.check(self.begun(), lambda run, value=value: run.handles[0]([1], value), InvalidWorld, {"index": 1})
 
     def test_takes_that_are_none(self):
-        for value in [*any_values(), [1, 0], [0, 0], [-1], [True], [0, None], (3,), [0, 1, 2, 3], [10 ** 99], "0", {0: 0}]:
+        for value in [*any_values(), [1, 0], [0, 0], [-1], [True], [0, None], (3,), [0, 1, 2, 3], [10 ** 99], "0",
+            {0: 0}]:
             if value in ((), []):
                 continue
-            self.check(self.begun(), lambda run, value=value: run.handles[0]([1], [0], value), InvalidWorld, {"index": 1})
+            self.check(self.begun(), lambda run, value=value: run.handles[0]([1], [0], value), InvalidWorld,
+                {"index": 1})
 
     def test_too_few_choices(self):
         self.check(self.begun(), lambda run: run.handles[0]([1]), InvalidWorld, {"index": 1})
@@ -246,7 +250,7 @@ class RefusedCallsTest(unittest.TestCase):
         self.check(self.begun(), lambda run: run.handles[0]([1], [], [0], True), InvalidWorld, {"index": 1})
 
     def test_numbers_and_own_things_of_a_refused_call(self):
-        # f adds to numbers of older activations, makes a thing, and gives closures, ahead of the choice it does not get.
+        # f adds to numbers of older activations, makes a thing, and gives closures, ahead of the choice it lacks.
         run = self.begun()
         f, g = run.handles[1:]
         for _ in range(3):
@@ -307,7 +311,8 @@ class OfTest(unittest.TestCase):
 
     def test_turns_that_are_none(self):
         good = (0, (7,), (0,), (0,), ())
-        bad = [*any_values(), (0, (), (), (), ()), (5, (), (), (), ()), (0, (7,), (0,), (9,), ()), (0, (7,), (), (), ()),
+        bad = [*any_values(), (0, (), (), (), ()), (5, (), (), (), ()), (0, (7,), (0,), (9,), ()),
+            (0, (7,), (), (), ()),
             (0, [7], (0,), (), ()), list(good), (0, (7,), (0,), (), (1,))]
         for turns in (0, 1, 3):
             for value in bad:

@@ -85,7 +85,8 @@ class BeginningTest(Case):
                 self.assertIsInstance(vars(made)[name], property)
                 with self.assertRaises(AttributeError):
                     setattr(session, name, 0)
-        for name in ("adopt", "apply", "weigh", "improve", "undo", "redo", "trial", "attempt", "works", "copied", "__eq__"):
+        for name in ("adopt", "apply", "weigh", "improve", "undo", "redo", "trial", "attempt", "works", "copied",
+            "__eq__"):
             self.assertIn(name, vars(Session))
         self.assertIsInstance(vars(Trial)["is_kept"], property)
         for name in ("keep", "__enter__", "__exit__"):
@@ -146,7 +147,8 @@ class StepsTest(Case):
         self.refused(session, UnknownName, {"value": "Z"}, lambda: session.weigh(**{"zz": None, "Z": None, "f": 1}))
         program = Program(Function("main", functions=[Function("self"), Function("weights"), Function("name")]))
         used = Program(Function("main", functions=program.main.functions, body=read_program(
-            "function main\n  function self\n  function weights\n  function name\n  give self\n  give weights\n  give name"
+            "function main\n  function self\n  function weights\n  function name\n  give self\n  give weights\n"
+            "  give name"
         ).main.body))
         session = Session(used)
         session.weigh(weights=3, name=4)
@@ -323,7 +325,8 @@ class UndoingTest(Case):
     def test_refused_calls_leave_what_can_be_redone(self):
         session = self.begun()
         session.undo(2)
-        for call in (lambda: session.weigh(f=-1), lambda: session.weigh(nobody=1), lambda: session.adopt(Layout(nest())),
+        for call in (lambda: session.weigh(f=-1), lambda: session.weigh(nobody=1),
+            lambda: session.adopt(Layout(nest())),
             lambda: session.apply(Pruning(nest())), lambda: session.improve(-1), lambda: session.undo(9),
             lambda: session.redo(0)):
             with self.assertRaises((ValueError, LookupError)):
@@ -535,8 +538,8 @@ class GuardsTest(Case):
 
     def test_a_growth_without_end(self):
         # Each frame of f keeps y, for the sake of z in the same bundle, while it calls f again.
-        text = "function main\n  function f\n    things y z\n    function g\n      show y\n    function h\n      show z\n" \
-            "    give g\n    either\n      call f\n    or\n    end\n    give h\n  call f"
+        text = "function main\n  function f\n    things y z\n    function g\n      show y\n    function h\n" \
+            "      show z\n    give g\n    either\n      call f\n    or\n    end\n    give h\n  call f"
         program = read_program(text)
         layout = Layout(program, bundles=[["y", "z"]], opened=["g", "h"])
         self.assertIsNone(growth(layout, Plain(program)))

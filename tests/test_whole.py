@@ -145,14 +145,16 @@ class Calls:
 
     def given(self):
         """What the calls are given, as values that can be compared."""
-        return (self.program.main, [tells(keeper) for keeper in (self.layout, self.one, self.other)], self.layout.choice(),
+        return (self.program.main, [tells(keeper) for keeper in (self.layout, self.one, self.other)],
+            self.layout.choice(),
             self.world, self.weights, self.names, self.text, self.answer)
 
     def calls(self):
         program, layout = self.program, self.layout
         rows = {
             "growth": lambda: growth(self.one, self.other), "grown": lambda: grown(self.one, self.other),
-            "is_grown": lambda: is_grown(self.one, self.other, self.answer), "price": lambda: price(layout, self.weights),
+            "is_grown": lambda: is_grown(self.one, self.other, self.answer),
+                "price": lambda: price(layout, self.weights),
             "mends": lambda: mends(layout), "size": lambda: family_size(program),
             "renaming": lambda: write_program(Renaming(program, self.names).result),
             "carried": lambda: tells(Renaming(program, self.names)(self.one)),
@@ -162,7 +164,8 @@ class Calls:
             "read": lambda: read_program(self.text).functions, "is text": lambda: is_program_text(self.text),
             "read world": lambda: read_world(write_world(self.world)), "session": self.session, "desk": self.desk,
             "points": lambda: [point_at(program, at) for at in range(self.text.count("\n") + 1)],
-            "lines": lambda: [line_of(program, name, point) for name in program.functions for point in points(program, name)],
+            "lines": lambda: [line_of(program, name, point) for name in program.functions for point in points(program,
+                name)],
         }
         for name in program.used:
             rows[f"statements {name}"] = lambda name=name: statement_prices(layout, name)
@@ -184,7 +187,8 @@ class Calls:
         return [[layout.choice(), weights] for _, layout, weights in session.works()] + [session.weights, session.price]
 
     def desk(self):
-        return answers(Session(self.program), ["program", "weigh " + self.program.functions[0] + " 3", "price", "undo", "table"])
+        return answers(Session(self.program), ["program", "weigh " + self.program.functions[0] + " 3", "price", "undo",
+            "table"])
 
 
 class ConventionsTest(unittest.TestCase):
@@ -219,7 +223,7 @@ class ConventionsTest(unittest.TestCase):
 
 class TimeTest(unittest.TestCase):
     def great(self):
-        """A program near most limits: ten functions, five in one another, twelve things in a chain, sixty statements."""
+        """A program near most limits: of functions, of those in one another, of things in a chain, of statements."""
         text = ["function main a b", "  things c", "  numbers n m"]
         for level, name in enumerate("fghk"):
             ahead = "  " * (level + 1)
@@ -269,7 +273,8 @@ class TimeTest(unittest.TestCase):
         self.assertLess(time.perf_counter() - began, 20)
 
     def test_long_worlds(self):
-        program = read_program("function main a\n  function f x\n    things y\n    either\n      call f y\n    or\n    end\n"
+        program = read_program(
+            "function main a\n  function f x\n    things y\n    either\n      call f y\n    or\n    end\n"
             "  call f a")
         world = [(0, (5,), (0,) * 24000 + (1,), (), ())]
         began = time.perf_counter()
