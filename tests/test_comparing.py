@@ -1,5 +1,4 @@
 import random
-import time
 import unittest
 from unittest import mock
 

@@ -16,7 +16,6 @@ from heldby.sessions import BoundSession, CappedSession, Session, StrictSession
 from heldby.texts import keeper_table, write_keeper, write_layout, write_program
 from tests.makers import made_layout, programs
 from tests.samples import any_values
-from tests.test_changes import nest
 from tests.test_families import flat_program
 from tests.test_grown import pair
 from tests.test_sessions import redone, state, work
