@@ -19,7 +19,8 @@ class Trial:
 
     def __init__(self, session):
         self._session = session
-        self._is_wanted = False
+        # True from keep() on; till then None, as this is all that the end of a block may ask for.
+        self._is_wanted = None
         self._is_kept = False
 
     @property
@@ -44,7 +45,7 @@ class Trial:
     def __exit__(self, kind, value, trace):
         session = self._session
         session._depth = self._depth
-        if kind is None and self._is_wanted:
+        if kind is None and self._is_wanted is not None:
             self._is_kept = True
             session._past = self._past
             session._future = self._future

@@ -271,23 +271,41 @@ def handler_faults(texts):
 
 EXIT_NODES = (
     ast.FunctionDef, ast.arguments, ast.arg, ast.Assign, ast.Attribute, ast.Name, ast.Load, ast.Store, ast.Constant,
-    ast.If, ast.BoolOp, ast.And, ast.Or, ast.UnaryOp, ast.Not, ast.Return, ast.Pass, ast.Expr,
+    ast.If, ast.Return, ast.Pass, ast.Expr, ast.Tuple,
 )
 
 
+def asked_parts(test):
+    """The parts of a test that `and`, `or` and `not` join."""
+    if isinstance(test, ast.BoolOp):
+        return [part for value in test.values for part in asked_parts(value)]
+    if isinstance(test, ast.UnaryOp) and isinstance(test.op, ast.Not):
+        return asked_parts(test.operand)
+    return [test]
+
+
+def is_asked_for_none(part):
+    """Whether a part of a test is a name or an attribute, and `is None` or `is not None`."""
+    return (
+        isinstance(part, ast.Compare) and isinstance(part.left, (ast.Name, ast.Attribute))
+        and [type(sign) in (ast.Is, ast.IsNot) for sign in part.ops] == [True]
+        and ast.unparse(part.comparators[0]) == "None"
+    )
+
+
 def exit_faults(texts):
-    """What may not stand in an `__exit__` or in a `finally`."""
+    """What may not stand in an `__exit__` or in a `finally`, in a package with an `__eq__`."""
     trees = trees_of(texts)
     rows = [(path, node) for path, _, node in methods_of(trees) if node.name == "__exit__"]
     rows += [(path, inner) for path, node in nodes_of(trees, ast.Try) for inner in node.finalbody]
     faults = []
     for path, row in rows:
+        tests = [node.test for node in ast.walk(row) if isinstance(node, ast.If)]
+        parts = [part for test in tests for part in asked_parts(test)]
+        faults += [(path, part.lineno, ast.unparse(part)) for part in parts if not is_asked_for_none(part)]
+        asked = {id(node) for test in tests for node in ast.walk(test)}
         for node in ast.walk(row):
-            if isinstance(node, ast.Compare):
-                plain = isinstance(node.ops[0], (ast.Is, ast.IsNot)) and ast.unparse(node.comparators[0]) == "None"
-                if not plain or not isinstance(node.left, ast.Name):
-                    faults.append((path, node.lineno, ast.unparse(node)))
-            elif not isinstance(node, (*EXIT_NODES, ast.Is, ast.IsNot, ast.Tuple)):
+            if id(node) not in asked and not isinstance(node, EXIT_NODES):
                 faults.append((path, getattr(node, "lineno", 0), type(node).__name__))
             if isinstance(node, ast.Name) and node.id in ("value", "trace"):
                 faults.append((path, node.lineno, node.id))

@@ -189,13 +189,29 @@ class LooksTest(unittest.TestCase):
     def test_exits(self):
         head = "class A:\n    def __exit__(self, kind, value, trace):\n        net = self.net\n"
         for row in ("net.a = net.b + 1", "net.a()", "net.a = value", "net.a[0] = 1",
-            "if self.a == 1:\n            pass",
-            "for a in net.b:\n            pass", "net.a = [x for x in net.b]", "print(trace)"):
+            "for a in net.b:\n            pass", "net.a = [x for x in net.b]", "print(trace)", "net.a = net.b is None",
+            "net.a = net.b or net.c", "net.a = not net.b", "net.a = net.b if kind is None else net.c"):
             self.assertNotEqual(self.found(language.exit_faults, f"{head}        {row}\n"), [], row)
-        for row in ("net.a = self.b", "if kind is None and self.a:\n            return", "net.a = True"):
+        for row in ("net.a = self.b", "net.a = True", "net.a = (self.b, 1)"):
             self.assertEqual(self.found(language.exit_faults, f"{head}        {row}\n"), [], row)
         text = "def f(a):\n    try:\n        a.b()\n    finally:\n        a.c = d()\n"
         self.assertEqual(self.found(language.exit_faults, text), ["Call"])
+
+    def test_questions_of_exits(self):
+        heads = (
+            "class A:\n    def __exit__(self, kind, value, trace):\n        ",
+            "def f(self, kind):\n    try:\n        g()\n    finally:\n        ",
+        )
+        for head in heads:
+            for test in ("self.a", "not self.a", "kind is None and self.a", "self.a or kind is None", "self.a == 1",
+                "None is kind", "self.a is True", "self.a() is None", "self.a[0] is None", "kind is self.a", "True",
+                "kind is self.a is None", "len(self.a)"):
+                text = f"{head}if {test}:\n            return\n"
+                self.assertEqual(len(self.found(language.exit_faults, text)), 1, text)
+            for test in ("kind is None", "self.a is not None", "kind is None and self.a is not None",
+                "not (kind is None or self.a.b is None)"):
+                text = f"{head}if {test}:\n            return\n"
+                self.assertEqual(self.found(language.exit_faults, text), [], text)
 
     def test_class_methods(self):
         text = "class Box:\n    @classmethod\n    def of(cls):\n        return cls()\ndef f():\n    return Box.ROW\n"
