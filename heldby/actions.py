@@ -1,7 +1,6 @@
 """What the lines of a desk do: functions of a session and of what a line tells, which return the answer."""
 
 from heldby.changes import Lifting, Pruning, Renaming, Sinking
-from heldby.choices import captured_owners
 from heldby.errors import UnknownName
 from heldby.growth import growth
 from heldby.keepers import Plain
@@ -32,7 +31,7 @@ def _alone(session, told):
 
 
 def _check_captured(session, names):
-    owners = captured_owners(session.program)
+    owners = session.program.captured_owners
     for name in names:
         if name not in owners:
             raise UnknownName(name)

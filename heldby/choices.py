@@ -3,11 +3,6 @@
 from heldby.errors import InvalidBundle, InvalidList, UnknownName
 
 
-def captured_owners(program):
-    """A dict from the captured variables, in the order of the text, to the names of their functions."""
-    return {variable: name for name in program.functions for variable in program.captured(name)}
-
-
 def is_inner(program, value):
     """Whether any value is the name of a used function other than main."""
     return isinstance(value, str) and value in program.used[1:]
@@ -17,7 +12,7 @@ def chosen_bundles(program, bundles):
     """The bundles in the order of the text; raises InvalidBundle."""
     if not isinstance(bundles, (list, tuple)):
         raise InvalidBundle(-1)
-    owners = captured_owners(program)
+    owners = program.captured_owners
     taken = {}
     for index, bundle in enumerate(bundles):
         if not _is_bundle(bundle, owners) or _has_any(bundle, taken):

@@ -1,9 +1,6 @@
 """What the entries and the statements of the functions of a layout cost."""
 
-from heldby.choices import captured_owners
-from heldby.items import owners_of
 from heldby.statements import Add, Call, Give, Show
-from heldby.trees import own_things
 
 
 class Costs:
@@ -12,16 +9,14 @@ class Costs:
     def __init__(self, layout):
         self._layout = layout
         self._program = layout.program
-        self._owners = owners_of(self._program)
-        self._captured = captured_owners(self._program)
+        self._owners = self._program.owners
+        self._captured = self._program.captured_owners
+        self._numbers = self._program.number_names
         self._bundled = {variable: True for bundle in layout.bundles for variable in bundle}
-        self._things = {
-            thing: True for name in self._program.functions for thing in own_things(self._program.function(name))
-        }
 
     def way(self, name, variable):
         """What it costs a used function to come to a variable that it uses."""
-        is_number = variable not in self._things
+        is_number = variable in self._numbers
         if self._owners[variable] == name:
             return 1 if is_number and variable in self._captured else 0
         way = self._links(name, self._owners[variable])
@@ -43,7 +38,7 @@ class Costs:
         """What an entry of a used function costs."""
         cost = sum([len(bundle) for bundle in self._layout.bundles if self._owners[bundle[0]] == name])
         for variable in self._program.captured(name):
-            if variable not in self._things and variable not in self._bundled:
+            if variable in self._numbers and variable not in self._bundled:
                 cost += 1
         return cost + self._units(name) if name in self._layout.opened else cost
 
@@ -69,5 +64,6 @@ class Costs:
         """The price of the layout, for the weights of all used functions."""
         cost = 0
         for name in self._program.used:
-            cost += loads[name] * (self.entry_cost(name) + sum(list(self.statement_costs(name).values())))
+            costs = [self._statement(name, statement) for statement in self._program.body_statements(name)]
+            cost += loads[name] * (self.entry_cost(name) + sum(costs))
         return cost

@@ -8,9 +8,10 @@ from heldby.names import is_plain_integer
 def least_count(stands, bounds):
     """The count of the least closures, stands and bounds, from all stands and the bounds of each."""
     main = stands.rows[0][0]
-    closures = sorted([closure for closure in stands.starts if closure[0] != main])
-    entered = sorted(list({without_bools(stand): True for stand in stands.rows}))
-    standing = sorted([(stand, bounds[number]) for number, stand in enumerate(stands.rows)])
+    closures = sorted([stands.groups.told(closure) for closure in stands.starts if closure[0] != main])
+    rows = [stands.groups.told(stand) for stand in stands.rows]
+    entered = sorted(list({without_bools(stand): True for stand in rows}))
+    standing = sorted([(stand, bounds[number]) for number, stand in enumerate(rows)])
     return (tuple(closures), tuple(entered), tuple(standing))
 
 
@@ -84,20 +85,24 @@ def _is_bare(groups):
 def _is_right(groups, number, value):
     """Whether the four rules hold for parts of the right kinds."""
     closures, entered, standing = value
-    known, plain = {row: True for row in closures}, {row: True for row in entered}
-    bounds = {row[0]: row[1] for row in standing}
-    for start in [groups.start_of(closure) for closure in [groups.main_closure(), *closures]]:
+    known, plain = {groups.numbered(row): True for row in closures}, {groups.numbered(row): True for row in entered}
+    bounds = {groups.numbered(row[0]): row[1] for row in standing}
+    for start in [groups.start_of(closure) for closure in [groups.main_closure(), *known]]:
         if start not in plain or start not in bounds or bounds[start] > number:
             return False
-    for closure in closures:
+    for closure in known:
         if groups.excess_of(closure) > number:
             return False
-    for stand in entered:
-        if not all([without_bools(row[1]) in plain for row in groups.calls_from(stand)]):
+    for stand in plain:
+        if not all([_without_bools(groups, row[1]) in plain for row in groups.calls_from(stand)]):
             return False
         if not all([row[1] in known for row in groups.gives_from(stand)]):
             return False
     return all([_is_bound(groups, stand, bounds) for stand in bounds])
+
+
+def _without_bools(groups, stand):
+    return groups.numbered(without_bools(groups.told(stand)))
 
 
 def _is_bound(groups, stand, bounds):

@@ -3,12 +3,13 @@
 from heldby.errors import Endless, TooLong
 from heldby.limits import COURSE
 from heldby.statements import Call, Either
-from heldby.trees import functions_inside
+from heldby.trees import functions_by_bodies
 
 
 def shortest_courses(main):
     """A dict from the names of all functions to the numbered moments of their shortest calls, None if endless."""
-    functions = functions_inside(main)
+    # Inner functions come first, as most calls are calls of these.
+    functions = functions_by_bodies(main)
     courses = {function.name: None for function in functions}
     changed = True
     # From no known ends on, each round finds ends, or shorter ones, through calls nested once more.

@@ -1,66 +1,62 @@
 """The items of functions, ("variable", x) and ("record", p), and which of them their records have."""
 
 
-def owners_of(program):
-    """A dict from all variables to the names of their functions."""
-    return {variable: name for name in program.functions for variable in program.variables(name)}
-
-
-def owner_of(item, owners):
+def owner_of(program, item):
     """The function to which an item belongs."""
     kind, name = item
-    return name if kind == "record" else owners[name]
+    return name if kind == "record" else program.owners[name]
 
 
 def least_items(program, linked):
     """Two dicts from the used functions to tuples: of their items, and of their recorded items."""
-    wanted = {name: () for name in program.used}
-    recorded = {name: () for name in program.used}
+    # At the entry the whole body is the rest.
+    called = {name: program.rests(name)[0][2] for name in program.used}
+    parents = {name: program.parent(name) for name in linked}
+    inner = {name: [other for other in linked if parents[other] == name] for name in program.used}
+    wanted = {name: _used_items(program, name) for name in program.used}
+    recorded = {name: _recorded_of(program, name, parents, wanted[name]) for name in program.used}
     changed = True
-    # The least sets: begin with nothing, and go on until nothing more follows.
+    # The least sets: begin with what the bodies use, and go on until nothing more follows.
     while changed:
         changed = False
-        for name in program.used:
-            items = _items_now(program, name, linked, (wanted, recorded))
-            if items != wanted[name]:
+        # Inner functions stand behind those around them, which most often want what these want.
+        for name in reversed(program.used):
+            # Whoever makes a record needs its items, and whoever is linked to needs those of the linked one.
+            rows = [wanted[name], *[recorded[other] for other in called[name]]]
+            rows.extend([wanted[other] for other in inner[name]])
+            items = {item: True for row in rows for item in row if owner_of(program, item) != name}
+            if len(items) > len(wanted[name]):
                 wanted[name] = items
-                recorded[name] = _recorded_of(program, name, linked, items)
+                recorded[name] = _recorded_of(program, name, parents, items)
                 changed = True
-    return wanted, recorded
+    orders = {name: _possible_items(program, name) for name in program.used}
+    return _in_order(wanted, orders), _in_order(recorded, orders)
 
 
-def _items_now(program, name, linked, known):
-    """The items of a function that follow from what is known, in their order."""
-    wanted, recorded = known
-    found = {("variable", variable): True for variable in program.uses(name)}
-    for called in _called(program, name):
-        for item in recorded[called]:
-            found[item] = True
-    for inner in linked:
-        if program.parent(inner) == name:
-            for item in wanted[inner]:
-                found[item] = True
-    # What belongs to the function itself is no item of it, so it is not looked for.
-    return tuple([item for around in program.chain(name)[:-1] for item in _owned(program, around) if item in found])
+def _used_items(program, name):
+    """A dict of the variables of functions around that a function uses, as items."""
+    return {("variable", variable): True for variable in program.uses(name) if program.owners[variable] != name}
 
 
-def _called(program, name):
-    """The functions that a function calls or gives: its whole body is the rest at its entry."""
-    return program.rests(name)[0][2]
-
-
-def _owned(program, name):
-    """All items that may belong to a function, in their order."""
-    return [("record", name)] + [("variable", variable) for variable in program.variables(name)]
-
-
-def _recorded_of(program, name, linked, items):
-    if name not in linked:
+def _recorded_of(program, name, parents, items):
+    """A dict of those items that the record of a function has; parents has the parents of the linked functions."""
+    if name not in parents:
         return items
-    parent = program.parent(name)
-    owned = _owned(program, parent)
-    near = [item for item in items if item in owned]
-    if len(near) < len(items) and owned[0] not in near:
-        # The record of the parent stands ahead of the parent's variables.
-        near = [owned[0]] + near
-    return tuple(near)
+    parent = parents[name]
+    near = {item: True for item in items if owner_of(program, item) == parent}
+    if len(near) < len(items):
+        near[("record", parent)] = True
+    return near
+
+
+def _possible_items(program, name):
+    """All items that a function may have, in their order: of outer functions first, records ahead of variables."""
+    items = []
+    for around in program.chain(name)[:-1]:
+        items.append(("record", around))
+        items.extend([("variable", variable) for variable in program.variables(around)])
+    return items
+
+
+def _in_order(found, orders):
+    return {name: tuple([item for item in orders[name] if item in found[name]]) for name in found}

@@ -42,6 +42,10 @@ class Keeper:
             raise UnknownPoint(point)
         return self._frames[(name, point)]
 
+    def frame_at(self, name, point):
+        """The same for what is known to be a point of the function."""
+        return self._frames[(name, point)]
+
     def __eq__(self, other):
         return (
             isinstance(other, Keeper)

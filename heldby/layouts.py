@@ -1,10 +1,10 @@
 """Layouts: how the closures of a program lie in memory, and what they keep by that."""
 
-from heldby.choices import captured_owners, chosen_bundles, chosen_functions, is_inner
+from heldby.choices import chosen_bundles, chosen_functions, is_inner
 from heldby.errors import InvalidIndex, NotFlag, NotJoined, UnknownName, UnknownUnit
 from heldby.keepers import Keeper, check_one_program
 from heldby.names import is_integer
-from heldby.records import Records
+from heldby.records import records_of
 
 
 class Layout(Keeper):
@@ -14,10 +14,8 @@ class Layout(Keeper):
         self._bundles = chosen_bundles(program, bundles)
         self._linked = chosen_functions(program, "linked", linked)
         self._opened = chosen_functions(program, "opened", opened)
-        self._records = Records(program, self._bundles, self._linked)
-        super().__init__(
-            program, _closures(program, self._records), _frames(program, self._records, self._opened)
-        )
+        self._records = records_of(program, self._bundles, self._linked)
+        super().__init__(program, self._records.closures, _frames(program, self._records, self._opened))
 
     @classmethod
     def flat(cls, program):
@@ -79,7 +77,7 @@ class Layout(Keeper):
 
     def joined(self, one, other):
         """The layout with the units of two captured variables as one bundle."""
-        owners = captured_owners(self._program)
+        owners = self._program.captured_owners
         for variable in (one, other):
             if not isinstance(variable, str) or variable not in owners:
                 raise UnknownName(variable)
@@ -129,26 +127,10 @@ class Layout(Keeper):
             raise NotFlag(on)
 
 
-def _closures(program, records):
-    """What the closures of all functions keep; those that are not used keep nothing."""
-    closures = {name: () for name in program.functions}
-    for name in program.used:
-        closures[name] = records.kept_by_closure(name)
-    return closures
-
-
 def _frames(program, records, opened):
     """What the frames of all functions keep at all points."""
-    frames = {(name, row[0]): () for name in program.functions for row in program.rests(name)}
-    for name in program.used:
-        known = {}
-        # Many points have equal rests, at which frames keep the same.
-        for point, variables, functions in program.rests(name):
-            rest = (variables, functions)
-            if rest not in known:
-                known[rest] = records.kept_by_frame(name, rest, name in opened)
-            frames[(name, point)] = known[rest]
-    return frames
+    rows = [records.frames_of(name, name in opened) for name in program.functions]
+    return {key: kept for row in rows for key, kept in row.items()}
 
 
 def _may_be_unit(value):

@@ -1,6 +1,5 @@
 """What a name is, and what an integer is."""
 
-LETTERS = "abcdefghijklmnopqrstuvwxyz"
 LONGEST = 8
 
 
@@ -8,7 +7,7 @@ def is_name(value):
     """Whether any value is a string of 1 to 8 letters from a to z."""
     if not isinstance(value, str) or not 1 <= len(value) <= LONGEST:
         return False
-    return all([letter in LETTERS for letter in value])
+    return value.isascii() and value.isalpha() and value.islower()
 
 
 def is_plain_integer(value):

@@ -2,7 +2,6 @@
 
 from heldby.rewriting import remade_function, renamed_statement
 from heldby.statements import Call, Give
-from heldby.trees import all_statements
 
 
 def functions_within(program, name):
@@ -13,7 +12,7 @@ def functions_within(program, name):
 def is_given(program, name):
     """Whether a function of the program, used or not, gives this one."""
     for giver in program.functions:
-        for statement in all_statements(program.function(giver).body):
+        for statement in program.body_statements(giver):
             if isinstance(statement, Give) and statement.name == name:
                 return True
     return False
@@ -23,7 +22,7 @@ def calls_of(program, name):
     """A list of tuples (caller, statement) for all calls of a function, those of functions that are not used, too."""
     found = []
     for caller in program.functions:
-        for statement in all_statements(program.function(caller).body):
+        for statement in program.body_statements(caller):
             if isinstance(statement, Call) and statement.name == name:
                 found.append((caller, statement))
     return found

@@ -4,11 +4,11 @@ from heldby.courses import check_courses, check_ends, shortest_courses
 from heldby.errors import UnknownName
 from heldby.names import is_plain_integer
 from heldby.needs import captured_of, needs_of, used_functions, uses_of
-from heldby.places import rests_of, steps_of
-from heldby.scopes import check_scopes
+from heldby.outlines import Outline
+from heldby.places import places_of
+from heldby.scopes import check_different, check_scopes
 from heldby.shapes import check_shape
 from heldby.sizes import check_sizes
-from heldby.trees import chains_of, functions_inside, own_things, own_variables
 
 
 class Program:
@@ -16,22 +16,33 @@ class Program:
 
     def __init__(self, main):
         check_shape(main)
-        check_scopes(main)
+        check_different(main)
+        outline = Outline(main)
+        check_scopes(outline)
         self._main = main
-        self._table = {function.name: function for function in functions_inside(main)}
+        self._table = {function.name: function for function in outline.inside}
         self._order = tuple(self._table)
         courses = shortest_courses(main)
         check_ends(courses, self._order)
-        check_sizes(main)
+        check_sizes(outline)
         check_courses(courses)
-        chains = chains_of(main)
-        self._chains = {name: tuple([function.name for function in chains[name]]) for name in chains}
-        self._used = used_functions(main)
-        self._uses = uses_of(main)
-        self._needs = needs_of(main)
-        self._captured = captured_of(main, self._needs, self._used)
-        self._steps = {name: steps_of(self._table[name].body) for name in self._order}
-        self._rests = {name: rests_of(self._steps[name]) for name in self._order}
+        self._chains = {name: tuple([function.name for function in chain]) for name, chain in outline.chains.items()}
+        self._variables = outline.own
+        self._statements = outline.statements
+        self._chain_things = outline.things
+        self._places = {function.name: places_of(function.body) for function in outline.inside}
+        # At the entry the whole body is the rest.
+        bodies = {name: self._places[name][1][0][1:] for name in self._order}
+        self._used = used_functions(outline, bodies)
+        self._uses = uses_of(outline, bodies)
+        self._needs = needs_of(outline, bodies)
+        self._captured = captured_of(outline, self._needs, self._used)
+        # What all layouts ask for again and again: whose variables these are, in the order of the text.
+        self.owners = {variable: name for name in self._order for variable in self._variables[name]}
+        self.captured_owners = {variable: name for name in self._order for variable in self._captured[name]}
+        self.number_names = {number: True for function in outline.inside for number in function.numbers}
+        # The Records of the last layout, by its bundles and its linked functions.
+        self.last_records = {}
 
     @property
     def main(self):
@@ -77,12 +88,12 @@ class Program:
     def variables(self, name):
         """The parameters, things and numbers of the function."""
         self._check_known(name)
-        return tuple(own_variables(self._table[name]))
+        return self._variables[name]
 
     def chain_things(self, name):
         """The thing variables of the chain of the function."""
         self._check_known(name)
-        return tuple([thing for around in self._chains[name] for thing in own_things(self._table[around])])
+        return self._chain_things[name]
 
     def uses(self, name):
         """The visible variables that the body of the function shows, adds to or passes on."""
@@ -99,16 +110,21 @@ class Program:
         self._check_known(name)
         return self._captured[name]
 
-    def steps(self, name):
-        """A dict from the points of the function, ascending, to what is done next, as steps_of tells."""
+    def body_statements(self, name):
+        """A tuple of all statements of the function, those in Eithers behind their Either."""
         self._check_known(name)
-        steps = self._steps[name]
+        return self._statements[name]
+
+    def steps(self, name):
+        """A dict from the points of the function, ascending, to what is done next, as places_of tells."""
+        self._check_known(name)
+        steps = self._places[name][0]
         return {point: steps[point] for point in steps}
 
     def rests(self, name):
-        """A tuple of (point, variables, functions) for all points of the function, as rests_of tells."""
+        """A tuple of (point, variables, functions) for all points of the function, as places_of tells."""
         self._check_known(name)
-        return self._rests[name]
+        return self._places[name][1]
 
     def is_point(self, name, value):
         """Whether any value is a point of the function."""
@@ -116,8 +132,8 @@ class Program:
         # True is equal to 1, but no part of a point; a list may have no place in a dict.
         if not isinstance(value, tuple) or not all([is_plain_integer(part) for part in value]):
             return False
-        return value in self._steps[name]
+        return value in self._places[name][0]
 
     def _check_known(self, name):
-        if name not in self:
+        if not isinstance(name, str) or name not in self._table:
             raise UnknownName(name)

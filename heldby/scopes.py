@@ -2,18 +2,11 @@
 
 from heldby.errors import DuplicateName, UnknownName, WrongCount, WrongKind
 from heldby.statements import Add, Call, Give, Show
-from heldby.trees import all_statements, chains_of, functions_by_bodies, functions_inside, own_variables
+from heldby.trees import functions_inside, own_variables
 
 
-def check_scopes(main):
-    """Raises the error that comes first, each kind ahead of the next one, wherever they stand in the text."""
-    _check_different(main)
-    _check_visible(main)
-    _check_kinds(main)
-    _check_counts(main)
-
-
-def _check_different(main):
+def check_different(main):
+    """Raises DuplicateName for the first name that stands ahead of itself."""
     ahead = {}
     for function in functions_inside(main):
         for name in [function.name, *own_variables(function)]:
@@ -22,14 +15,20 @@ def _check_different(main):
             ahead[name] = True
 
 
-def _check_visible(main):
-    chains = chains_of(main)
-    for function in functions_by_bodies(main):
-        chain = chains[function.name]
-        variables = {name: True for around in chain for name in own_variables(around)}
+def check_scopes(outline):
+    """Raises the error that comes first, each kind ahead of the next one, wherever they stand in the text."""
+    _check_visible(outline)
+    statements = [statement for function in outline.by_bodies for statement in outline.statements[function.name]]
+    _check_kinds(outline, statements)
+    _check_counts(outline, statements)
+
+
+def _check_visible(outline):
+    for function in outline.by_bodies:
+        variables = outline.visible[function.name]
         # Main is no inner function, so it is not among them, and cannot be called or given.
-        functions = {inner.name: True for around in chain for inner in around.functions}
-        for statement in all_statements(function.body):
+        functions = {inner.name: True for around in outline.chains[function.name] for inner in around.functions}
+        for statement in outline.statements[function.name]:
             unknown = _unknown(statement, variables, functions)
             if unknown:
                 raise UnknownName(unknown[0])
@@ -50,9 +49,9 @@ def _missing(names, known):
     return [name for name in names if name not in known]
 
 
-def _check_kinds(main):
-    numbers = {name: True for function in functions_inside(main) for name in function.numbers}
-    for statement in _statements(main):
+def _check_kinds(outline, statements):
+    numbers = {name: True for function in outline.inside for name in function.numbers}
+    for statement in statements:
         if isinstance(statement, Add) and statement.name not in numbers:
             raise WrongKind(statement.name)
         if isinstance(statement, Call):
@@ -61,13 +60,8 @@ def _check_kinds(main):
                     raise WrongKind(name)
 
 
-def _check_counts(main):
-    counts = {function.name: len(function.parameters) for function in functions_inside(main)}
-    for statement in _statements(main):
+def _check_counts(outline, statements):
+    counts = {function.name: len(function.parameters) for function in outline.inside}
+    for statement in statements:
         if isinstance(statement, Call) and len(statement.things) != counts[statement.name]:
             raise WrongCount(statement.name)
-
-
-def _statements(main):
-    """All statements of a program, those of inner functions ahead of those around them."""
-    return [statement for function in functions_by_bodies(main) for statement in all_statements(function.body)]

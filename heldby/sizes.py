@@ -2,17 +2,13 @@
 
 from heldby.errors import TooMany
 from heldby.limits import CHAIN, DEPTH, FUNCTIONS, STATEMENTS
-from heldby.trees import all_statements, chains_of, functions_inside, own_things
 
-
-def check_sizes(main):
+def check_sizes(outline):
     """Raises TooMany for the first limit that is passed."""
-    functions = functions_inside(main)
-    chains = list(chains_of(main).values())
-    _check(len(functions), FUNCTIONS)
-    _check(max([len(chain) for chain in chains]), DEPTH)
-    _check(max([_count_things(chain) for chain in chains]), CHAIN)
-    _check(sum([len(all_statements(function.body)) for function in functions]), STATEMENTS)
+    _check(len(outline.inside), FUNCTIONS)
+    _check(max(_lengths(outline.chains)), DEPTH)
+    _check(max(_lengths(outline.things)), CHAIN)
+    _check(sum(_lengths(outline.statements)), STATEMENTS)
 
 
 def _check(many, limit):
@@ -20,5 +16,5 @@ def _check(many, limit):
         raise TooMany(limit)
 
 
-def _count_things(chain):
-    return sum([len(own_things(function)) for function in chain])
+def _lengths(table):
+    return [len(row) for row in list(table.values())]

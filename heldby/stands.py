@@ -10,6 +10,7 @@ class Stands:
 
     `rows` has the stands by their numbers, from 0 on, `calls` the calls of each: tuples (points, number, count).
     `starts` has, by the closures, main's among them, the numbers of the stands to which calls by the world lead.
+    Stands and closures have the numbers of their groups, as in heldby.groups.
     """
 
     def __init__(self, one, other):
@@ -32,12 +33,14 @@ class Stands:
 
     def _numbered(self, stand):
         """The number of a stand, a new one if it is new."""
-        if stand not in self._numbers:
-            if len(self.rows) == STANDS:
+        number = self._numbers.get(stand)
+        if number is None:
+            number = len(self.rows)
+            if number == STANDS:
                 raise TooMany(STANDS)
-            self._numbers[stand] = len(self.rows)
+            self._numbers[stand] = number
             self.rows.append(stand)
-        return self._numbers[stand]
+        return number
 
 
 def knots(calls):

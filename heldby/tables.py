@@ -51,7 +51,7 @@ def _standing_set(leads, starts, other):
 def _uncovered(leads, state, other):
     """The states to which those calls lead during which the calling frame keeps none of the names by other."""
     name, names = state
-    return [further for point, further in leads.calls_from(state) if not meet(names, other.frame(name, point))]
+    return [further for point, further in leads.calls_from(state) if not meet(names, other.frame_at(name, point))]
 
 
 def is_table(one, other, value):
@@ -137,7 +137,7 @@ def frame_pairs(one, other, name):
     """
     pairs = {}
     for rest in one.program.rests(name):
-        pair = (one.frame(name, rest[0]), other.frame(name, rest[0]))
+        pair = (one.frame_at(name, rest[0]), other.frame_at(name, rest[0]))
         if not _has_all(pair[0], pair[1]):
             pairs.setdefault(pair, []).append(rest[0])
     return pairs

@@ -1,6 +1,6 @@
 """The functions, variables and statements of a program, in the order of its text."""
 
-from heldby.statements import Add, Call, Either, Give, Show
+from heldby.statements import Either
 
 
 def functions_inside(function):
@@ -50,20 +50,3 @@ def all_statements(body):
             waiting.extend(statement.other[::-1])
             waiting.extend(statement.one[::-1])
     return found
-
-
-def mentioned(statements):
-    """The variables that single statements, without those in Eithers, show, add to or pass on, each once."""
-    found = {}
-    for statement in statements:
-        if isinstance(statement, (Show, Add)):
-            found[statement.name] = True
-        if isinstance(statement, Call):
-            for name in statement.things:
-                found[name] = True
-    return list(found)
-
-
-def called_or_given(statements):
-    """The names of the functions that single statements, without those in Eithers, call or give, each once."""
-    return list({statement.name: True for statement in statements if isinstance(statement, (Call, Give))})

@@ -1,6 +1,5 @@
 """The work of a session: a program, a layout of it, and weights."""
 
-from heldby.choices import captured_owners
 from heldby.costs import Costs
 from heldby.layouts import Layout
 from heldby.rewriting import renamed_all
@@ -39,7 +38,7 @@ class Work:
 def carried_work(change, work):
     """The work on the result of a change: all choices and weights stay that can stay."""
     result, names, layout = change.result, change.new_names(), work.layout
-    captured = captured_owners(result)
+    captured = result.captured_owners
     bundles = []
     for bundle in layout.bundles:
         left = [name for name in renamed_all(bundle, names) if name in captured]

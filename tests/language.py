@@ -14,7 +14,7 @@ BUILTINS = set(
 VALUE_METHODS = set(
     "append clear copy count endswith extend find get index insert isalnum isalpha isdigit islower isspace isupper"
     " items join keys ljust lower lstrip partition pop remove replace reverse rfind rjust rpartition rsplit rstrip"
-    " setdefault split splitlines startswith strip update upper values zfill bit_length add discard".split()
+    " setdefault split splitlines startswith strip update upper values zfill bit_length add discard isascii".split()
 )
 NO_ATTRIBUTES = set(
     "items keys values pop update append clear extend insert remove reverse setdefault sort args encode decode hex"
