@@ -1,6 +1,11 @@
 """The items of functions, ("variable", x) and ("record", p), and which of them their records have."""
 
 
+def items_of(name, variables):
+    """A dict of all items that may belong to a function with these variables, in their order."""
+    return {item: True for item in [("record", name), *[("variable", variable) for variable in variables]]}
+
+
 def owner_of(program, item):
     """The function to which an item belongs."""
     kind, name = item
@@ -22,12 +27,12 @@ def least_items(program, linked):
         # Inner functions stand behind those around them, which most often want what these want.
         for name in reversed(program.used):
             # Whoever makes a record needs its items, and whoever is linked to needs those of the linked one.
-            rows = [wanted[name], *[recorded[other] for other in called[name]]]
-            rows.extend([wanted[other] for other in inner[name]])
-            items = {item: True for row in rows for item in row if owner_of(program, item) != name}
-            if len(items) > len(wanted[name]):
-                wanted[name] = items
-                recorded[name] = _recorded_of(program, name, parents, items)
+            rows = [recorded[other] for other in called[name]] + [wanted[other] for other in inner[name]]
+            own, known = program.own_items[name], wanted[name]
+            new = [item for row in rows for item in row if item not in known and item not in own]
+            if new:
+                wanted[name] = {item: True for item in [*known, *new]}
+                recorded[name] = _recorded_of(program, name, parents, wanted[name])
                 changed = True
     orders = {name: _possible_items(program, name) for name in program.used}
     return _in_order(wanted, orders), _in_order(recorded, orders)
@@ -43,7 +48,7 @@ def _recorded_of(program, name, parents, items):
     if name not in parents:
         return items
     parent = parents[name]
-    near = {item: True for item in items if owner_of(program, item) == parent}
+    near = {item: True for item in items if item in program.own_items[parent]}
     if len(near) < len(items):
         near[("record", parent)] = True
     return near
@@ -51,11 +56,7 @@ def _recorded_of(program, name, parents, items):
 
 def _possible_items(program, name):
     """All items that a function may have, in their order: of outer functions first, records ahead of variables."""
-    items = []
-    for around in program.chain(name)[:-1]:
-        items.append(("record", around))
-        items.extend([("variable", variable) for variable in program.variables(around)])
-    return items
+    return [item for around in program.chain(name)[:-1] for item in program.own_items[around]]
 
 
 def _in_order(found, orders):

@@ -32,12 +32,11 @@ def needs_of(outline, bodies):
         changed = False
         for function in outline.by_bodies:
             name = function.name
-            wider = dict(needs[name])
-            for further in bodies[name][1]:
-                wider.update(_outer(outline, name, needs[further]))
-            if len(wider) > len(needs[name]):
-                needs[name] = wider
-                changed = True
+            asked = [variable for called in bodies[name][1] for variable in needs[called]]
+            for variable in _outer(outline, name, asked):
+                if variable not in needs[name]:
+                    needs[name][variable] = True
+                    changed = True
     return {name: _by_chain(outline, name, needs[name]) for name in needs}
 
 

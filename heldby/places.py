@@ -39,27 +39,26 @@ def _rests_of(steps):
         if statement is None:
             rests[point] = rests[after]
         elif isinstance(statement, Either):
+            # What is behind the Either is in the rests of both lists.
             first, second = (*after, 0), (*after, 1)
-            rests[point] = _joined(rests[first], rests[second])
+            one, other = rests[first], rests[second]
+            rests[point] = (_with_all(one[0], other[0]), _with_all(one[1], other[1]))
         else:
-            rests[point] = _joined(rests[after], _names_in(statement))
+            rests[point] = _longer(statement, rests[after])
     return rests
 
 
-def _names_in(statement):
-    """The variables that a single statement uses, and the functions that it calls or gives, each once."""
+def _longer(statement, rest):
+    """What a rest has with one more single statement."""
+    variables, functions = rest
     if isinstance(statement, (Show, Add)):
-        return (statement.name,), ()
-    things = statement.things if isinstance(statement, Call) else ()
-    return tuple(list({thing: True for thing in things})), (statement.name,)
-
-
-def _joined(one, other):
-    """The variables and the functions of two rests."""
-    return _with_all(one[0], other[0]), _with_all(one[1], other[1])
+        return _with_all(variables, (statement.name,)), functions
+    if isinstance(statement, Call):
+        variables = _with_all(variables, statement.things)
+    return variables, _with_all(functions, (statement.name,))
 
 
 def _with_all(names, others):
-    """The names, and behind them those of the others that are not among them."""
-    new = [name for name in others if name not in names]
+    """The names, and behind them those of the others that are not among them, each once."""
+    new = {name: True for name in others if name not in names}
     return (*names, *new) if new else names

@@ -2,6 +2,7 @@
 
 from heldby.courses import check_courses, check_ends, shortest_courses
 from heldby.errors import UnknownName
+from heldby.items import items_of
 from heldby.names import is_plain_integer
 from heldby.needs import captured_of, needs_of, used_functions, uses_of
 from heldby.outlines import Outline
@@ -37,9 +38,10 @@ class Program:
         self._uses = uses_of(outline, bodies)
         self._needs = needs_of(outline, bodies)
         self._captured = captured_of(outline, self._needs, self._used)
-        # What all layouts ask for again and again: whose variables these are, in the order of the text.
+        # What all layouts ask for again and again: whose variables and items these are, in the order of the text.
         self.owners = {variable: name for name in self._order for variable in self._variables[name]}
         self.captured_owners = {variable: name for name in self._order for variable in self._captured[name]}
+        self.own_items = {name: items_of(name, outline.own[name]) for name in self._order}
         self.number_names = {number: True for function in outline.inside for number in function.numbers}
         # The Records of the last layout, by its bundles and its linked functions.
         self.last_records = {}

@@ -73,10 +73,12 @@ class Records:
         frames, known = {}, {}
         for point, used, called in rests:
             # Many points have equal rests, at which frames keep the same.
-            if (used, called) not in known:
-                rows = [by_variable[variable] for variable in used] + [by_function[function] for function in called]
-                known[(used, called)] = tuple(sorted(set([thing for row in rows for thing in row])))
-            frames[(name, point)] = known[(used, called)]
+            rest = (used, called)
+            if rest not in known:
+                kept = [thing for variable in used for thing in by_variable[variable]]
+                kept.extend([thing for function in called for thing in by_function[function]])
+                known[rest] = tuple(sorted(set(kept)))
+            frames[(name, point)] = known[rest]
         return frames
 
     def _kept_for_variable(self, name, variable, is_opened):
